@@ -1,0 +1,61 @@
+// Package lines reads and writes the lines of a text, their numbers and their lists (rule R9 of shared/DOC.md).
+package lines
+
+import (
+	"strconv"
+	"strings"
+)
+
+// none is how a list without numbers is written.
+const none = "none"
+
+// most is the greatest number of nine digits.
+const most = 999999999
+
+// Split returns the lines of a text; the last one need not end with a line feed.
+func Split(text string) []string {
+	if text == "" {
+		return nil
+	}
+	return strings.Split(strings.TrimSuffix(text, "\n"), "\n")
+}
+
+// Fields returns the word of a line and its fields. A field is empty where there is a blank too many.
+func Fields(line string) []string { return strings.Split(line, " ") }
+
+// Number returns the number that a field stands for, and whether it has the form of one.
+func Number(field string) (int, bool) {
+	n, err := strconv.Atoi(field)
+	if err != nil || n < -most || n > most || strconv.Itoa(n) != field {
+		return 0, false
+	}
+	return n, true
+}
+
+// List returns the numbers of a list, and whether it has the form of one.
+func List(field string) ([]int, bool) {
+	if field == none {
+		return nil, true
+	}
+	var list []int
+	for _, part := range strings.Split(field, "+") {
+		n, ok := Number(part)
+		if !ok {
+			return nil, false
+		}
+		list = append(list, n)
+	}
+	return list, true
+}
+
+// WriteList returns a list as it stands in a line.
+func WriteList(list []int) string {
+	if len(list) == 0 {
+		return none
+	}
+	var parts []string
+	for _, n := range list {
+		parts = append(parts, strconv.Itoa(n))
+	}
+	return strings.Join(parts, "+")
+}

@@ -1,0 +1,68 @@
+package lines
+
+import (
+	"slices"
+	"strings"
+	"testing"
+)
+
+func TestSplit(t *testing.T) {
+	for text, want := range map[string][]string{
+		"":         nil,
+		"\n":       {""},
+		"a":        {"a"},
+		"a\n":      {"a"},
+		"a\n\n":    {"a", ""},
+		"a\nb c\n": {"a", "b c"},
+		"a\r\nb":   {"a\r", "b"},
+	} {
+		if got := Split(text); !slices.Equal(got, want) {
+			t.Errorf("Split(%q) = %q, want %q", text, got, want)
+		}
+	}
+}
+
+func TestFields(t *testing.T) {
+	for line, want := range map[string][]string{
+		"":       {""},
+		"a":      {"a"},
+		"a b c":  {"a", "b", "c"},
+		"a  b":   {"a", "", "b"},
+		" a":     {"", "a"},
+		"a ":     {"a", ""},
+		"a\tb c": {"a\tb", "c"},
+	} {
+		if got := Fields(line); !slices.Equal(got, want) {
+			t.Errorf("Fields(%q) = %q, want %q", line, got, want)
+		}
+	}
+}
+
+func TestNumber(t *testing.T) {
+	for field, want := range map[string]int{"0": 0, "7": 7, "-1": -1, "10": 10, "999999999": 999999999, "-999999999": -999999999} {
+		if n, ok := Number(field); n != want || !ok {
+			t.Errorf("Number(%q) = %d, %v", field, n, ok)
+		}
+	}
+	for _, field := range []string{"", "-", "+1", "-0", "00", "01", "-01", "--1", "1-", "1_0", "0x1", " 1", "1 ", "1.0", "x", "1000000000", "-1000000000", strings.Repeat("9", 30), "\u0661"} {
+		if n, ok := Number(field); n != 0 || ok {
+			t.Errorf("Number(%q) = %d, %v", field, n, ok)
+		}
+	}
+}
+
+func TestList(t *testing.T) {
+	for field, want := range map[string][]int{"none": nil, "0": {0}, "4+0+-1": {4, 0, -1}, "1+1": {1, 1}} {
+		if list, ok := List(field); !slices.Equal(list, want) || !ok {
+			t.Errorf("List(%q) = %v, %v", field, list, ok)
+		}
+		if got := WriteList(want); got != field {
+			t.Errorf("WriteList(%v) = %q, want %q", want, got, field)
+		}
+	}
+	for _, field := range []string{"", "+", "1+", "+1", "1++2", "1+none", "none+1", "None", "1+02", "1,2", "1+1000000000"} {
+		if list, ok := List(field); len(list) != 0 || ok {
+			t.Errorf("List(%q) = %v, %v", field, list, ok)
+		}
+	}
+}

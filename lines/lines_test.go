@@ -4,6 +4,8 @@ import (
 	"slices"
 	"strings"
 	"testing"
+
+	"nosale/api"
 )
 
 func TestSplit(t *testing.T) {
@@ -63,6 +65,22 @@ func TestList(t *testing.T) {
 	for _, field := range []string{"", "+", "1+", "+1", "1++2", "1+none", "none+1", "None", "1+02", "1,2", "1+1000000000"} {
 		if list, ok := List(field); len(list) != 0 || ok {
 			t.Errorf("List(%q) = %v, %v", field, list, ok)
+		}
+	}
+}
+
+func TestSpan(t *testing.T) {
+	for field, want := range map[string]api.Span{"5": {Low: 5, High: 5}, "5..7": {Low: 5, High: 7}, "7..5": {Low: 7, High: 5}, "0": {}, "-1..0": {Low: -1}, "-3..-2": {Low: -3, High: -2}, "0..999999999": {High: 999999999}} {
+		if s, ok := Span(field); s != want || !ok {
+			t.Errorf("Span(%q) = %v, %v", field, s, ok)
+		}
+		if got := WriteSpan(want); got != field {
+			t.Errorf("WriteSpan(%v) = %q, want %q", want, got, field)
+		}
+	}
+	for _, field := range []string{"", "..", "5..5", "0..0", "5..", "..5", "5.7", "5...7", "5..7..9", "05..7", "5..07", "5..+7", "5-7", "5..x", "x..7", "none", "5 ..7", "1000000000", "0..1000000000"} {
+		if s, ok := Span(field); s != (api.Span{}) || ok {
+			t.Errorf("Span(%q) = %v, %v", field, s, ok)
 		}
 	}
 }

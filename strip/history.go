@@ -1,0 +1,264 @@
+package strip
+
+import (
+	"iter"
+	"maps"
+	"slices"
+
+	"nosale/api"
+)
+
+// checked is a book without a bell.
+type checked struct {
+	book
+	top   int // totals are printed modulo this
+	known []thing
+	sales []api.StripSale
+	adds  map[api.StripSale]tally
+}
+
+// open returns a book that is checked, or its bell.
+func open(b api.StripBook) (checked, api.Bell) {
+	if l := CheckBook(b); l != api.Fine {
+		return checked{}, l
+	}
+	return newChecked(book{b}), api.Fine
+}
+
+// openEntry returns a book that is checked, if an item is the index of an entry of it, or the bell.
+func openEntry(b api.StripBook, item int) (checked, api.Bell) {
+	c, l := open(b)
+	if l == api.Fine && !c.isEntry(item) {
+		return checked{}, api.Missing
+	}
+	return c, l
+}
+
+func newChecked(b book) checked {
+	c := checked{book: b, top: b.modulus(), known: b.things(), adds: map[api.StripSale]tally{}}
+	for a := range len(b.Articles) {
+		for k := range b.Clerks {
+			s := api.StripSale{Article: a, Clerk: k}
+			c.sales = append(c.sales, s)
+			c.adds[s] = b.tallyOf(s)
+		}
+	}
+	return c
+}
+
+// copyBook returns a book that shares no memory with b.
+func copyBook(b api.StripBook) api.StripBook {
+	b.Articles = slices.Clone(b.Articles)
+	b.Items = slices.Clone(b.Items)
+	b.Counts = slices.Clone(b.Counts)
+	return b
+}
+
+// place returns the place of a thing in tallies.
+func (c checked) place(t thing) int { return slices.Index(c.known, t) }
+
+// maxLines is how many lines the strip of a book can have.
+const maxLines = api.MaxStripEntries + api.MaxStripMissing
+
+// history is how many lines are missing at each torn item, the line of each entry, the sales of all lines, the total behind them, and what is counted.
+type history struct {
+	many    [api.MaxStripItems]int
+	at      [api.MaxStripItems]int
+	sold    [maxLines]api.StripSale
+	lines   int
+	total   int
+	counted tally
+}
+
+// blank returns the history of a strip without a line.
+func (c checked) blank() history { return history{total: c.Begin} }
+
+// sell returns a history with one more line.
+func (c checked) sell(h history, s api.StripSale) history {
+	h.sold[h.lines] = s
+	h.lines++
+	h.total = c.totalAfter(h.total, s)
+	h.counted = h.counted.plus(c.adds[s])
+	return h
+}
+
+// totalAfter returns the total behind a sale.
+func (c checked) totalAfter(total int, s api.StripSale) int {
+	return (total + c.Articles[s.Article].Price) % c.top
+}
+
+// number returns the number of a line.
+func (c checked) number(line int) int { return (c.First-1+line)%c.Last + 1 }
+
+// play returns number and total of each line.
+func (c checked) play(sold []api.StripSale) []api.StripLine {
+	var lines []api.StripLine
+	total := c.Begin
+	for i, s := range sold {
+		total = c.totalAfter(total, s)
+		lines = append(lines, api.StripLine{Number: c.number(i), Total: total})
+	}
+	return lines
+}
+
+// strips yields all that agree with the items, whatever the counts say.
+func (c checked) strips() iter.Seq[history] {
+	return func(yield func(history) bool) {
+		// fill goes on with an item, before which so many lines are still missing, and tells whether more is wanted.
+		var fill func(h history, item, missing int) bool
+		fill = func(h history, item, missing int) bool {
+			if missing > 0 {
+				for _, s := range c.sales {
+					if !fill(c.sell(h, s), item, missing-1) {
+						return false
+					}
+				}
+				return true
+			}
+			if item == len(c.Items) {
+				return yield(h)
+			}
+			e := c.Items[item]
+			if e.Torn {
+				for n := e.Many.Low; n <= e.Many.High; n++ {
+					h.many[item] = n
+					if !fill(h, item+1, n) {
+						return false
+					}
+				}
+				return true
+			}
+			h.at[item] = h.lines
+			for _, s := range c.sales {
+				next := c.sell(h, s)
+				if c.agrees(next, e) && !fill(next, item+1, 0) {
+					return false
+				}
+			}
+			return true
+		}
+		fill(c.blank(), 0, 0)
+	}
+}
+
+// histories yields all histories of the book.
+func (c checked) histories() iter.Seq[history] {
+	return func(yield func(history) bool) {
+		for h := range c.strips() {
+			if c.fulfils(h.counted, c.allCounts()) && !yield(h) {
+				return
+			}
+		}
+	}
+}
+
+// isHistory tells whether so many missing lines, and the sales of all lines, are a history.
+func (c checked) isHistory(many []int, sold []api.StripSale) bool {
+	h := c.blank()
+	for _, e := range c.Items {
+		if !e.Torn {
+			h = c.sell(h, sold[h.lines])
+			if !c.agrees(h, e) {
+				return false
+			}
+			continue
+		}
+		if !isWithin(many[0], e.Many.Low, e.Many.High) {
+			return false
+		}
+		for range many[0] {
+			h = c.sell(h, sold[h.lines])
+		}
+		many = many[1:]
+	}
+	return c.fulfils(h.counted, c.allCounts())
+}
+
+// possible tells whether there is a history.
+func (c checked) possible() bool {
+	for range c.histories() {
+		return true
+	}
+	return false
+}
+
+// ifPossible returns a book without a bell if it has a history.
+func ifPossible(b book) (api.StripBook, api.Bell) {
+	if !newChecked(b).possible() {
+		return api.StripBook{}, api.Odds
+	}
+	return b.StripBook, api.Fine
+}
+
+// count returns how many histories there are.
+func (c checked) count() int {
+	many := 0
+	for range c.histories() {
+		many++
+	}
+	return many
+}
+
+// each returns a number of each history, ascending, each number once.
+func (c checked) each(number func(h history) int) ([]int, api.Bell) {
+	found := map[int]bool{}
+	for h := range c.histories() {
+		found[number(h)] = true
+	}
+	if len(found) == 0 {
+		return nil, api.Odds
+	}
+	return slices.Sorted(maps.Keys(found)), api.Fine
+}
+
+// spanOf returns the span from the least to the greatest count of a thing.
+func spanOf(b api.StripBook, t thing) (api.Span, api.Bell) {
+	c, l := open(b)
+	if l != api.Fine {
+		return api.Span{}, l
+	}
+	if !c.has(t) {
+		return api.Span{}, api.Missing
+	}
+	place := c.place(t)
+	list, l := c.each(func(h history) int { return h.counted[place] })
+	if l != api.Fine {
+		return api.Span{}, l
+	}
+	return api.Span{Low: list[0], High: list[len(list)-1]}, api.Fine
+}
+
+// sure returns how sure something is.
+func (c checked) sure(is func(h history) bool) (api.Sure, api.Bell) {
+	all, with := 0, 0
+	for h := range c.histories() {
+		all++
+		with += one(is(h))
+	}
+	switch {
+	case all == 0:
+		return 0, api.Odds
+	case with == all:
+		return api.Yes, api.Fine
+	case with == 0:
+		return api.No, api.Fine
+	}
+	return api.Open, api.Fine
+}
+
+// whole returns the sales of all lines if each history has the same ones.
+func (c checked) whole() (sold []api.StripSale, found bool, l api.Bell) {
+	var first history
+	for h := range c.histories() {
+		if !found {
+			first, found = h, true
+		}
+		if h.lines != first.lines || h.sold != first.sold {
+			return nil, false, api.Fine
+		}
+	}
+	if !found {
+		return nil, false, api.Odds
+	}
+	return slices.Clone(first.sold[:first.lines]), true, api.Fine
+}

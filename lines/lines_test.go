@@ -1,6 +1,7 @@
 package lines
 
 import (
+	"errors"
 	"slices"
 	"strings"
 	"testing"
@@ -82,5 +83,49 @@ func TestSpan(t *testing.T) {
 		if s, ok := Span(field); s != (api.Span{}) || ok {
 			t.Errorf("Span(%q) = %v, %v", field, s, ok)
 		}
+	}
+}
+
+func TestReading(t *testing.T) {
+	for line, want := range map[string]bool{
+		"a 1 2..3":   true,
+		"\xff -1 7":  true,
+		"a":          false,
+		"":           false,
+		"a 1":        false,
+		"a 1 2..3 4": false,
+		" a 1 2..3":  false,
+		"a  1 2..3":  false,
+		"a 1 2..3 ":  false,
+		"a b 2..3":   false,
+		"a 1 b":      false,
+		"a 1 2..2":   false,
+	} {
+		r := Read(line)
+		word, n, s := r.Word(), r.Number(), r.Span()
+		if r.Right() != want {
+			t.Errorf("%q: %q, %d, %v, right: %v", line, word, n, s, !want)
+		}
+	}
+	r := Read("a 1 2..3")
+	if word, n, s := r.Word(), r.Number(), r.Span(); word != "a" || n != 1 || s != (api.Span{Low: 2, High: 3}) {
+		t.Errorf("%q, %d, %v", word, n, s)
+	}
+	for _, line := range []string{"a", "a ", ""} {
+		r := Read(line)
+		if one, two := r.Word(), r.Word(); r.Right() {
+			t.Errorf("%q has two words: %q, %q", line, one, two)
+		}
+	}
+	r.Fail()
+	if r.Right() {
+		t.Error("a line is right that was said to be wrong")
+	}
+}
+
+func TestWrong(t *testing.T) {
+	var wrong Wrong
+	if err := error(Wrong{3}); !errors.As(err, &wrong) || wrong.Line != 3 || err.Error() != "line 3 is wrong" {
+		t.Errorf("%v, line %d", err, wrong.Line)
 	}
 }

@@ -5,6 +5,7 @@ import (
 	"strconv"
 
 	"nosale/api"
+	"nosale/spans"
 )
 
 const (
@@ -32,13 +33,13 @@ func (b book) bell() api.Bell {
 
 // checkRegister returns the bell of the numbers at the head of the book.
 func (b book) checkRegister() api.Bell {
-	if !isWithin(b.Last, 9, api.MaxStripLast) || !isWithin(b.First, 1, b.Last) {
+	if !spans.Within(b.Last, 9, api.MaxStripLast) || !spans.Within(b.First, 1, b.Last) {
 		return api.Bound
 	}
-	if !isWithin(b.Digits, 1, api.MaxStripDigits) || !isWithin(b.Begin, 0, b.modulus()-1) {
+	if !spans.Within(b.Digits, 1, api.MaxStripDigits) || !spans.Within(b.Begin, 0, b.modulus()-1) {
 		return api.Bound
 	}
-	if !isWithin(b.Clerks, 1, api.MaxStripClerks) {
+	if !spans.Within(b.Clerks, 1, api.MaxStripClerks) {
 		return api.Bound
 	}
 	return api.Fine
@@ -46,11 +47,11 @@ func (b book) checkRegister() api.Bell {
 
 // checkArticles returns the first bell of the articles.
 func (b book) checkArticles() api.Bell {
-	if !isWithin(len(b.Articles), 1, api.MaxStripArticles) {
+	if !spans.Within(len(b.Articles), 1, api.MaxStripArticles) {
 		return api.Count
 	}
 	for i, a := range b.Articles {
-		if !isWithin(a.Dept, 0, api.MaxStripDept) || !isWithin(a.Price, 1, api.MaxStripPrice) {
+		if !spans.Within(a.Dept, 0, api.MaxStripDept) || !spans.Within(a.Price, 1, api.MaxStripPrice) {
 			return api.Bound
 		}
 		if slices.Contains(b.Articles[:i], a) {
@@ -84,7 +85,7 @@ func (b book) checkItem(e api.StripItem) api.Bell {
 	if !isPrinted(e.Number, b.numberLong()) || !isPrinted(e.Amount, amountLong) || !isPrinted(e.Total, b.Digits) {
 		return api.Shape
 	}
-	if !isWithin(e.Dept, unread, api.MaxStripDept) || !isWithin(e.Clerk, unread, b.Clerks-1) {
+	if !spans.Within(e.Dept, unread, api.MaxStripDept) || !spans.Within(e.Clerk, unread, b.Clerks-1) {
 		return api.Bound
 	}
 	return api.Fine
@@ -92,7 +93,7 @@ func (b book) checkItem(e api.StripItem) api.Bell {
 
 // checkTorn returns the bell of a torn item.
 func checkTorn(e api.StripItem) api.Bell {
-	if !isSpan(e.Many, api.MaxStripMissing) {
+	if !spans.IsFrom(e.Many, 0, api.MaxStripMissing) {
 		return api.Bound
 	}
 	if e.Number != "" || e.Amount != "" || e.Total != "" || e.Dept != 0 || e.Clerk != 0 {
@@ -132,13 +133,13 @@ func (b book) checkCounts() api.Bell {
 
 // checkCount returns the bell of a count.
 func (b book) checkCount(c api.StripCount) api.Bell {
-	if !isWithin(int(c.Kind), int(api.StripTook), int(api.StripAll)) || c.Kind == api.StripAll && c.A != 0 {
+	if !spans.Within(int(c.Kind), int(api.StripTook), int(api.StripAll)) || c.Kind == api.StripAll && c.A != 0 {
 		return api.Bound
 	}
 	if !b.has(thing{c.Kind, c.A}) {
 		return api.Missing
 	}
-	if !isSpan(c.Many, api.MaxStripCount) {
+	if !spans.IsFrom(c.Many, 0, api.MaxStripCount) {
 		return api.Bound
 	}
 	return api.Fine
@@ -157,7 +158,7 @@ func (b book) checkPlay(many []int, sold []api.StripSale) api.Bell {
 	}
 	long := len(b.Items) - torn
 	for _, n := range many {
-		if !isWithin(n, 0, api.MaxStripMissing) {
+		if !spans.Within(n, 0, api.MaxStripMissing) {
 			return api.Bound
 		}
 		long += n
@@ -166,7 +167,7 @@ func (b book) checkPlay(many []int, sold []api.StripSale) api.Bell {
 		return api.Count
 	}
 	for _, s := range sold {
-		if !isWithin(s.Article, 0, len(b.Articles)-1) || !isWithin(s.Clerk, 0, b.Clerks-1) {
+		if !spans.Within(s.Article, 0, len(b.Articles)-1) || !spans.Within(s.Clerk, 0, b.Clerks-1) {
 			return api.Missing
 		}
 	}
@@ -186,18 +187,13 @@ func (b book) modulus() int {
 func (b book) numberLong() int { return len(strconv.Itoa(b.Last)) }
 
 // isEntry tells whether an item is the index of an entry.
-func (b book) isEntry(item int) bool { return isWithin(item, 0, len(b.Items)-1) && !b.Items[item].Torn }
+func (b book) isEntry(item int) bool { return b.isItem(item) && !b.Items[item].Torn }
 
 // isTorn tells whether an item is the index of a torn one.
-func (b book) isTorn(item int) bool { return isWithin(item, 0, len(b.Items)-1) && b.Items[item].Torn }
+func (b book) isTorn(item int) bool { return b.isItem(item) && b.Items[item].Torn }
 
-// isWithin tells whether a number is from low to high.
-func isWithin(n, low, high int) bool { return low <= n && n <= high }
-
-// isSpan tells whether a span is one from 0 to high.
-func isSpan(s api.Span, high int) bool {
-	return isWithin(s.Low, 0, s.High) && s.High <= high
-}
+// isItem tells whether an item is the index of one.
+func (b book) isItem(item int) bool { return spans.Within(item, 0, len(b.Items)-1) }
 
 // isPrinted tells whether a text is so many digits, each of which can be a question mark.
 func isPrinted(text string, long int) bool {
@@ -205,7 +201,7 @@ func isPrinted(text string, long int) bool {
 		return false
 	}
 	for _, r := range text {
-		if r != smudge && !isWithin(int(r), '0', '9') {
+		if r != smudge && !spans.Within(int(r), '0', '9') {
 			return false
 		}
 	}

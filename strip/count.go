@@ -7,6 +7,8 @@ import (
 	"sync"
 
 	"nosale/api"
+	"nosale/lists"
+	"nosale/spans"
 )
 
 // kind is a kind of counts: its word, the A that it can have, ascending, and how much a sale adds to what is counted.
@@ -106,7 +108,7 @@ func (b book) tallyOf(s api.StripSale) tally {
 func (c checked) fulfils(t tally, set int) bool {
 	for i, count := range c.Counts {
 		n := t[c.place(thing{count.Kind, count.A})]
-		if set>>i&1 == 1 && !isWithin(n, count.Many.Low, count.Many.High) {
+		if set>>i&1 == 1 && !spans.Has(count.Many, n) {
 			return false
 		}
 	}
@@ -128,7 +130,7 @@ func tallies(all iter.Seq[history]) map[tally]int {
 // contradictions returns the lists of counts that alone have no history.
 func (c checked) contradictions() [][]int {
 	counted := tallies(c.strips())
-	var lists [][]int
+	var all [][]int
 sets:
 	for set := range 1 << len(c.Counts) {
 		for t := range counted {
@@ -136,25 +138,9 @@ sets:
 				continue sets
 			}
 		}
-		lists = append(lists, elements(set))
+		all = append(all, lists.OfSet(set))
 	}
-	return lists
-}
-
-// elements returns the numbers of the bits of a set.
-func elements(set int) []int {
-	var list []int
-	for n := range api.MaxStripCounts {
-		if set>>n&1 == 1 {
-			list = append(list, n)
-		}
-	}
-	return list
-}
-
-// compareLists compares two lists by how long they are, then from their beginning on.
-func compareLists(a, b []int) int {
-	return cmp.Or(cmp.Compare(len(a), len(b)), slices.Compare(a, b))
+	return all
 }
 
 // trial is a thing, by its place, and how many histories are left at most once its count is known.
@@ -201,19 +187,9 @@ func (c checked) ask() (t thing, left int) {
 	for _, many := range counted {
 		all += many
 	}
-	best, found := least(compareTrials, c.trials(counted)...)
+	best, found := lists.Least(compareTrials, c.trials(counted)...)
 	if !found || best.left == all {
 		return thing{kind: -1}, all
 	}
 	return c.known[best.place], best.left
-}
-
-// least returns the least one of several, and whether there is any.
-func least[E any](compare func(a, b E) int, several ...E) (best E, found bool) {
-	for i, e := range several {
-		if i == 0 || compare(e, best) < 0 {
-			best = e
-		}
-	}
-	return best, len(several) > 0
 }

@@ -6,6 +6,7 @@ import (
 	"slices"
 
 	"nosale/api"
+	"nosale/spans"
 )
 
 // checked is a book without a bell.
@@ -163,7 +164,7 @@ func (c checked) isHistory(many []int, sold []api.StripSale) bool {
 			}
 			continue
 		}
-		if !isWithin(many[0], e.Many.Low, e.Many.High) {
+		if !spans.Has(e.Many, many[0]) {
 			return false
 		}
 		for range many[0] {

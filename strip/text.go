@@ -72,23 +72,18 @@ func (b book) text() string {
 	return text.String()
 }
 
-// wrongLine is the error of a text of which a line is wrong; it is 0 if there is none.
-type wrongLine struct{ number int }
-
-func (w wrongLine) Error() string { return "line " + strconv.Itoa(w.number) + " is wrong" }
-
 // readBook reads a book that is not checked yet.
 func readBook(text string) (book, error) {
 	texts := lines.Split(text)
 	if len(texts) == 0 {
-		return book{}, wrongLine{}
+		return book{}, lines.Wrong{}
 	}
 	var b book
 	before := headPlace
 	for i, t := range texts {
 		l, ok := readLine(t)
 		if !ok || !follows(l, i, before) {
-			return book{}, wrongLine{i + 1}
+			return book{}, lines.Wrong{Line: i + 1}
 		}
 		before = placeOf(l)
 		b.add(l)
@@ -137,76 +132,45 @@ func (b *book) add(l textLine) {
 	}
 }
 
-// reading is the fields of a line that are still to be read; it is wrong once one of them does not have its form.
-type reading struct {
-	fields []string
-	wrong  bool
-}
-
 // readLine reads a line, and tells whether it has one of the forms.
 func readLine(text string) (textLine, bool) {
-	r := reading{fields: lines.Fields(text)}
-	l := r.line()
-	if r.wrong || len(r.fields) > 0 {
+	r := lines.Read(text)
+	l := anyLine(r)
+	if !r.Right() {
 		return nil, false
 	}
 	return l, true
 }
 
-// line reads a line. Whether the digits of an entry are some, CheckBook tells.
-func (r *reading) line() textLine {
-	word := r.word()
+// anyLine reads a line of any kind. Whether the digits of an entry are some, CheckBook tells.
+func anyLine(r *lines.Reading) textLine {
+	word := r.Word()
 	switch word {
 	case "strip":
-		return headLine{r.number(), r.number(), r.number(), r.number(), r.number()}
+		return headLine{r.Number(), r.Number(), r.Number(), r.Number(), r.Number()}
 	case "article":
-		return articleLine{Dept: r.number(), Price: r.number()}
+		return articleLine{Dept: r.Number(), Price: r.Number()}
 	case "entry":
-		return itemLine{Number: r.word(), Amount: r.word(), Total: r.word(), Dept: r.number(), Clerk: r.number()}
+		return itemLine{Number: r.Word(), Amount: r.Word(), Total: r.Word(), Dept: r.Number(), Clerk: r.Number()}
 	case "torn":
-		return itemLine{Torn: true, Many: r.span()}
+		return itemLine{Torn: true, Many: r.Span()}
 	}
-	return r.count(word)
+	return anyCount(r, word)
 }
 
-// count reads a count with a word.
-func (r *reading) count(word string) textLine {
+// anyCount reads a count with a word.
+func anyCount(r *lines.Reading, word string) textLine {
 	for k, kind := range kinds() {
 		if kind.word != word {
 			continue
 		}
 		c := countLine{Kind: api.StripKind(k)}
 		if c.Kind != api.StripAll {
-			c.A = r.number()
+			c.A = r.Number()
 		}
-		c.Many = r.span()
+		c.Many = r.Span()
 		return c
 	}
-	r.wrong = true
+	r.Fail()
 	return nil
-}
-
-// word reads a field of any bytes.
-func (r *reading) word() string {
-	if len(r.fields) == 0 || r.fields[0] == "" {
-		r.wrong = true
-		return ""
-	}
-	field := r.fields[0]
-	r.fields = r.fields[1:]
-	return field
-}
-
-// number reads a field that is a number.
-func (r *reading) number() int {
-	n, ok := lines.Number(r.word())
-	r.wrong = r.wrong || !ok
-	return n
-}
-
-// span reads a field that is a span.
-func (r *reading) span() api.Span {
-	s, ok := lines.Span(r.word())
-	r.wrong = r.wrong || !ok
-	return s
 }

@@ -1,0 +1,56 @@
+package spans
+
+import (
+	"math"
+	"testing"
+
+	"nosale/api"
+)
+
+func TestWithin(t *testing.T) {
+	for _, x := range []struct {
+		n, low, high int
+		want         bool
+	}{{0, 0, 0, true}, {1, 0, 2, true}, {0, 0, 2, true}, {2, 0, 2, true}, {-1, 0, 2, false}, {3, 0, 2, false}, {1, 2, 0, false}, {math.MinInt, 0, 1, false}, {math.MaxInt, 0, 1, false}, {0, math.MinInt, math.MaxInt, true}} {
+		if Within(x.n, x.low, x.high) != x.want {
+			t.Errorf("Within(%d, %d, %d) is %v", x.n, x.low, x.high, !x.want)
+		}
+		if Has(api.Span{Low: x.low, High: x.high}, x.n) != x.want {
+			t.Errorf("%d..%d has %d: %v", x.low, x.high, x.n, !x.want)
+		}
+	}
+}
+
+func TestIsFrom(t *testing.T) {
+	for _, x := range []struct {
+		low, high int
+		want      bool
+	}{{3, 7, true}, {3, 3, true}, {7, 7, true}, {4, 6, true}, {6, 4, false}, {2, 7, false}, {3, 8, false}, {2, 2, false}, {8, 8, false}, {math.MinInt, math.MaxInt, false}, {math.MaxInt, math.MinInt, false}} {
+		if IsFrom(api.Span{Low: x.low, High: x.high}, 3, 7) != x.want {
+			t.Errorf("%d..%d is a span from 3 to 7: %v", x.low, x.high, !x.want)
+		}
+	}
+}
+
+func TestCommon(t *testing.T) {
+	for _, x := range []struct {
+		a, b, want api.Span
+		ok         bool
+	}{
+		{api.Span{Low: 1, High: 5}, api.Span{Low: 3, High: 9}, api.Span{Low: 3, High: 5}, true},
+		{api.Span{Low: 1, High: 5}, api.Span{Low: 5, High: 9}, api.Span{Low: 5, High: 5}, true},
+		{api.Span{Low: 1, High: 5}, api.Span{Low: 2, High: 4}, api.Span{Low: 2, High: 4}, true},
+		{api.Span{Low: 1, High: 5}, api.Span{Low: 6, High: 9}, api.Span{}, false},
+		{api.Span{Low: 1, High: 1}, api.Span{Low: 0, High: 0}, api.Span{}, false},
+	} {
+		for _, turned := range []bool{false, true} {
+			a, b := x.a, x.b
+			if turned {
+				a, b = b, a
+			}
+			if s, ok := Common(a, b); s != x.want || ok != x.ok {
+				t.Errorf("Common(%v, %v) = %v, %v", a, b, s, ok)
+			}
+		}
+	}
+}

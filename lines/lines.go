@@ -12,6 +12,26 @@ const none = "none"
 // most is the greatest number of nine digits.
 const most = 999999999
 
+// Line is a line of a text.
+type Line interface {
+	// Text returns the line without its line feed.
+	Text() string
+}
+
+// Write returns the text that consists of some lines.
+func Write(all []Line) string {
+	var text strings.Builder
+	for _, l := range all {
+		text.WriteString(l.Text() + "\n")
+	}
+	return text.String()
+}
+
+// Follows tells whether a line that has a place can stand behind so many others, the last of which has the place before. Places are numbers in the order in which lines stand; 0 is the place of the first line, and of no other.
+func Follows(place, before, others int) bool {
+	return (place == 0) == (others == 0) && place >= before
+}
+
 // Split returns the lines of a text; the last one need not end with a line feed.
 func Split(text string) []string {
 	if text == "" {

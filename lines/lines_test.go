@@ -25,6 +25,41 @@ func TestSplit(t *testing.T) {
 	}
 }
 
+// word is a line that consists of a word.
+type word string
+
+func (w word) Text() string { return string(w) }
+
+func TestWrite(t *testing.T) {
+	for want, all := range map[string][]Line{
+		"":         nil,
+		"a\n":      {word("a")},
+		"\n":       {word("")},
+		"b c\na\n": {word("b c"), word("a")},
+	} {
+		if got := Write(all); got != want {
+			t.Errorf("Write(%v) = %q, want %q", all, got, want)
+		}
+	}
+}
+
+func TestFollows(t *testing.T) {
+	for _, x := range []struct {
+		place, before, others int
+		want                  bool
+	}{
+		{0, 0, 0, true}, {1, 0, 0, false}, {3, 0, 0, false},
+		// behind the first line
+		{0, 0, 1, false}, {1, 0, 1, true}, {3, 0, 1, true},
+		// behind others
+		{0, 2, 4, false}, {1, 2, 4, false}, {2, 2, 4, true}, {3, 2, 4, true},
+	} {
+		if got := Follows(x.place, x.before, x.others); got != x.want {
+			t.Errorf("Follows(%d, %d, %d) = %v", x.place, x.before, x.others, got)
+		}
+	}
+}
+
 func TestFields(t *testing.T) {
 	for line, want := range map[string][]string{
 		"":       {""},
@@ -105,6 +140,12 @@ func TestReading(t *testing.T) {
 		word, n, s := r.Word(), r.Number(), r.Span()
 		if r.Right() != want {
 			t.Errorf("%q: %q, %d, %v, right: %v", line, word, n, s, !want)
+		}
+	}
+	for line, want := range map[string]bool{"none": true, "1": true, "4+0+-1": true, "": false, "1+": false, "x": false, "1 2": false, "1..2": false} {
+		r := Read(line)
+		if list := r.List(); r.Right() != want || want && WriteList(list) != line {
+			t.Errorf("%q: %v, right: %v", line, list, !want)
 		}
 	}
 	r := Read("a 1 2..3")

@@ -44,6 +44,13 @@ func (r *Reading) Number() int {
 	return n
 }
 
+// List reads a field that is a list.
+func (r *Reading) List() []int {
+	list, ok := List(r.Word())
+	r.wrong = r.wrong || !ok
+	return list
+}
+
 // Span reads a field that is a span.
 func (r *Reading) Span() api.Span {
 	s, ok := Span(r.Word())

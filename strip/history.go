@@ -2,10 +2,10 @@ package strip
 
 import (
 	"iter"
-	"maps"
 	"slices"
 
 	"nosale/api"
+	"nosale/histories"
 	"nosale/spans"
 )
 
@@ -175,41 +175,12 @@ func (c checked) isHistory(many []int, sold []api.StripSale) bool {
 	return c.fulfils(h.counted, c.allCounts())
 }
 
-// possible tells whether there is a history.
-func (c checked) possible() bool {
-	for range c.histories() {
-		return true
-	}
-	return false
-}
-
 // ifPossible returns a book without a bell if it has a history.
 func ifPossible(b book) (api.StripBook, api.Bell) {
-	if !newChecked(b).possible() {
+	if !histories.Any(newChecked(b).histories()) {
 		return api.StripBook{}, api.Odds
 	}
 	return b.StripBook, api.Fine
-}
-
-// count returns how many histories there are.
-func (c checked) count() int {
-	many := 0
-	for range c.histories() {
-		many++
-	}
-	return many
-}
-
-// each returns a number of each history, ascending, each number once.
-func (c checked) each(number func(h history) int) ([]int, api.Bell) {
-	found := map[int]bool{}
-	for h := range c.histories() {
-		found[number(h)] = true
-	}
-	if len(found) == 0 {
-		return nil, api.Odds
-	}
-	return slices.Sorted(maps.Keys(found)), api.Fine
 }
 
 // spanOf returns the span from the least to the greatest count of a thing.
@@ -222,29 +193,11 @@ func spanOf(b api.StripBook, t thing) (api.Span, api.Bell) {
 		return api.Span{}, api.Missing
 	}
 	place := c.place(t)
-	list, l := c.each(func(h history) int { return h.counted[place] })
+	list, l := histories.Numbers(c.histories(), func(h history) int { return h.counted[place] })
 	if l != api.Fine {
 		return api.Span{}, l
 	}
 	return api.Span{Low: list[0], High: list[len(list)-1]}, api.Fine
-}
-
-// sure returns how sure something is.
-func (c checked) sure(is func(h history) bool) (api.Sure, api.Bell) {
-	all, with := 0, 0
-	for h := range c.histories() {
-		all++
-		with += one(is(h))
-	}
-	switch {
-	case all == 0:
-		return 0, api.Odds
-	case with == all:
-		return api.Yes, api.Fine
-	case with == 0:
-		return api.No, api.Fine
-	}
-	return api.Open, api.Fine
 }
 
 // whole returns the sales of all lines if each history has the same ones.

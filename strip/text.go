@@ -8,12 +8,6 @@ import (
 	"nosale/lines"
 )
 
-// textLine is a line of the text of a book.
-type textLine interface {
-	// text returns the line without its line feed.
-	text() string
-}
-
 type (
 	headLine    [5]int // Last, First, Begin, Digits and Clerks
 	articleLine api.StripArticle
@@ -21,7 +15,7 @@ type (
 	countLine   api.StripCount
 )
 
-func (l headLine) text() string {
+func (l headLine) Text() string {
 	text := "strip"
 	for _, n := range l {
 		text += " " + strconv.Itoa(n)
@@ -29,18 +23,18 @@ func (l headLine) text() string {
 	return text
 }
 
-func (l articleLine) text() string {
+func (l articleLine) Text() string {
 	return "article " + strconv.Itoa(l.Dept) + " " + strconv.Itoa(l.Price)
 }
 
-func (l itemLine) text() string {
+func (l itemLine) Text() string {
 	if l.Torn {
 		return "torn " + lines.WriteSpan(l.Many)
 	}
 	return strings.Join([]string{"entry", l.Number, l.Amount, l.Total, strconv.Itoa(l.Dept), strconv.Itoa(l.Clerk)}, " ")
 }
 
-func (l countLine) text() string {
+func (l countLine) Text() string {
 	text := kinds()[l.Kind].word
 	if l.Kind != api.StripAll {
 		text += " " + strconv.Itoa(l.A)
@@ -49,8 +43,8 @@ func (l countLine) text() string {
 }
 
 // written returns the lines of the book's text.
-func (b book) written() []textLine {
-	all := []textLine{headLine{b.Last, b.First, b.Begin, b.Digits, b.Clerks}}
+func (b book) written() []lines.Line {
+	all := []lines.Line{headLine{b.Last, b.First, b.Begin, b.Digits, b.Clerks}}
 	for _, a := range b.Articles {
 		all = append(all, articleLine(a))
 	}
@@ -63,15 +57,6 @@ func (b book) written() []textLine {
 	return all
 }
 
-// text returns the book's text.
-func (b book) text() string {
-	var text strings.Builder
-	for _, l := range b.written() {
-		text.WriteString(l.text() + "\n")
-	}
-	return text.String()
-}
-
 // readBook reads a book that is not checked yet.
 func readBook(text string) (book, error) {
 	texts := lines.Split(text)
@@ -82,7 +67,7 @@ func readBook(text string) (book, error) {
 	before := headPlace
 	for i, t := range texts {
 		l, ok := readLine(t)
-		if !ok || !follows(l, i, before) {
+		if !ok || !lines.Follows(placeOf(l), before, i) {
 			return book{}, lines.Wrong{Line: i + 1}
 		}
 		before = placeOf(l)
@@ -91,7 +76,7 @@ func readBook(text string) (book, error) {
 	return b, nil
 }
 
-// The places of lines, in their order.
+// The places of lines, in their order; the first one is that of the first line alone.
 const (
 	headPlace = iota
 	articlePlace
@@ -100,7 +85,7 @@ const (
 )
 
 // placeOf returns the place of a line.
-func placeOf(l textLine) int {
+func placeOf(l lines.Line) int {
 	switch l.(type) {
 	case headLine:
 		return headPlace
@@ -112,14 +97,8 @@ func placeOf(l textLine) int {
 	return countPlace
 }
 
-// follows tells whether a line can stand behind so many others, the last of which has a place.
-func follows(l textLine, others, before int) bool {
-	place := placeOf(l)
-	return (place == headPlace) == (others == 0) && place >= before
-}
-
 // add adds to the book what a line says.
-func (b *book) add(l textLine) {
+func (b *book) add(l lines.Line) {
 	switch l := l.(type) {
 	case headLine:
 		b.Last, b.First, b.Begin, b.Digits, b.Clerks = l[0], l[1], l[2], l[3], l[4]
@@ -133,7 +112,7 @@ func (b *book) add(l textLine) {
 }
 
 // readLine reads a line, and tells whether it has one of the forms.
-func readLine(text string) (textLine, bool) {
+func readLine(text string) (lines.Line, bool) {
 	r := lines.Read(text)
 	l := anyLine(r)
 	if !r.Right() {
@@ -143,7 +122,7 @@ func readLine(text string) (textLine, bool) {
 }
 
 // anyLine reads a line of any kind. Whether the digits of an entry are some, CheckBook tells.
-func anyLine(r *lines.Reading) textLine {
+func anyLine(r *lines.Reading) lines.Line {
 	word := r.Word()
 	switch word {
 	case "strip":
@@ -159,7 +138,7 @@ func anyLine(r *lines.Reading) textLine {
 }
 
 // anyCount reads a count with a word.
-func anyCount(r *lines.Reading, word string) textLine {
+func anyCount(r *lines.Reading, word string) lines.Line {
 	for k, kind := range kinds() {
 		if kind.word != word {
 			continue

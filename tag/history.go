@@ -2,6 +2,7 @@ package tag
 
 import (
 	"cmp"
+	"iter"
 	"maps"
 	"slices"
 
@@ -113,24 +114,17 @@ type hung struct {
 // numbers returns the numbers that can stand on the tag by a word.
 func (t hung) numbers(w word) []int { return numbersOf(t.means[spot{t.tag, w}]) }
 
-// misread tells how sure it is that other letters stand on the tag than are read.
-func (t hung) misread() api.Sure {
-	all, others := 0, 0
-	for _, w := range t.known {
-		for _, r := range t.means[spot{t.tag, w}] {
-			all++
-			if r.other {
-				others++
+// stands yields what stands on the tag in histories.
+func (t hung) stands() iter.Seq[reading] {
+	return func(yield func(reading) bool) {
+		for _, w := range t.known {
+			for _, r := range t.means[spot{t.tag, w}] {
+				if !yield(r) {
+					return
+				}
 			}
 		}
 	}
-	switch others {
-	case 0:
-		return api.No
-	case all:
-		return api.Yes
-	}
-	return api.Open
 }
 
 // mostAlike returns how many words are left at most once the number of the tag is known.

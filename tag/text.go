@@ -10,25 +10,19 @@ import (
 // empty stands for what a line leaves empty.
 const empty = "-"
 
-// textLine is a line of the text of a house.
-type textLine interface {
-	// text returns the line without its line feed.
-	text() string
-}
-
 type (
 	houseLine struct{ letters, spare, repeat string }
 	alikeLine string
 	tagLine   api.TagTag
 )
 
-func (l houseLine) text() string {
+func (l houseLine) Text() string {
 	return strings.Join([]string{"house", l.letters, orEmpty(l.spare), orEmpty(l.repeat)}, " ")
 }
 
-func (l alikeLine) text() string { return "alike " + string(l) }
+func (l alikeLine) Text() string { return "alike " + string(l) }
 
-func (l tagLine) text() string { return "tag " + l.Reads + " " + lines.WriteSpan(l.Price) }
+func (l tagLine) Text() string { return "tag " + l.Reads + " " + lines.WriteSpan(l.Price) }
 
 // orEmpty returns a field for a text that can be empty.
 func orEmpty(text string) string {
@@ -39,8 +33,8 @@ func orEmpty(text string) string {
 }
 
 // written returns the lines of the house's text.
-func (h house) written() []textLine {
-	all := []textLine{houseLine{h.Letters, h.Spare, h.Repeat}}
+func (h house) written() []lines.Line {
+	all := []lines.Line{houseLine{h.Letters, h.Spare, h.Repeat}}
 	for _, pair := range h.Alike {
 		all = append(all, alikeLine(pair))
 	}
@@ -48,15 +42,6 @@ func (h house) written() []textLine {
 		all = append(all, tagLine(t))
 	}
 	return all
-}
-
-// text returns the house's text.
-func (h house) text() string {
-	var text strings.Builder
-	for _, l := range h.written() {
-		text.WriteString(l.text() + "\n")
-	}
-	return text.String()
 }
 
 // readHouse reads a house that is not checked yet.
@@ -76,7 +61,7 @@ func readHouse(text string) (house, error) {
 }
 
 // add adds to the house what a line says, and tells whether the line can stand there; it is the first one, or not.
-func (h *house) add(l textLine, first bool) bool {
+func (h *house) add(l lines.Line, first bool) bool {
 	switch l := l.(type) {
 	case houseLine:
 		h.Letters, h.Spare, h.Repeat = l.letters, l.spare, l.repeat
@@ -93,8 +78,8 @@ func (h *house) add(l textLine, first bool) bool {
 }
 
 // readLine reads a line, and tells whether it has one of the forms. Whether letters are some, CheckHouse tells.
-func readLine(text string) (textLine, bool) {
-	var l textLine
+func readLine(text string) (lines.Line, bool) {
+	var l lines.Line
 	r := lines.Read(text)
 	switch r.Word() {
 	case "house":

@@ -3,10 +3,10 @@ package wheels
 import (
 	"cmp"
 	"iter"
-	"maps"
 	"slices"
 
 	"nosale/api"
+	"nosale/histories"
 )
 
 // checked is a book without a bell.
@@ -146,41 +146,12 @@ func (c checked) agrees(shown row, ring int) bool {
 	return shown == read
 }
 
-// possible tells whether there is a history.
-func (c checked) possible() bool {
-	for range c.histories() {
-		return true
-	}
-	return false
-}
-
 // ifPossible returns a book if it has a history.
 func ifPossible(b api.WheelsBook) (api.WheelsBook, api.Bell) {
-	if !newChecked(b).possible() {
+	if !histories.Any(newChecked(b).histories()) {
 		return api.WheelsBook{}, api.Odds
 	}
 	return b, api.Fine
-}
-
-// count returns how many histories there are.
-func (c checked) count() int {
-	many := 0
-	for range c.histories() {
-		many++
-	}
-	return many
-}
-
-// each returns a number of each history, ascending, each number once.
-func (c checked) each(number func(h history) int) ([]int, api.Bell) {
-	found := map[int]bool{}
-	for h := range c.histories() {
-		found[number(h)] = true
-	}
-	if len(found) == 0 {
-		return nil, api.Odds
-	}
-	return slices.Sorted(maps.Keys(found)), api.Fine
 }
 
 // wrong returns the error of a history.
@@ -194,26 +165,6 @@ func (c checked) wrong(h history) int {
 		e -= c.size
 	}
 	return e
-}
-
-// sure returns how sure a slip is, if there is a history.
-func (c checked) sure(slip api.WheelsSlip) (api.Sure, api.Bell) {
-	all, with := 0, 0
-	for h := range c.histories() {
-		all++
-		if slices.Contains(h.slips[:h.many], slip) {
-			with++
-		}
-	}
-	switch {
-	case all == 0:
-		return 0, api.Odds
-	case with == all:
-		return api.Yes, api.Fine
-	case with == 0:
-		return api.No, api.Fine
-	}
-	return api.Open, api.Fine
 }
 
 // slipLists yields the slips of each history.

@@ -5,6 +5,7 @@ import (
 	"sync"
 
 	"nosale/api"
+	"nosale/histories"
 )
 
 // contradictions yields each list of rings whose looks no history shows, all others being unread.
@@ -96,7 +97,7 @@ func (c checked) bestLook() (ring, left int) {
 	for s, many := range c.sights() {
 		worst[s.ring] = max(worst[s.ring], many)
 	}
-	ring, left = -1, c.count()
+	ring, left = -1, histories.Count(c.histories())
 	for r := range len(c.Rings) {
 		if !c.lookedAt(r) && worst[r] < left {
 			ring, left = r, worst[r]

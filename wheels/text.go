@@ -2,17 +2,10 @@ package wheels
 
 import (
 	"strconv"
-	"strings"
 
 	"nosale/api"
 	"nosale/lines"
 )
-
-// line is a line of the text of a book.
-type line interface {
-	// text returns the line without its line feed.
-	text() string
-}
 
 type (
 	headLine  int
@@ -21,21 +14,21 @@ type (
 	ringLine  api.WheelsRing
 )
 
-func (l headLine) text() string { return "wheels " + strconv.Itoa(int(l)) }
+func (l headLine) Text() string { return "wheels " + strconv.Itoa(int(l)) }
 
-func (l wheelLine) text() string {
+func (l wheelLine) Text() string {
 	return "wheel " + strconv.Itoa(l.Base) + " " + kinds()[l.Kind].word
 }
 
-func (l startLine) text() string { return "start " + lines.WriteList(l) }
+func (l startLine) Text() string { return "start " + lines.WriteList(l) }
 
-func (l ringLine) text() string {
+func (l ringLine) Text() string {
 	return "ring " + lines.WriteList(l.Keys) + " " + lines.WriteList(l.Read)
 }
 
 // written returns the lines of the book's text.
-func (c checked) written() []line {
-	all := []line{headLine(c.Most)}
+func (c checked) written() []lines.Line {
+	all := []lines.Line{headLine(c.Most)}
 	for _, w := range c.Wheels {
 		all = append(all, wheelLine(w))
 	}
@@ -44,15 +37,6 @@ func (c checked) written() []line {
 		all = append(all, ringLine(r))
 	}
 	return all
-}
-
-// text returns the book's text.
-func (c checked) text() string {
-	var text strings.Builder
-	for _, l := range c.written() {
-		text.WriteString(l.text() + "\n")
-	}
-	return text.String()
 }
 
 // wrongLine is what reading panics with at a line that does not have its form, or its place.
@@ -96,7 +80,7 @@ func need(right bool) {
 }
 
 // inPlace tells whether a line can stand behind so many others, and before or behind the start.
-func inPlace(l line, at int, started bool) bool {
+func inPlace(l lines.Line, at int, started bool) bool {
 	switch l.(type) {
 	case headLine:
 		return at == 0
@@ -107,7 +91,7 @@ func inPlace(l line, at int, started bool) bool {
 }
 
 // readLine reads a line; it panics if the line has not its form.
-func readLine(text string) line {
+func readLine(text string) lines.Line {
 	fields := lines.Fields(text)
 	word, fields := fields[0], fields[1:]
 	switch {

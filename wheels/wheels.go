@@ -6,6 +6,8 @@ import (
 	"slices"
 
 	"nosale/api"
+	"nosale/histories"
+	"nosale/lines"
 )
 
 // CheckBook returns the first bell of a book.
@@ -99,7 +101,7 @@ func Histories(b api.WheelsBook) (int, api.Bell) {
 	if s != api.Fine {
 		return 0, s
 	}
-	return c.count(), api.Fine
+	return histories.Count(c.histories()), api.Fine
 }
 
 // Shows returns the amounts that the wheels show behind so many rings in histories.
@@ -111,7 +113,7 @@ func Shows(b api.WheelsBook, rings int) ([]int, api.Bell) {
 	if rings < 0 || rings > len(c.Rings) {
 		return nil, api.Bound
 	}
-	return c.each(func(h history) int { return c.amount(h.shown[rings]) })
+	return histories.Numbers(c.histories(), func(h history) int { return c.amount(h.shown[rings]) })
 }
 
 // Slipped returns whether the carry of a wheel slipped in a ring.
@@ -123,7 +125,8 @@ func Slipped(b api.WheelsBook, ring, wheel int) (api.Sure, api.Bell) {
 	if ring < 0 || ring >= len(c.Rings) || wheel < 0 || wheel >= len(c.Wheels) {
 		return 0, api.Missing
 	}
-	return c.sure(api.WheelsSlip{Ring: ring, Wheel: wheel})
+	slip := api.WheelsSlip{Ring: ring, Wheel: wheel}
+	return histories.Sure(c.histories(), func(h history) bool { return slices.Contains(h.slips[:h.many], slip) })
 }
 
 // Errors returns the errors of histories.
@@ -132,7 +135,7 @@ func Errors(b api.WheelsBook) ([]int, api.Bell) {
 	if s != api.Fine {
 		return nil, s
 	}
-	return c.each(c.wrong)
+	return histories.Numbers(c.histories(), c.wrong)
 }
 
 // Fewest returns the slips of a history with the fewest ones.
@@ -216,7 +219,7 @@ func Next(b api.WheelsBook, keys []int) ([]int, api.Bell) {
 	}
 	last := len(c.Rings) + 1
 	next := c.with(api.WheelsRing{Keys: keys})
-	return next.each(func(h history) int { return next.amount(h.shown[last]) })
+	return histories.Numbers(next.histories(), func(h history) int { return next.amount(h.shown[last]) })
 }
 
 // Print returns the text of a book.
@@ -225,7 +228,7 @@ func Print(b api.WheelsBook) (string, api.Bell) {
 	if s != api.Fine {
 		return "", s
 	}
-	return c.text(), api.Fine
+	return lines.Write(c.written()), api.Fine
 }
 
 // Parse reads the text of a book; the line is that of the first one that is wrong.

@@ -1,0 +1,92 @@
+package change
+
+import (
+	"slices"
+	"sync"
+
+	"nosale/api"
+)
+
+// drawersOf returns the coins that the drawer has at first in histories, each once.
+func drawersOf(all []history) []coins {
+	var drawers []coins
+	for _, h := range all {
+		if !slices.Contains(drawers, h.first) {
+			drawers = append(drawers, h.first)
+		}
+	}
+	return drawers
+}
+
+// best returns the least order in which the fewest sales are refused at most, whichever of the drawers it is, and how many.
+func (c checked) best(drawers []coins) (best order, refused int) {
+	refused = len(c.Sales) + 1
+orders:
+	for o := range c.orders() {
+		most := 0
+		for _, first := range drawers {
+			most = max(most, c.play(first, o).manyRefused())
+			if most >= refused {
+				continue orders
+			}
+		}
+		best, refused = o, most
+	}
+	return best, refused
+}
+
+// floats returns all coins, as many as can be put into the drawer, with which no sale is refused in any history.
+func (c checked) floats(all []history) []coins {
+	tries := slices.Collect(c.handfuls(api.MaxChangeMore))
+	enough := make(chan coins, len(tries))
+	var wait sync.WaitGroup
+	for _, more := range tries {
+		wait.Add(1)
+		go func() {
+			defer wait.Done()
+			// The change that is known is written to: each goroutine has its own.
+			if newChecked(c.book).isEnough(more, all) {
+				enough <- more
+			}
+		}()
+	}
+	wait.Wait()
+	close(enough)
+	var floats []coins
+	for more := range enough {
+		floats = append(floats, more)
+	}
+	return floats
+}
+
+// isEnough tells whether no sale is refused in any history if more coins are in the drawer at first.
+func (c checked) isEnough(more coins, all []history) bool {
+	for _, h := range all {
+		if c.play(h.first.plus(more), h.order).refused != 0 {
+			return false
+		}
+	}
+	return true
+}
+
+// ask returns the kind whose coins in the end leave the fewest histories at most, once they are counted, and how many those are; -1, and all histories, if none leaves fewer.
+func (c checked) ask(all []history) (kind, left int) {
+	kind, left = -1, len(all)
+	for k := range len(c.Kinds) {
+		if most := mostAlike(all, k); most < left {
+			kind, left = k, most
+		}
+	}
+	return kind, left
+}
+
+// mostAlike returns how many histories have as many coins of a kind in the end, at most.
+func mostAlike(all []history, kind int) int {
+	alike, most := map[int]int{}, 0
+	for _, h := range all {
+		n := h.last[kind]
+		alike[n]++
+		most = max(most, alike[n])
+	}
+	return most
+}

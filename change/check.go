@@ -4,44 +4,26 @@ import (
 	"slices"
 
 	"nosale/api"
+	"nosale/checks"
 	"nosale/spans"
 )
 
 // book is a book that can have a bell.
 type book struct{ api.ChangeBook }
 
-// part is one of the lists of a book: how many elements it has, and whether it can have so many; and the bell of an element, which relies on those before it.
-type part struct {
-	long func(b book) (many int, right bool)
-	bell func(b book, i int) api.Bell
-}
-
-// parts returns the lists of a book in the order in which they are checked.
-func parts() [5]part {
-	return [5]part{
-		{book.longKinds, book.checkKind},
-		{book.longDrawer, book.checkDrawer},
-		{book.longSales, book.checkSale},
-		{book.longFirsts, book.checkFirst},
-		{book.longCounts, book.checkCount},
+// lists returns the lists of a book in the order in which they are checked.
+func (b book) lists() []checks.List[book] {
+	return []checks.List[book]{
+		{Long: book.longKinds, Bell: book.checkKind},
+		{Long: book.longDrawer, Bell: book.checkDrawer},
+		{Long: book.longSales, Bell: book.checkSale},
+		{Long: book.longFirsts, Bell: book.checkFirst},
+		{Long: book.longCounts, Bell: book.checkCount},
 	}
 }
 
 // bell returns the first bell of the book.
-func (b book) bell() api.Bell {
-	for _, p := range parts() {
-		many, right := p.long(b)
-		if !right {
-			return api.Count
-		}
-		for i := range many {
-			if l := p.bell(b, i); l != api.Fine {
-				return l
-			}
-		}
-	}
-	return api.Fine
-}
+func (b book) bell() api.Bell { return checks.First(b, b.lists()...) }
 
 func (b book) longKinds() (many int, right bool) {
 	return len(b.Kinds), spans.Within(len(b.Kinds), 1, api.MaxChangeKinds)
@@ -77,7 +59,7 @@ func (b book) checkKind(i int) api.Bell {
 // checkDrawer returns the bell of the span of a kind in the drawer.
 func (b book) checkDrawer(i int) api.Bell {
 	s := b.Drawer[i]
-	if !spans.IsFrom(s, 0, api.MaxChangeCoins) || s.High-s.Low >= api.MaxChangeWide {
+	if !spans.IsFrom(s, 0, api.MaxChangeCoins) || spans.Many(s) > api.MaxChangeWide {
 		return api.Bound
 	}
 	return api.Fine

@@ -7,6 +7,7 @@ import (
 
 	"nosale/api"
 	"nosale/change"
+	"nosale/dice"
 )
 
 // bookOf returns a book with these kinds, an empty drawer and no sales.
@@ -144,17 +145,17 @@ func TestSwap(t *testing.T) {
 
 // P4.1: all coins, amounts and swaps are those of the oracle.
 func TestCoinsLikeOracle(t *testing.T) {
-	d := dice(1)
+	d := dice.Dice(1)
 	gaps, ties, swaps := 0, 0, map[int]int{}
 	for range 2500 {
 		kinds := anyKinds(&d)
 		b := bookOf(kinds...)
-		coins := anyCoins(&d, len(kinds), 1+d.roll(5))
+		coins := anyCoins(&d, len(kinds), 1+d.Roll(5))
 		if n, l := change.Amount(b, coins); n != worth(kinds, coins) || l != api.Fine {
 			t.Errorf("%v of %v: %d, bell %d", coins, kinds, n, l)
 		}
-		amount := min(api.MaxChangePrice, d.roll(worth(kinds, coins)+3))
-		if d.roll(3) > 0 {
+		amount := min(api.MaxChangePrice, d.Roll(worth(kinds, coins)+3))
+		if d.Roll(3) > 0 {
 			// an amount that coins have
 			some := added(coins, anyCoins(&d, len(kinds), 2), -1)
 			amount = min(api.MaxChangePrice, max(0, worth(kinds, some)))
@@ -170,7 +171,7 @@ func TestCoinsLikeOracle(t *testing.T) {
 		if v, found, l := change.Give(b, coins, amount); !slices.Equal(v, want) || found != (want != nil) || l != api.Fine {
 			t.Errorf("%d out of %v of %v: %v, %v, bell %d, want %v", amount, coins, kinds, v, found, l, want)
 		}
-		most := d.roll(api.MaxChangeAmount + 1)
+		most := d.Roll(api.MaxChangeAmount + 1)
 		list := cannotOf(kinds, coins, most)
 		if len(list) > 0 {
 			gaps++
@@ -178,8 +179,8 @@ func TestCoinsLikeOracle(t *testing.T) {
 		if v, l := change.Cannot(b, coins, most); !slices.Equal(v, list) || l != api.Fine {
 			t.Errorf("%v of %v up to %d: %v, bell %d, want %v", coins, kinds, most, v, l, list)
 		}
-		if d.roll(3) == 0 {
-			swaps[oneSwap(t, kinds, coins, d.roll(min(10, api.MaxChangeAmount)))]++
+		if d.Roll(3) == 0 {
+			swaps[oneSwap(t, kinds, coins, d.Roll(min(10, api.MaxChangeAmount)))]++
 		}
 	}
 	if gaps < 500 || ties < 20 || swaps[-1] < 50 || swaps[0] < 50 || swaps[1]+swaps[2]+swaps[3]+swaps[4] < 20 {

@@ -241,11 +241,5 @@ func coinsIn(b api.ChangeBook, kind int, tell func(h history) coins) ([]int, api
 
 // clash returns the fewest counts that alone have no history, and of several such lists the least one, if there are such counts.
 func (c checked) clash() (counts []int, found bool) {
-	var clashes [][]int
-	for set := range 1 << len(c.Counts) {
-		if !histories.Any(c.alone(set)) {
-			clashes = append(clashes, lists.OfSet(set))
-		}
-	}
-	return lists.Least(lists.Compare, clashes...)
+	return lists.LeastSet(len(c.Counts), func(set int) bool { return !histories.Any(c.alone(set)) })
 }

@@ -9,11 +9,12 @@ import (
 
 	"nosale/api"
 	"nosale/change"
+	"nosale/dice"
 )
 
 // P0.1: each function returns, whatever it is called with, and returns the same to several goroutines; it changes nothing.
 func TestAlwaysTheSame(t *testing.T) {
-	d := dice(6)
+	d := dice.Dice(6)
 	books := []api.ChangeBook{{}}
 	for _, text := range texts() {
 		books = append(books, parse(t, text))
@@ -51,31 +52,31 @@ func TestAlwaysTheSame(t *testing.T) {
 
 // P0.1: numbers that are very great or very small, and slices that are very long, have a bell.
 func TestGarbage(t *testing.T) {
-	d := dice(7)
+	d := dice.Dice(7)
 	odd := []int{math.MinInt, -1, 0, 0, 1, 1, 2, 3, 5, 9, 30, 500, math.MaxInt}
-	some := func() int { return odd[d.roll(len(odd))] }
+	some := func() int { return odd[d.Roll(len(odd))] }
 	list := func() []int {
 		var list []int
-		for range d.roll(5) {
+		for range d.Roll(5) {
 			list = append(list, some())
 		}
 		return list
 	}
 	for range 200 {
 		b, _ := anyBook(&d, true)
-		if d.roll(2) == 0 {
+		if d.Roll(2) == 0 {
 			b.Kinds = list()
 		}
-		for range d.roll(3) {
+		for range d.Roll(3) {
 			b.Drawer = append(b.Drawer, to(some(), some()))
 		}
-		for range d.roll(3) {
+		for range d.Roll(3) {
 			b.Sales = append(b.Sales, api.ChangeSale{Price: some(), Paid: list(), Seen: api.Sure(some())})
 		}
-		for range d.roll(3) {
+		for range d.Roll(3) {
 			b.Firsts = append(b.Firsts, first(some(), some()))
 		}
-		for range d.roll(3) {
+		for range d.Roll(3) {
 			b.Counts = append(b.Counts, count(some(), some(), some()))
 		}
 		report(b)
@@ -191,7 +192,7 @@ func TestNoSharedCoins(t *testing.T) {
 
 // P4.6, P0.4: what really happened is a history, and is among all that is told.
 func TestWhatReallyHappened(t *testing.T) {
-	d := dice(8)
+	d := dice.Dice(8)
 	for range 500 {
 		b, real := anyBook(&d, false)
 		if is, l := change.IsHistory(b, real.first, real.order); !is || l != api.Fine {
@@ -229,7 +230,7 @@ func TestWhatReallyHappened(t *testing.T) {
 
 // P4.7: each number that is told is that of a history, and no other one is; each thing that is open is so in one, and not in another one.
 func TestReached(t *testing.T) {
-	d := dice(9)
+	d := dice.Dice(9)
 	for i := range 300 {
 		b, _ := anyBook(&d, i%2 == 0)
 		if n, _ := change.Histories(b); n == 0 {
@@ -279,7 +280,7 @@ func TestReached(t *testing.T) {
 
 // P4.8: change is of its amount, out of what is there, and no other has fewer coins; more coins of a kind never take an amount away.
 func TestFewestCoins(t *testing.T) {
-	d := dice(10)
+	d := dice.Dice(10)
 	for range 600 {
 		kinds := anyKinds(&d)
 		b, coins := bookOf(kinds...), anyCoins(&d, len(kinds), 5)
@@ -303,7 +304,7 @@ func TestFewestCoins(t *testing.T) {
 				t.Errorf("%d out of %v of %v: %v, but there is %v", amount, coins, kinds, v, other)
 			}
 		}
-		most := d.roll(api.MaxChangeAmount + 1)
+		most := d.Roll(api.MaxChangeAmount + 1)
 		before, _ := change.Cannot(b, coins, most)
 		for k := range kinds {
 			more := slices.Clone(coins)
@@ -325,12 +326,12 @@ func within(few, all []int) bool {
 
 // P4.9: the amount of a drawer grows by the prices of the sales that go.
 func TestConserved(t *testing.T) {
-	d := dice(11)
+	d := dice.Dice(11)
 	for range 500 {
 		b, _ := anyBook(&d, true)
 		drawer := anyCoins(&d, len(b.Kinds), 9)
 		before, _ := change.Amount(b, drawer)
-		refused, after, l := change.Play(b, drawer, d.shuffled(len(b.Sales)))
+		refused, after, l := change.Play(b, drawer, d.Shuffled(len(b.Sales)))
 		for i, s := range b.Sales {
 			if !slices.Contains(refused, i) {
 				before += s.Price
@@ -344,7 +345,7 @@ func TestConserved(t *testing.T) {
 
 // P4.10: with the float no sale is refused, and no fewer coins are enough; no other order refuses fewer than Best.
 func TestPlans(t *testing.T) {
-	d := dice(12)
+	d := dice.Dice(12)
 	for i := range 200 {
 		b, _ := anyBook(&d, i%2 == 0)
 		all := pasts(b)
@@ -388,11 +389,11 @@ func TestPlans(t *testing.T) {
 
 // P4.10: a swap conserves the amount, and gives change for all that it says.
 func TestSwaps(t *testing.T) {
-	d := dice(13)
+	d := dice.Dice(13)
 	swapped := 0
 	for range 1000 {
 		kinds := anyKinds(&d)
-		b, coins, most := bookOf(kinds...), anyCoins(&d, len(kinds), 6), d.roll(12)
+		b, coins, most := bookOf(kinds...), anyCoins(&d, len(kinds), 6), d.Roll(12)
 		in, out, found, l := change.Swap(b, coins, most)
 		if l != api.Fine {
 			t.Fatal(l)

@@ -6,6 +6,7 @@ import (
 
 	"nosale/api"
 	"nosale/change"
+	"nosale/dice"
 )
 
 // noMore tells whether o, in which more is known than in b, makes nothing possible that was not, and takes back nothing that was sure.
@@ -54,7 +55,7 @@ func noMore(t *testing.T, b, o api.ChangeBook) {
 
 // P4.11, P0.6: what is seen, known or counted never adds a history, and takes back nothing.
 func TestKnowingMore(t *testing.T) {
-	d := dice(14)
+	d := dice.Dice(14)
 	for range 150 {
 		b, real := anyBook(&d, false)
 		for i, s := range b.Sales {
@@ -68,8 +69,8 @@ func TestKnowingMore(t *testing.T) {
 			noMore(t, b, o)
 		}
 		if many := len(real.order); many > 1 && len(b.Firsts) < api.MaxChangeFirsts {
-			at := 1 + d.roll(many-1)
-			f := first(real.order[d.roll(at)], real.order[at])
+			at := 1 + d.Roll(many-1)
+			f := first(real.order[d.Roll(at)], real.order[at])
 			o, l := change.Know(b, f)
 			if l != api.Fine {
 				t.Fatalf("%+v: %v cannot be known, bell %d", b, f, l)
@@ -77,7 +78,7 @@ func TestKnowingMore(t *testing.T) {
 			noMore(t, b, o)
 		}
 		if len(b.Counts) < api.MaxChangeCounts {
-			k := d.roll(len(b.Kinds))
+			k := d.Roll(len(b.Kinds))
 			c := api.ChangeCount{Kind: k, Many: around(&d, real.last[k], 3, api.MaxChangeCount)}
 			o, l := change.Note(b, c)
 			if l != api.Fine {
@@ -90,7 +91,7 @@ func TestKnowingMore(t *testing.T) {
 
 // P4.11: counts that clash do so alone, and no fewer do.
 func TestClashAlone(t *testing.T) {
-	d := dice(15)
+	d := dice.Dice(15)
 	clashes := map[int]int{}
 	for range 600 {
 		b, _ := anyBook(&d, true)
@@ -125,7 +126,7 @@ func TestClashAlone(t *testing.T) {
 
 // P4.11: once it is counted what Ask asks, there are no more histories than it says.
 func TestAsked(t *testing.T) {
-	d := dice(16)
+	d := dice.Dice(16)
 	asked := 0
 	for i := range 300 {
 		b, _ := anyBook(&d, i%2 == 0)
@@ -178,11 +179,11 @@ func times(b api.ChangeBook, n int) api.ChangeBook {
 
 // P4.12: values that are all so many times as great change nothing but amounts.
 func TestTimes(t *testing.T) {
-	d := dice(17)
+	d := dice.Dice(17)
 	scaled := 0
 	for i := range 400 {
 		b, _ := anyBook(&d, i%2 == 0)
-		n := 2 + d.roll(4)
+		n := 2 + d.Roll(4)
 		o := times(b, n)
 		if change.CheckBook(o) != api.Fine {
 			continue
@@ -196,7 +197,7 @@ func TestTimes(t *testing.T) {
 		if more, l := change.Amount(o, coins); more != n*amount || l != api.Fine {
 			t.Errorf("%v of %v: %d, %d times as great: %d", coins, b.Kinds, amount, n, more)
 		}
-		most := d.roll(api.MaxChangeAmount/n + 1)
+		most := d.Roll(api.MaxChangeAmount/n + 1)
 		v, found, l := change.Give(b, coins, most)
 		w, is, l2 := change.Give(o, coins, n*most)
 		if !slices.Equal(v, w) || found != is || l+l2 != api.Fine {

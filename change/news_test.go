@@ -7,6 +7,7 @@ import (
 
 	"nosale/api"
 	"nosale/change"
+	"nosale/dice"
 )
 
 // newsCase is a book of which more is known, and its text then.
@@ -87,7 +88,7 @@ func TestNote(t *testing.T) {
 
 // P4.4: what becomes known of a book is what the oracle leaves of it.
 func TestNewsLikeOracle(t *testing.T) {
-	d := dice(4)
+	d := dice.Dice(4)
 	odd := 0
 	for i := range 300 {
 		b, _ := anyBook(&d, i%2 == 0)
@@ -113,14 +114,14 @@ func TestNewsLikeOracle(t *testing.T) {
 				o, l := change.See(b, sale, went)
 				same("See", o, l, want, sale, went)
 			}
-			if f := first(sale, d.roll(len(b.Sales))); len(b.Firsts) < api.MaxChangeFirsts {
+			if f := first(sale, d.Roll(len(b.Sales))); len(b.Firsts) < api.MaxChangeFirsts {
 				want := clone(b)
 				want.Firsts = append(want.Firsts, f)
 				o, l := change.Know(b, f)
 				same("Know", o, l, want, f)
 			}
 		}
-		if c := count(d.roll(len(b.Kinds)), d.roll(3), 3+d.roll(3)); len(b.Counts) < api.MaxChangeCounts {
+		if c := count(d.Roll(len(b.Kinds)), d.Roll(3), 3+d.Roll(3)); len(b.Counts) < api.MaxChangeCounts {
 			want := clone(b)
 			want.Counts = append(want.Counts, c)
 			o, l := change.Note(b, c)

@@ -5,6 +5,7 @@ import (
 	"slices"
 
 	"nosale/api"
+	"nosale/dice"
 )
 
 // The oracle goes through all coins that can be given, all drawers and all orders, one by one; it calls nothing of the package.
@@ -322,34 +323,16 @@ func askOf(b api.ChangeBook, all []past) (kind, left int) {
 	return kind, left
 }
 
-// dice yields numbers that are always the same.
-type dice uint64
-
-// roll returns a number from 0 to n - 1.
-func (d *dice) roll(n int) int {
-	*d = *d*6364136223846793005 + 1442695040888963407
-	return int(uint64(*d) >> 33 % uint64(n))
-}
-
-// shuffled returns the numbers from 0 to n - 1 in some order.
-func (d *dice) shuffled(n int) []int {
-	var list []int
-	for i := range n {
-		list = slices.Insert(list, d.roll(i+1), i)
-	}
-	return list
-}
-
 // anyKinds returns values of kinds.
-func anyKinds(d *dice) []int {
+func anyKinds(d *dice.Dice) []int {
 	some := [][]int{{1}, {5}, {2, 1}, {5, 2}, {4, 2, 1}, {6, 4, 1}, {5, 2, 1}, {7, 5, 3}, {6, 4, 2}, {10, 5, 2, 1}, {12, 8, 6, 3}, {500, 200, 100, 50}}
-	if d.roll(3) > 0 {
-		return slices.Clone(some[d.roll(len(some))])
+	if d.Roll(3) > 0 {
+		return slices.Clone(some[d.Roll(len(some))])
 	}
-	top := []int{6, 20, api.MaxChangeValue}[d.roll(3)]
+	top := []int{6, 20, api.MaxChangeValue}[d.Roll(3)]
 	var kinds []int
-	for range 1 + d.roll(api.MaxChangeKinds) {
-		kinds = append(kinds, 1+d.roll(top))
+	for range 1 + d.Roll(api.MaxChangeKinds) {
+		kinds = append(kinds, 1+d.Roll(top))
 	}
 	slices.Sort(kinds)
 	kinds = slices.Compact(kinds)
@@ -358,54 +341,54 @@ func anyKinds(d *dice) []int {
 }
 
 // anyCoins returns a number from 0 to most for each kind.
-func anyCoins(d *dice, kinds, most int) []int {
+func anyCoins(d *dice.Dice, kinds, most int) []int {
 	var coins []int
 	for range kinds {
-		coins = append(coins, d.roll(most+1))
+		coins = append(coins, d.Roll(most+1))
 	}
 	return coins
 }
 
 // anySale returns a sale of which nothing was seen.
-func anySale(d *dice, kinds []int) api.ChangeSale {
+func anySale(d *dice.Dice, kinds []int) api.ChangeSale {
 	s := api.ChangeSale{Paid: make([]int, len(kinds))}
-	great := d.roll(1 + d.roll(len(kinds)))
-	s.Paid[great] = 1 + d.roll(1+d.roll(api.MaxChangePaid))
-	if d.roll(3) == 0 {
-		s.Paid[d.roll(len(kinds))]++
+	great := d.Roll(1 + d.Roll(len(kinds)))
+	s.Paid[great] = 1 + d.Roll(1+d.Roll(api.MaxChangePaid))
+	if d.Roll(3) == 0 {
+		s.Paid[d.Roll(len(kinds))]++
 	}
 	s.Paid[great] = min(s.Paid[great], api.MaxChangePaid)
 	paid := worth(kinds, s.Paid)
-	s.Price = d.roll(min(paid, api.MaxChangePrice) + 1)
+	s.Price = d.Roll(min(paid, api.MaxChangePrice) + 1)
 	// a price out of which change can be given in small coins
-	out := anyCoins(d, len(kinds), 1+d.roll(2))
+	out := anyCoins(d, len(kinds), 1+d.Roll(2))
 	clear(out[:great+1])
-	if p := paid - worth(kinds, out); d.roll(5) > 0 && p >= 0 && p <= api.MaxChangePrice {
+	if p := paid - worth(kinds, out); d.Roll(5) > 0 && p >= 0 && p <= api.MaxChangePrice {
 		s.Price = p
 	}
 	return s
 }
 
 // around returns a span from 0 to top in which a number is.
-func around(d *dice, n, wide, top int) api.Span {
-	low := max(0, n-d.roll(wide))
-	return to(low, min(top, max(n, low+d.roll(wide))))
+func around(d *dice.Dice, n, wide, top int) api.Span {
+	low := max(0, n-d.Roll(wide))
+	return to(low, min(top, max(n, low+d.Roll(wide))))
 }
 
 // anyBook returns a book without a bell, and what really happened; if lies is true, what is known can be false.
-func anyBook(d *dice, lies bool) (api.ChangeBook, past) {
+func anyBook(d *dice.Dice, lies bool) (api.ChangeBook, past) {
 	b := api.ChangeBook{Kinds: anyKinds(d)}
-	first := anyCoins(d, len(b.Kinds), 1+d.roll(3))
+	first := anyCoins(d, len(b.Kinds), 1+d.Roll(3))
 	for _, n := range first {
 		b.Drawer = append(b.Drawer, around(d, n, api.MaxChangeWide, api.MaxChangeCoins))
 	}
-	for range d.roll(api.MaxChangeSales + 1) {
+	for range d.Roll(api.MaxChangeSales + 1) {
 		b.Sales = append(b.Sales, anySale(d, b.Kinds))
 	}
-	real := played(b, first, d.shuffled(len(b.Sales)))
+	real := played(b, first, d.Shuffled(len(b.Sales)))
 	told := real
-	if lies && d.roll(2) == 0 {
-		told = played(b, anyCoins(d, len(b.Kinds), 4), d.shuffled(len(b.Sales)))
+	if lies && d.Roll(2) == 0 {
+		told = played(b, anyCoins(d, len(b.Kinds), 4), d.Shuffled(len(b.Sales)))
 	}
 	learn(d, &b, told)
 	if !lies {
@@ -413,21 +396,21 @@ func anyBook(d *dice, lies bool) (api.ChangeBook, past) {
 	}
 	// each of several counts can be right, but not all of them
 	for i, c := range b.Counts {
-		if all := drawers(b); d.roll(2) == 0 {
-			other := played(b, all[d.roll(len(all))], d.shuffled(len(b.Sales)))
-			b.Counts[i].Many = around(d, other.last[c.Kind], 1+d.roll(2), api.MaxChangeCount)
+		if all := drawers(b); d.Roll(2) == 0 {
+			other := played(b, all[d.Roll(len(all))], d.Shuffled(len(b.Sales)))
+			b.Counts[i].Many = around(d, other.last[c.Kind], 1+d.Roll(2), api.MaxChangeCount)
 		}
 	}
 	return b, real
 }
 
 // learn makes some of what happened known in a book.
-func learn(d *dice, b *api.ChangeBook, p past) {
-	if d.roll(3) == 0 {
+func learn(d *dice.Dice, b *api.ChangeBook, p past) {
+	if d.Roll(3) == 0 {
 		return
 	}
 	for i := range b.Sales {
-		if d.roll(3) > 0 {
+		if d.Roll(3) > 0 {
 			continue
 		}
 		b.Sales[i].Seen = api.No
@@ -435,13 +418,13 @@ func learn(d *dice, b *api.ChangeBook, p past) {
 			b.Sales[i].Seen = api.Yes
 		}
 	}
-	for range d.roll(api.MaxChangeFirsts + 1) {
-		if i := d.roll(max(1, len(p.order))); i > 0 && d.roll(2) == 0 {
-			b.Firsts = append(b.Firsts, api.ChangeFirst{Before: p.order[d.roll(i)], After: p.order[i]})
+	for range d.Roll(api.MaxChangeFirsts + 1) {
+		if i := d.Roll(max(1, len(p.order))); i > 0 && d.Roll(2) == 0 {
+			b.Firsts = append(b.Firsts, api.ChangeFirst{Before: p.order[d.Roll(i)], After: p.order[i]})
 		}
 	}
-	for range d.roll(api.MaxChangeCounts + 1) {
-		k := d.roll(len(b.Kinds))
-		b.Counts = append(b.Counts, api.ChangeCount{Kind: k, Many: around(d, p.last[k], 1+d.roll(6), api.MaxChangeCount)})
+	for range d.Roll(api.MaxChangeCounts + 1) {
+		k := d.Roll(len(b.Kinds))
+		b.Counts = append(b.Counts, api.ChangeCount{Kind: k, Many: around(d, p.last[k], 1+d.Roll(6), api.MaxChangeCount)})
 	}
 }

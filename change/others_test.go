@@ -7,6 +7,7 @@ import (
 
 	"nosale/api"
 	"nosale/change"
+	"nosale/dice"
 	"nosale/strip"
 	"nosale/tag"
 	"nosale/wheels"
@@ -28,7 +29,7 @@ func wentIn(p past) []int {
 }
 
 // stripOf returns the strip of the sales that went, of which only some of the totals can be read; the article of each sale has its index.
-func stripOf(d *dice, b api.ChangeBook, p past) api.StripBook {
+func stripOf(d *dice.Dice, b api.ChangeBook, p past) api.StripBook {
 	s := api.StripBook{Last: 99, First: 1, Digits: 4, Clerks: 1}
 	for i, sale := range b.Sales {
 		s.Articles = append(s.Articles, api.StripArticle{Dept: i, Price: sale.Price})
@@ -37,20 +38,20 @@ func stripOf(d *dice, b api.ChangeBook, p past) api.StripBook {
 	for _, i := range wentIn(p) {
 		total += b.Sales[i].Price
 		e := api.StripItem{Number: "??", Amount: "???", Total: "????", Dept: -1, Clerk: -1}
-		if d.roll(3) > 0 {
+		if d.Roll(3) > 0 {
 			e.Total = fmt.Sprintf("%04d", total)
 		}
 		s.Items = append(s.Items, e)
 		// no sale is printed twice
 		s.Counts = append(s.Counts, api.StripCount{Kind: api.StripSold, A: i, Many: to(1, 1)})
 	}
-	s.Counts = s.Counts[:d.roll(len(s.Counts)+1)]
+	s.Counts = s.Counts[:d.Roll(len(s.Counts)+1)]
 	return s
 }
 
 // P0.4, P0.5: what the strip tells of sales that went is so together with what the drawer tells, which finds from it what it left open.
 func TestStripTells(t *testing.T) {
-	d := dice(18)
+	d := dice.Dice(18)
 	found, ordered := 0, 0
 	for range 1000 {
 		b, real := anyBook(&d, false)
@@ -109,7 +110,7 @@ func TestStripTells(t *testing.T) {
 
 // P0.4, P0.5: the wheels show what the drawer grows by; whatever that tells of a sale, the drawer can be told.
 func TestWheelsTell(t *testing.T) {
-	d := dice(19)
+	d := dice.Dice(19)
 	found := 0
 	for range 600 {
 		b, real := anyBook(&d, false)

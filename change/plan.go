@@ -68,25 +68,3 @@ func (c checked) isEnough(more coins, all []history) bool {
 	}
 	return true
 }
-
-// ask returns the kind whose coins in the end leave the fewest histories at most, once they are counted, and how many those are; -1, and all histories, if none leaves fewer.
-func (c checked) ask(all []history) (kind, left int) {
-	kind, left = -1, len(all)
-	for k := range len(c.Kinds) {
-		if most := mostAlike(all, k); most < left {
-			kind, left = k, most
-		}
-	}
-	return kind, left
-}
-
-// mostAlike returns how many histories have as many coins of a kind in the end, at most.
-func mostAlike(all []history, kind int) int {
-	alike, most := map[int]int{}, 0
-	for _, h := range all {
-		n := h.last[kind]
-		alike[n]++
-		most = max(most, alike[n])
-	}
-	return most
-}

@@ -7,6 +7,7 @@ import (
 
 	"nosale/api"
 	"nosale/change"
+	"nosale/dice"
 )
 
 // P4.3: Best returns the least order that refuses the fewest sales at most.
@@ -97,7 +98,7 @@ func TestAsk(t *testing.T) {
 
 // P4.3: all plans are those of the oracle.
 func TestPlansLikeOracle(t *testing.T) {
-	d := dice(3)
+	d := dice.Dice(3)
 	asked, clashes, orders, floats := map[int]int{}, map[int]int{}, map[bool]int{}, map[int]int{}
 	for i := range 500 {
 		b, _ := anyBook(&d, i%2 == 0)

@@ -8,6 +8,7 @@ import (
 
 	"nosale/api"
 	"nosale/change"
+	"nosale/dice"
 )
 
 // P4.2: Play returns what is refused, and what is left; IsHistory whether that can be.
@@ -138,7 +139,7 @@ func TestManyHistories(t *testing.T) {
 
 // P4.2: all histories, and what is told of them, are those of the oracle.
 func TestHistoriesLikeOracle(t *testing.T) {
-	d := dice(2)
+	d := dice.Dice(2)
 	none, open, refusals := 0, 0, 0
 	for i := range 600 {
 		b, real := anyBook(&d, i%2 == 0)

@@ -7,12 +7,6 @@ import (
 	"nosale/lines"
 )
 
-// placed is a line of the text of a book, which has its place among the kinds of lines.
-type placed interface {
-	lines.Line
-	place() int
-}
-
 // The places of lines, in their order; the first one is that of the first line alone.
 const (
 	kindsPlace = iota
@@ -30,11 +24,11 @@ type (
 	countLine  api.ChangeCount
 )
 
-func (l kindsLine) place() int  { return kindsPlace }
-func (l drawerLine) place() int { return drawerPlace }
-func (l saleLine) place() int   { return salePlace }
-func (l firstLine) place() int  { return firstPlace }
-func (l countLine) place() int  { return countPlace }
+func (l kindsLine) Place() int  { return kindsPlace }
+func (l drawerLine) Place() int { return drawerPlace }
+func (l saleLine) Place() int   { return salePlace }
+func (l firstLine) Place() int  { return firstPlace }
+func (l countLine) Place() int  { return countPlace }
 
 func (l kindsLine) Text() string { return "change " + lines.WriteList(l) }
 
@@ -81,39 +75,8 @@ func (b book) written() []lines.Line {
 	return all
 }
 
-// wrongLine is what reading panics with at a line that does not have its form, or its place.
-type wrongLine struct{}
-
-// need panics if a line is not as it is to be.
-func need(right bool) {
-	if !right {
-		panic(wrongLine{})
-	}
-}
-
-// readBook reads a book that is not checked yet; if it is not right a line is wrong, 0 if there is none.
-func readBook(text string) (b book, line int, right bool) {
-	at := 0
-	defer func() {
-		if _, wrong := recover().(wrongLine); wrong {
-			b, line, right = book{}, at, false
-		}
-	}()
-	texts := lines.Split(text)
-	need(len(texts) > 0)
-	before := kindsPlace
-	for others, text := range texts {
-		at = others + 1
-		l := readLine(text)
-		need(lines.Follows(l.place(), before, others))
-		before = l.place()
-		b.add(l)
-	}
-	return b, 0, true
-}
-
 // add adds to the book what a line says.
-func (b *book) add(l placed) {
+func (b *book) add(l lines.Placed) {
 	switch l := l.(type) {
 	case kindsLine:
 		b.Kinds = l
@@ -128,37 +91,32 @@ func (b *book) add(l placed) {
 	}
 }
 
-// readLine reads a line; it panics if the line has none of the forms.
-func readLine(text string) placed {
-	r := lines.Read(text)
-	l := anyLine(r)
-	need(r.Right())
-	return l
-}
-
 // anyLine reads a line of any kind.
-func anyLine(r *lines.Reading) placed {
+func anyLine(r *lines.Reading) lines.Placed {
 	switch r.Word() {
 	case "change":
 		return kindsLine(r.List())
 	case "drawer":
 		return drawerLine(r.Span())
 	case "sale":
-		return saleLine{Price: r.Number(), Paid: r.List(), Seen: readSeen(r.Word())}
+		return saleLine{Price: r.Number(), Paid: r.List(), Seen: readSeen(r)}
 	case "first":
 		return firstLine{Before: r.Number(), After: r.Number()}
 	case "count":
 		return countLine{Kind: r.Number(), Many: r.Span()}
 	}
-	panic(wrongLine{})
+	r.Fail()
+	return nil
 }
 
-// readSeen returns what was seen of a sale; it panics if there is no such word.
-func readSeen(word string) api.Sure {
+// readSeen reads what was seen of a sale.
+func readSeen(r *lines.Reading) api.Sure {
+	word := r.Word()
 	for _, seen := range []api.Sure{api.Open, api.Yes, api.No} {
 		if wordFor(seen) == word {
 			return seen
 		}
 	}
-	panic(wrongLine{})
+	r.Fail()
+	return api.Open
 }

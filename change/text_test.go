@@ -6,6 +6,7 @@ import (
 
 	"nosale/api"
 	"nosale/change"
+	"nosale/dice"
 )
 
 // P4.5: Print writes a book; the lines are those of the chapter.
@@ -37,7 +38,7 @@ func TestPrint(t *testing.T) {
 
 // P4.5, P0.3: what is printed is parsed as it was, with or without its last line feed.
 func TestPrintIsParsed(t *testing.T) {
-	d := dice(5)
+	d := dice.Dice(5)
 	var books []api.ChangeBook
 	for _, text := range texts() {
 		b := parse(t, text)

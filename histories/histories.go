@@ -57,3 +57,42 @@ func Sure[H any](all iter.Seq[H], is func(h H) bool) (api.Sure, api.Bell) {
 	}
 	return api.Open, api.Fine
 }
+
+// Span returns the span from the least to the greatest number of a history; Odds if there is no history.
+func Span[H any](all iter.Seq[H], number func(h H) int) (api.Span, api.Bell) {
+	var s api.Span
+	found := false
+	for h := range all {
+		n := number(h)
+		if !found {
+			s, found = api.Span{Low: n, High: n}, true
+		}
+		s = api.Span{Low: min(s.Low, n), High: max(s.High, n)}
+	}
+	if !found {
+		return api.Span{}, api.Odds
+	}
+	return s, api.Fine
+}
+
+// Ask returns the first of so many things whose number leaves the fewest histories at most once it is known, and how many those are; -1, and all histories, if none leaves fewer.
+func Ask[H any](all []H, things int, number func(h H, thing int) int) (thing, left int) {
+	thing, left = -1, len(all)
+	for i := range things {
+		if most := mostAlike(all, func(h H) int { return number(h, i) }); most < left {
+			thing, left = i, most
+		}
+	}
+	return thing, left
+}
+
+// mostAlike returns how many histories have the same number, at most.
+func mostAlike[H any](all []H, number func(h H) int) int {
+	alike, most := map[int]int{}, 0
+	for _, h := range all {
+		n := number(h)
+		alike[n]++
+		most = max(most, alike[n])
+	}
+	return most
+}

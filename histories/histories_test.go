@@ -50,3 +50,39 @@ func TestSure(t *testing.T) {
 		}
 	}
 }
+
+func TestSpan(t *testing.T) {
+	for _, x := range []struct {
+		all  []int
+		want api.Span
+		bell api.Bell
+	}{
+		{nil, api.Span{}, api.Odds}, {[]int{0}, api.Span{}, api.Fine}, {[]int{7}, api.Span{Low: 7, High: 7}, api.Fine}, {[]int{5, 9, 3, 4}, api.Span{Low: 3, High: 9}, api.Fine}, {[]int{-2, -5}, api.Span{Low: -5, High: -2}, api.Fine},
+	} {
+		if s, l := Span(slices.Values(x.all), func(n int) int { return n }); s != x.want || l != x.bell {
+			t.Errorf("%v: %v, bell %d", x.all, s, l)
+		}
+	}
+}
+
+func TestAsk(t *testing.T) {
+	for _, x := range []struct {
+		all         [][]int
+		thing, left int
+	}{
+		{[][]int{{1, 1}}, -1, 1},
+		{[][]int{{1, 1}, {1, 1}}, -1, 2},
+		{[][]int{{1, 1}, {1, 2}}, 1, 1},
+		{[][]int{{1, 1}, {2, 2}}, 0, 1},
+		{[][]int{{1, 1}, {1, 2}, {1, 3}, {2, 3}}, 1, 2},
+		{[][]int{{1, 1}, {1, 2}, {2, 3}, {2, 3}}, 0, 2},
+		{nil, -1, 0},
+	} {
+		if thing, left := Ask(x.all, 2, func(h []int, i int) int { return h[i] }); thing != x.thing || left != x.left {
+			t.Errorf("%v: %d, %d, want %d, %d", x.all, thing, left, x.thing, x.left)
+		}
+	}
+	if thing, left := Ask([]int{1, 2}, 0, func(h, i int) int { return h }); thing != -1 || left != 2 {
+		t.Errorf("nothing to ask: %d, %d", thing, left)
+	}
+}

@@ -170,3 +170,43 @@ func TestWrong(t *testing.T) {
 		t.Errorf("%v, line %d", err, wrong.Line)
 	}
 }
+
+// ranked is a line of a word, the place of which is a number.
+type ranked struct {
+	word
+	place int
+}
+
+func (r ranked) Place() int { return r.place }
+
+// readRanked reads a word, and its place.
+func readRanked(r *Reading) Placed { return ranked{word(r.Word()), r.Number()} }
+
+func TestReadPlaced(t *testing.T) {
+	for _, x := range []struct {
+		text string
+		line int
+		bell api.Bell
+		want string
+	}{
+		{"a 0\nb 1\nc 1\nd 3\n", 0, api.Fine, "abcd"}, {"a 0", 0, api.Fine, "a"}, {"a 0\nb 2", 0, api.Fine, "ab"},
+		{"", 0, api.Shape, ""}, {"\n", 1, api.Shape, ""},
+		// forms
+		{"a x\n", 1, api.Shape, ""}, {"a 0\nb\nc 1\n", 2, api.Shape, "a"}, {"a 0\nb 1 1\n", 2, api.Shape, "a"}, {"a 0\nb 1\n\n", 3, api.Shape, "ab"},
+		// places
+		{"a 1\n", 1, api.Shape, ""}, {"a 0\nb 0\n", 2, api.Shape, "a"}, {"a 0\nb 2\nc 1\nd x\n", 3, api.Shape, "ab"},
+		// the length of the text
+		{strings.Repeat("a", api.MaxText+1), 0, api.Count, ""}, {strings.Repeat("a", api.MaxText), 1, api.Shape, ""}, {strings.Repeat("a", api.MaxText-2) + " 0", 0, api.Fine, strings.Repeat("a", api.MaxText-2)},
+	} {
+		got := ""
+		line, l := ReadPlaced(x.text, readRanked, func(l Placed) { got += l.Text() })
+		if line != x.line || l != x.bell || got != x.want {
+			t.Errorf("%.40q: line %d, bell %d, %.40q, want %d, %d, %.40q", x.text, line, l, got, x.line, x.bell, x.want)
+		}
+	}
+	// what is wrong when it was read need not be a line
+	line, l := ReadPlaced("a 0\n", func(r *Reading) Placed { r.Fail(); return nil }, func(l Placed) { t.Error("a wrong line was added") })
+	if line != 1 || l != api.Shape {
+		t.Errorf("line %d, bell %d", line, l)
+	}
+}

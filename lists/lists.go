@@ -31,3 +31,14 @@ func Least[E any](compare func(a, b E) int, several ...E) (best E, found bool) {
 	}
 	return best, len(several) > 0
 }
+
+// LeastSet returns the fewest numbers from 0 to n - 1 for which something is so, and of several such lists the least one, if there is any. What is asked about is a set, which has a bit for each number.
+func LeastSet(n int, is func(set int) bool) (list []int, found bool) {
+	var all [][]int
+	for set := range 1 << n {
+		if is(set) {
+			all = append(all, OfSet(set))
+		}
+	}
+	return Least(Compare, all...)
+}

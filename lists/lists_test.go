@@ -40,3 +40,27 @@ func TestLeast(t *testing.T) {
 		}
 	}
 }
+
+func TestLeastSet(t *testing.T) {
+	for i, x := range []struct {
+		n     int
+		is    func(set int) bool
+		want  []int
+		found bool
+	}{
+		{0, func(set int) bool { return true }, nil, true},
+		{0, func(set int) bool { return set > 0 }, nil, false},
+		{4, func(set int) bool { return false }, nil, false},
+		{4, func(set int) bool { return true }, nil, true},
+		{4, func(set int) bool { return set > 0 }, []int{0}, true},
+		{4, func(set int) bool { return set > 1 }, []int{1}, true},
+		{4, func(set int) bool { return set == 0b0111 || set == 0b1000 }, []int{3}, true},
+		{4, func(set int) bool { return set == 0b0110 || set == 0b1001 }, []int{0, 3}, true},
+		{4, func(set int) bool { return set == 0b1111 }, []int{0, 1, 2, 3}, true},
+		{4, func(set int) bool { return set > 0b1111 }, nil, false},
+	} {
+		if got, found := LeastSet(x.n, x.is); !slices.Equal(got, x.want) || found != x.found {
+			t.Errorf("%d: %v, %v, want %v", i, got, found, x.want)
+		}
+	}
+}

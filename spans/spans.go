@@ -14,6 +14,9 @@ func IsFrom(s api.Span, low, high int) bool {
 // Has tells whether a number is one of a span.
 func Has(s api.Span, n int) bool { return Within(n, s.Low, s.High) }
 
+// Many returns how many numbers a span within bounds has.
+func Many(s api.Span) int { return s.High - s.Low + 1 }
+
 // Common returns what two spans have in common, and whether that is anything.
 func Common(a, b api.Span) (api.Span, bool) {
 	s := api.Span{Low: max(a.Low, b.Low), High: min(a.High, b.High)}

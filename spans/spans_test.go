@@ -32,6 +32,14 @@ func TestIsFrom(t *testing.T) {
 	}
 }
 
+func TestMany(t *testing.T) {
+	for s, want := range map[api.Span]int{{}: 1, {Low: 5, High: 5}: 1, {Low: 0, High: 3}: 4, {Low: -2, High: 2}: 5} {
+		if n := Many(s); n != want {
+			t.Errorf("%v has %d numbers", s, n)
+		}
+	}
+}
+
 func TestCommon(t *testing.T) {
 	for _, x := range []struct {
 		a, b, want api.Span

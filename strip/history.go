@@ -193,11 +193,7 @@ func spanOf(b api.StripBook, t thing) (api.Span, api.Bell) {
 		return api.Span{}, api.Missing
 	}
 	place := c.place(t)
-	list, l := histories.Numbers(c.histories(), func(h history) int { return h.counted[place] })
-	if l != api.Fine {
-		return api.Span{}, l
-	}
-	return api.Span{Low: list[0], High: list[len(list)-1]}, api.Fine
+	return histories.Span(c.histories(), func(h history) int { return h.counted[place] })
 }
 
 // whole returns the sales of all lines if each history has the same ones.

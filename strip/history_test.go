@@ -5,6 +5,7 @@ import (
 	"testing"
 
 	"nosale/api"
+	"nosale/dice"
 	"nosale/strip"
 )
 
@@ -139,14 +140,14 @@ func TestIsHistory(t *testing.T) {
 
 // P2.1: Play and IsHistory agree with the oracle on all that can be handed in.
 func TestPlayAgainstOracle(t *testing.T) {
-	d := dice(1)
+	d := dice.Dice(1)
 	yes, no := 0, 0
 	for i := range 120 {
 		b, _ := anyBook(&d, i%3 == 0)
 		all := pasts(b)
 		wide := clone(b)
 		for j, e := range b.Items {
-			if e.Torn && d.roll(2) == 0 {
+			if e.Torn && d.Roll(2) == 0 {
 				wide.Items[j].Many = to(0, 2)
 			}
 		}
@@ -232,7 +233,7 @@ func TestGreatestBook(t *testing.T) {
 
 // P2.1 to P2.3: all that is told agrees with the oracle.
 func TestAgainstOracle(t *testing.T) {
-	d := dice(2)
+	d := dice.Dice(2)
 	odd, found := 0, 0
 	for i := range 400 {
 		b, _ := anyBook(&d, i%2 == 0)

@@ -7,12 +7,13 @@ import (
 	"testing"
 
 	"nosale/api"
+	"nosale/dice"
 	"nosale/strip"
 )
 
 // P0.1: each function returns, whatever it is called with, and returns the same to several goroutines; it changes nothing.
 func TestAlwaysTheSame(t *testing.T) {
-	d := dice(4)
+	d := dice.Dice(4)
 	books := []api.StripBook{{}}
 	for _, text := range texts() {
 		books = append(books, book(t, text))
@@ -48,23 +49,23 @@ func TestAlwaysTheSame(t *testing.T) {
 
 // P0.1: numbers that are very great or very small, strings of any bytes, and slices that are very long, have a bell.
 func TestGarbage(t *testing.T) {
-	d := dice(5)
+	d := dice.Dice(5)
 	odd := []int{math.MinInt, -3, -1, 0, 0, 1, 1, 2, 3, 9, 10, 99, math.MaxInt}
-	some := func() int { return odd[d.roll(len(odd))] }
+	some := func() int { return odd[d.Roll(len(odd))] }
 	texts := []string{"", "?", "0", "??", "01", "???", "025", "????", "\xff", "é", "0123456789"}
-	text := func() string { return texts[d.roll(len(texts))] }
+	text := func() string { return texts[d.Roll(len(texts))] }
 	for range 100 {
 		b := api.StripBook{Last: some(), First: some(), Begin: some(), Digits: some(), Clerks: some()}
-		if d.roll(3) > 0 {
+		if d.Roll(3) > 0 {
 			b = anyRegister(&d)
 		}
-		for range d.roll(3) {
+		for range d.Roll(3) {
 			b.Articles = append(b.Articles, api.StripArticle{Dept: some(), Price: some()})
 		}
-		for range d.roll(4) {
-			b.Items = append(b.Items, api.StripItem{Torn: d.roll(2) == 0, Many: to(some(), some()), Number: text(), Amount: text(), Total: text(), Dept: some(), Clerk: some()})
+		for range d.Roll(4) {
+			b.Items = append(b.Items, api.StripItem{Torn: d.Roll(2) == 0, Many: to(some(), some()), Number: text(), Amount: text(), Total: text(), Dept: some(), Clerk: some()})
 		}
-		for range d.roll(3) {
+		for range d.Roll(3) {
 			b.Counts = append(b.Counts, api.StripCount{Kind: api.StripKind(some()), A: some(), Many: to(some(), some())})
 		}
 		report(b)
@@ -136,7 +137,7 @@ func TestNoSharedMemory(t *testing.T) {
 
 // P2.5, P0.4: what was really sold is a history, and is among all that is told.
 func TestWhatReallyHappened(t *testing.T) {
-	d := dice(6)
+	d := dice.Dice(6)
 	for range 400 {
 		b, truth := anyBook(&d, false)
 		if is, l := strip.IsHistory(b, truth.many, truth.sold); !is || l != api.Fine {
@@ -208,7 +209,7 @@ func realCounts(t *testing.T, b api.StripBook, truth past) {
 
 // P2.6: each number that is told is that of a history, which is left once it is noted or read.
 func TestReached(t *testing.T) {
-	d := dice(7)
+	d := dice.Dice(7)
 	for range 300 {
 		b, _ := anyBook(&d, true)
 		if n, _ := strip.Histories(b); n == 0 || len(b.Counts) == api.MaxStripCounts {
@@ -289,7 +290,7 @@ func entryIsReached(t *testing.T, b api.StripBook, item int) {
 
 // P2.7: the least sums of all departments together are no more than what any strip has, the greatest no less; so it is with the sales of all clerks.
 func TestSums(t *testing.T) {
-	d := dice(8)
+	d := dice.Dice(8)
 	for i := range 300 {
 		b, _ := anyBook(&d, i%2 == 0)
 		all := pasts(b)
@@ -365,7 +366,7 @@ func noMore(t *testing.T, b, o api.StripBook) {
 
 // P2.8, P0.6: what is noted or read never adds a history, nor takes back what was sure; once it is known what Ask asks, no more are left than it says.
 func TestKnowingMore(t *testing.T) {
-	d := dice(9)
+	d := dice.Dice(9)
 	asked := 0
 	for range 250 {
 		b, truth := anyBook(&d, false)
@@ -409,7 +410,7 @@ func TestKnowingMore(t *testing.T) {
 
 // P2.8: counts that clash do so alone, and no fewer do.
 func TestClashAlone(t *testing.T) {
-	d := dice(10)
+	d := dice.Dice(10)
 	clashes := map[int]int{}
 	for range 1500 {
 		b, _ := anyBook(&d, true)
@@ -450,7 +451,7 @@ func TestClashAlone(t *testing.T) {
 
 // P2.9: a strip that is cut into two fits together again.
 func TestSpliced(t *testing.T) {
-	d := dice(11)
+	d := dice.Dice(11)
 	sures := map[api.Sure]int{}
 	for i := range 500 {
 		b, truth := anyStrip(&d, 4)
@@ -505,7 +506,7 @@ func turned(b api.StripBook) api.StripBook {
 
 // P2.10: the order of articles and of counts changes no more than indexes.
 func TestAnyOrder(t *testing.T) {
-	d := dice(12)
+	d := dice.Dice(12)
 	for i := range 400 {
 		b, _ := anyBook(&d, i%2 == 0)
 		o := turned(b)

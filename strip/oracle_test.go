@@ -5,6 +5,7 @@ import (
 	"slices"
 
 	"nosale/api"
+	"nosale/dice"
 )
 
 // The oracle goes through all numbers of missing lines and all sales, one by one, and keeps those that can be; it calls nothing of the package.
@@ -308,32 +309,23 @@ func askOf(b api.StripBook, all []past) (best question, left int) {
 	return best, left
 }
 
-// dice yields numbers that look random, and are the same each time.
-type dice uint64
-
-// roll returns a number from 0 to n - 1.
-func (d *dice) roll(n int) int {
-	*d = *d*6364136223846793005 + 1442695040888963407
-	return int(uint64(*d) >> 33 % uint64(n))
-}
-
 // anyRegister returns a book without items and counts.
-func anyRegister(d *dice) api.StripBook {
-	b := api.StripBook{Last: []int{9, 10, 12, 99, 100, 999}[d.roll(6)], Digits: 1 + d.roll(4), Clerks: 1 + d.roll(2)}
-	b.First = 1 + d.roll(b.Last)
-	if d.roll(2) == 0 {
-		b.First = b.Last - d.roll(4)
+func anyRegister(d *dice.Dice) api.StripBook {
+	b := api.StripBook{Last: []int{9, 10, 12, 99, 100, 999}[d.Roll(6)], Digits: 1 + d.Roll(4), Clerks: 1 + d.Roll(2)}
+	b.First = 1 + d.Roll(b.Last)
+	if d.Roll(2) == 0 {
+		b.First = b.Last - d.Roll(4)
 	}
 	top := 1
 	for range b.Digits {
 		top *= 10
 	}
-	b.Begin = d.roll(top)
-	if d.roll(2) == 0 {
-		b.Begin = top - 1 - d.roll(min(top, 60))
+	b.Begin = d.Roll(top)
+	if d.Roll(2) == 0 {
+		b.Begin = top - 1 - d.Roll(min(top, 60))
 	}
-	for range 1 + d.roll(3) {
-		a := api.StripArticle{Dept: []int{0, 1, 9}[d.roll(3)], Price: []int{1, 10, 20, 25, 40, 100, 999, 1 + d.roll(999)}[d.roll(8)]}
+	for range 1 + d.Roll(3) {
+		a := api.StripArticle{Dept: []int{0, 1, 9}[d.Roll(3)], Price: []int{1, 10, 20, 25, 40, 100, 999, 1 + d.Roll(999)}[d.Roll(8)]}
 		if !slices.Contains(b.Articles, a) {
 			b.Articles = append(b.Articles, a)
 		}
@@ -342,27 +334,27 @@ func anyRegister(d *dice) api.StripBook {
 }
 
 // anyStrip returns a book without counts of which all can be read, and what really happened; there are at most so many lines.
-func anyStrip(d *dice, long int) (api.StripBook, past) {
+func anyStrip(d *dice.Dice, long int) (api.StripBook, past) {
 	b := anyRegister(d)
 	var truth past
 	missing := 0
-	for range d.roll(6) {
-		if d.roll(3) > 0 {
+	for range d.Roll(6) {
+		if d.Roll(3) > 0 {
 			if long > 0 {
 				b.Items = append(b.Items, blurred(b))
 				long--
 			}
 			continue
 		}
-		high := d.roll(1 + min(long, api.MaxStripMissing-missing))
-		low := d.roll(high + 1)
+		high := d.Roll(1 + min(long, api.MaxStripMissing-missing))
+		low := d.Roll(high + 1)
 		missing += high
 		long -= high
 		b.Items = append(b.Items, api.StripItem{Torn: true, Many: to(low, high)})
-		truth.many = append(truth.many, low+d.roll(high-low+1))
+		truth.many = append(truth.many, low+d.Roll(high-low+1))
 	}
 	for range itemsOf(b, truth.many) {
-		truth.sold = append(truth.sold, api.StripSale{Article: d.roll(len(b.Articles)), Clerk: d.roll(b.Clerks)})
+		truth.sold = append(truth.sold, api.StripSale{Article: d.Roll(len(b.Articles)), Clerk: d.Roll(b.Clerks)})
 	}
 	for _, l := range linesOf(b, truth) {
 		if l.item >= 0 {
@@ -373,55 +365,55 @@ func anyStrip(d *dice, long int) (api.StripBook, past) {
 }
 
 // blur returns an entry of which some cannot be read any more.
-func blur(d *dice, e api.StripItem) api.StripItem {
+func blur(d *dice.Dice, e api.StripItem) api.StripItem {
 	smudge := func(text string) string {
 		out := []byte(text)
 		for i := range out {
-			if d.roll(5) < 3 {
+			if d.Roll(5) < 3 {
 				out[i] = '?'
 			}
 		}
 		return string(out)
 	}
 	e.Number, e.Amount, e.Total = smudge(e.Number), smudge(e.Amount), smudge(e.Total)
-	if d.roll(3) > 0 {
+	if d.Roll(3) > 0 {
 		e.Dept = -1
 	}
-	if d.roll(3) > 0 {
+	if d.Roll(3) > 0 {
 		e.Clerk = -1
 	}
 	return e
 }
 
 // anyCount returns a count that is right.
-func anyCount(d *dice, b api.StripBook, truth past) api.StripCount {
+func anyCount(d *dice.Dice, b api.StripBook, truth past) api.StripCount {
 	all := questions(b)
-	q := all[d.roll(len(all))]
+	q := all[d.Roll(len(all))]
 	n := counted(b, truth, q.kind, q.a)
 	wide := 2
 	if q.kind == api.StripTook {
 		wide = 60
 	}
-	return api.StripCount{Kind: q.kind, A: q.a, Many: to(max(0, n-d.roll(wide)), min(api.MaxStripCount, n+d.roll(wide)))}
+	return api.StripCount{Kind: q.kind, A: q.a, Many: to(max(0, n-d.Roll(wide)), min(api.MaxStripCount, n+d.Roll(wide)))}
 }
 
 // anyBook returns a book without a bell, and what really happened; if lies is true, what is printed and counted can be false.
-func anyBook(d *dice, lies bool) (api.StripBook, past) {
+func anyBook(d *dice.Dice, lies bool) (api.StripBook, past) {
 	b, truth := anyStrip(d, 4)
 	for i, e := range b.Items {
 		if !e.Torn {
 			b.Items[i] = blur(d, e)
 		}
 	}
-	for range d.roll(api.MaxStripCounts + 1) {
+	for range d.Roll(api.MaxStripCounts + 1) {
 		c := anyCount(d, b, truth)
-		if lies && d.roll(2) == 0 {
-			c.Many = to(d.roll(4), 3+d.roll(3))
+		if lies && d.Roll(2) == 0 {
+			c.Many = to(d.Roll(4), 3+d.Roll(3))
 		}
 		b.Counts = append(b.Counts, c)
 	}
-	if lies && len(b.Items) > 0 && d.roll(6) == 0 {
-		if e := &b.Items[d.roll(len(b.Items))]; !e.Torn {
+	if lies && len(b.Items) > 0 && d.Roll(6) == 0 {
+		if e := &b.Items[d.Roll(len(b.Items))]; !e.Torn {
 			e.Total = "7" + e.Total[1:]
 		}
 	}

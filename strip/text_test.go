@@ -5,6 +5,7 @@ import (
 	"testing"
 
 	"nosale/api"
+	"nosale/dice"
 	"nosale/strip"
 )
 
@@ -28,7 +29,7 @@ func TestPrint(t *testing.T) {
 
 // P2.4, P0.3: what is printed is parsed as it was, with or without its last line feed.
 func TestPrintIsParsed(t *testing.T) {
-	d := dice(3)
+	d := dice.Dice(3)
 	var books []api.StripBook
 	for _, text := range texts() {
 		b := book(t, text)

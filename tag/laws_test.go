@@ -8,6 +8,7 @@ import (
 	"testing"
 
 	"nosale/api"
+	"nosale/dice"
 	"nosale/strip"
 	"nosale/tag"
 	"nosale/wheels"
@@ -15,7 +16,7 @@ import (
 
 // P0.1: each function returns, whatever it is called with, and returns the same to several goroutines; it changes nothing.
 func TestAlwaysTheSame(t *testing.T) {
-	d := dice(7)
+	d := dice.Dice(7)
 	houses := []api.TagHouse{{}}
 	for _, text := range texts() {
 		houses = append(houses, parse(t, text))
@@ -53,20 +54,20 @@ func TestAlwaysTheSame(t *testing.T) {
 
 // P0.1: numbers that are very great or very small, strings of any bytes, and slices that are very long, have a bell.
 func TestGarbage(t *testing.T) {
-	d := dice(8)
+	d := dice.Dice(8)
 	odd := []int{math.MinInt, -1, 0, 0, 1, 9, 99999, 100000, math.MaxInt}
-	some := func() int { return odd[d.roll(len(odd))] }
+	some := func() int { return odd[d.Roll(len(odd))] }
 	texts := []string{"", "?", "A", "M", "MA", "IT", "??", "\xff", "É", "MAKEPROFIT", "MAKEPROF??", "?????", "-", "x"}
-	text := func() string { return texts[d.roll(len(texts))] }
+	text := func() string { return texts[d.Roll(len(texts))] }
 	for range 200 {
 		h := api.TagHouse{Letters: text(), Spare: text(), Repeat: text()}
-		if d.roll(3) > 0 {
+		if d.Roll(3) > 0 {
 			h, _ = anyLetters(&d)
 		}
-		for range d.roll(3) {
+		for range d.Roll(3) {
 			h.Alike = append(h.Alike, text())
 		}
-		for range d.roll(3) {
+		for range d.Roll(3) {
 			h.Tags = append(h.Tags, api.TagTag{Reads: text(), Price: to(some(), some())})
 		}
 		report(h)
@@ -136,7 +137,7 @@ func TestNoSharedMemory(t *testing.T) {
 
 // P3.5, P0.4: whatever the word is, and whatever really stands on the tags, is among all that is told.
 func TestWhateverStandsThere(t *testing.T) {
-	d := dice(9)
+	d := dice.Dice(9)
 	for range 500 {
 		h, real := anyHouse(&d, false)
 		for digit := range 10 {
@@ -188,7 +189,7 @@ func realTag(t *testing.T, h api.TagHouse, i int, reads string, m meant) {
 
 // P3.6: each number and letter that is told is that of a history, and no other one is.
 func TestNoOthers(t *testing.T) {
-	d := dice(10)
+	d := dice.Dice(10)
 	for range 300 {
 		h, _ := anyHouse(&d, true)
 		if n, _ := tag.Words(h); n == 0 {
@@ -198,9 +199,9 @@ func TestNoOthers(t *testing.T) {
 			list, _ := tag.Prices(h, i)
 			for range 20 {
 				// those that are told, and any others
-				n := d.roll(1000)
-				if len(list) > 0 && d.roll(2) == 0 {
-					n = list[d.roll(len(list))]
+				n := d.Roll(1000)
+				if len(list) > 0 && d.Roll(2) == 0 {
+					n = list[d.Roll(len(list))]
 				}
 				want := api.Odds
 				if slices.Contains(list, n) {
@@ -228,7 +229,7 @@ func TestNoOthers(t *testing.T) {
 
 // P3.7: what is written by a word is read as the number, if nothing looks alike; no two numbers are written alike.
 func TestThereAndBack(t *testing.T) {
-	d := dice(11)
+	d := dice.Dice(11)
 	for range 20 {
 		h, real := anyLetters(&d)
 		h.Letters, h.Spare, h.Alike = real.word, "", nil
@@ -238,8 +239,8 @@ func TestThereAndBack(t *testing.T) {
 			seen := map[string]int{}
 			for i := range 300 {
 				n := i * top / 300
-				if d.roll(2) == 0 {
-					n = d.roll(top)
+				if d.Roll(2) == 0 {
+					n = d.Roll(top)
 				}
 				texts, l := tag.Writes(h, n, long)
 				if l != api.Fine || len(texts) != 1 || len(texts[0]) != long {
@@ -323,7 +324,7 @@ func noMore(t *testing.T, h, o api.TagHouse, looks []string) {
 
 // P3.8, P0.6: what is learnt never adds a word or a number, and takes back nothing; once the number that Ask asks for is known, no more words are left than it says.
 func TestKnowingMore(t *testing.T) {
-	d := dice(12)
+	d := dice.Dice(12)
 	asked := 0
 	for i := range 100 {
 		h, real := anyHouse(&d, false)
@@ -339,7 +340,7 @@ func TestKnowingMore(t *testing.T) {
 			}
 			noMore(t, h, o, looks)
 		}
-		digit := d.roll(10)
+		digit := d.Roll(10)
 		o, l := tag.Know(h, digit, letterOf(real.word, digit))
 		if l != api.Fine {
 			t.Fatalf("%+v: %d cannot be known, bell %d", h, digit, l)
@@ -381,7 +382,7 @@ func TestKnowingMore(t *testing.T) {
 
 // P3.8: tags that clash have no history, and no fewer do.
 func TestClashAlone(t *testing.T) {
-	d := dice(13)
+	d := dice.Dice(13)
 	clashes := map[int]int{}
 	for i := range 500 {
 		h, _ := anyHouse(&d, true)
@@ -419,7 +420,7 @@ func TestClashAlone(t *testing.T) {
 
 // P3.9: a price that is plain is read as itself by each word.
 func TestPlain(t *testing.T) {
-	d := dice(14)
+	d := dice.Dice(14)
 	plain := 0
 	for range 300 {
 		h, real := anyHouse(&d, false)
@@ -470,7 +471,7 @@ func turned(h api.TagHouse) api.TagHouse {
 
 // P3.10: the order of tags, of pairs and of spare letters changes no more than indexes.
 func TestAnyOrder(t *testing.T) {
-	d := dice(15)
+	d := dice.Dice(15)
 	for i := range 300 {
 		h, real := anyHouse(&d, i%2 == 0)
 		o := turned(h)
@@ -538,7 +539,7 @@ func TestWhatIsMissing(t *testing.T) {
 
 // P0.4, P0.5: what a strip and wheels tell of a price is so together with what its tag tells, and settles it.
 func TestPriceOfOtherBooks(t *testing.T) {
-	d := dice(16)
+	d := dice.Dice(16)
 	for range 200 {
 		h, real := anyHouse(&d, false)
 		for i, m := range real.tags {

@@ -6,6 +6,7 @@ import (
 	"testing"
 
 	"nosale/api"
+	"nosale/dice"
 	"nosale/tag"
 )
 
@@ -144,7 +145,7 @@ func TestHang(t *testing.T) {
 
 // P3.3: Clash and Ask return what all that is tried tells.
 func TestNewsOfAnyHouse(t *testing.T) {
-	d := dice(4)
+	d := dice.Dice(4)
 	clashes, asks := map[int]int{}, map[bool]int{}
 	for i := range 600 {
 		h, _ := anyHouse(&d, true)
@@ -172,7 +173,7 @@ func TestNewsOfAnyHouse(t *testing.T) {
 
 // P3.3: Learn, Know and Hang return a house with the words that agree with what is new, or Odds.
 func TestNewWordsOfAnyHouse(t *testing.T) {
-	d := dice(5)
+	d := dice.Dice(5)
 	bells := map[api.Bell]int{}
 	same := func(name string, h, want, got api.TagHouse, l api.Bell) {
 		t.Helper()
@@ -196,7 +197,7 @@ func TestNewWordsOfAnyHouse(t *testing.T) {
 		}
 		for digit := range 10 {
 			letter := letterOf(real.word, digit)
-			if d.roll(3) == 0 && h.Spare != "" {
+			if d.Roll(3) == 0 && h.Spare != "" {
 				letter = h.Spare[:1]
 			}
 			want := clone(h)

@@ -5,6 +5,7 @@ import (
 	"strings"
 
 	"nosale/api"
+	"nosale/dice"
 )
 
 // The oracle tries all orders of the spare letters, and all numbers that a tag can have, each as it is written; it calls nothing of the package.
@@ -279,15 +280,6 @@ func askOf(h api.TagHouse, all []past) (tag, left int) {
 	return tag, left
 }
 
-// dice yields numbers that look random, and are the same each time.
-type dice uint64
-
-// roll returns a number from 0 to n - 1.
-func (d *dice) roll(n int) int {
-	*d = *d*6364136223846793005 + 1442695040888963407
-	return int(uint64(*d) >> 33 % uint64(n))
-}
-
 // truth is the word of a house, and what really stands on each tag.
 type truth struct {
 	word string
@@ -295,33 +287,33 @@ type truth struct {
 }
 
 // shuffled returns the letters of a text in any order.
-func shuffled(d *dice, text string) string {
+func shuffled(d *dice.Dice, text string) string {
 	out := []byte(text)
 	for i := range out {
-		j := d.roll(i + 1)
+		j := d.Roll(i + 1)
 		out[i], out[j] = out[j], out[i]
 	}
 	return string(out)
 }
 
 // anyLetters returns a house without tags, and its word.
-func anyLetters(d *dice) (api.TagHouse, truth) {
+func anyLetters(d *dice.Dice) (api.TagHouse, truth) {
 	all := shuffled(d, "ABCDEFGHIJKLMNOPQRSTUVWXYZ")
 	h := api.TagHouse{Letters: all[:10]}
-	for _, place := range []int{d.roll(10), d.roll(10), d.roll(10), d.roll(10)}[:d.roll(5)] {
+	for _, place := range []int{d.Roll(10), d.Roll(10), d.Roll(10), d.Roll(10)}[:d.Roll(5)] {
 		if h.Letters[place] != '?' {
 			h.Spare += h.Letters[place : place+1]
 			h.Letters = h.Letters[:place] + "?" + h.Letters[place+1:]
 		}
 	}
 	h.Spare = shuffled(d, h.Spare)
-	if d.roll(3) > 0 {
+	if d.Roll(3) > 0 {
 		h.Repeat = all[10:11]
 	}
 	// some look like a letter that stands on no tag
 	near := all[:12] + strings.Repeat(h.Spare, 2)
-	for range d.roll(api.MaxTagAlike + 1) {
-		i, j := d.roll(len(near)), d.roll(len(near))
+	for range d.Roll(api.MaxTagAlike + 1) {
+		i, j := d.Roll(len(near)), d.Roll(len(near))
 		p, back := near[i:i+1]+near[j:j+1], near[j:j+1]+near[i:i+1]
 		if p != back && !slices.Contains(h.Alike, p) && !slices.Contains(h.Alike, back) {
 			h.Alike = append(h.Alike, p)
@@ -331,40 +323,40 @@ func anyLetters(d *dice) (api.TagHouse, truth) {
 }
 
 // blur returns what is read where this stands: some letters look like others, some cannot be read.
-func blur(d *dice, h api.TagHouse, stands string) string {
+func blur(d *dice.Dice, h api.TagHouse, stands string) string {
 	out := []byte(stands)
 	for i := range out {
 		for _, p := range h.Alike {
-			if j := strings.IndexByte(p, stands[i]); j >= 0 && d.roll(2) == 0 {
+			if j := strings.IndexByte(p, stands[i]); j >= 0 && d.Roll(2) == 0 {
 				out[i] = p[1-j]
 			}
 		}
 	}
-	for range d.roll(api.MaxTagSmudges + 1) {
-		if d.roll(2) == 0 {
-			out[d.roll(len(out))] = '?'
+	for range d.Roll(api.MaxTagSmudges + 1) {
+		if d.Roll(2) == 0 {
+			out[d.Roll(len(out))] = '?'
 		}
 	}
 	return string(out)
 }
 
 // around returns a span in which a price is.
-func around(d *dice, n int) api.Span {
-	wide := []int{1, 2, 10, 200, 100000}[d.roll(5)]
-	return to(max(0, n-d.roll(wide)), min(api.MaxTagPrice, n+d.roll(wide)))
+func around(d *dice.Dice, n int) api.Span {
+	wide := []int{1, 2, 10, 200, 100000}[d.Roll(5)]
+	return to(max(0, n-d.Roll(wide)), min(api.MaxTagPrice, n+d.Roll(wide)))
 }
 
 // anyTag returns a tag as it is read, and what really stands on it; it has at most so many letters.
-func anyTag(d *dice, h api.TagHouse, word string, most int) (api.TagTag, meant) {
-	long, top := 1+d.roll(most), 1
+func anyTag(d *dice.Dice, h api.TagHouse, word string, most int) (api.TagTag, meant) {
+	long, top := 1+d.Roll(most), 1
 	for range long {
 		top *= 10
 	}
-	n := d.roll(top)
-	if digits := digitsOf([]past{{word: word}}, h.Spare[:min(1, len(h.Spare))]); d.roll(3) == 0 && len(digits) > 0 {
+	n := d.Roll(top)
+	if digits := digitsOf([]past{{word: word}}, h.Spare[:min(1, len(h.Spare))]); d.Roll(3) == 0 && len(digits) > 0 {
 		// a letter whose digit is not known stands at the end
 		n += digits[0] - n%10
-	} else if d.roll(4) == 0 {
+	} else if d.Roll(4) == 0 {
 		// the same digit several times
 		n = n / 100 * 111 % top
 	}
@@ -373,19 +365,19 @@ func anyTag(d *dice, h api.TagHouse, word string, most int) (api.TagTag, meant) 
 }
 
 // anyHouse returns a house without a bell, and what is really so; if lies is true, what is read on tags, and their prices, can be false.
-func anyHouse(d *dice, lies bool) (api.TagHouse, truth) {
+func anyHouse(d *dice.Dice, lies bool) (api.TagHouse, truth) {
 	h, real := anyLetters(d)
 	words := possibleWords(h)
-	for range d.roll(api.MaxTagTags + 1) {
+	for range d.Roll(api.MaxTagTags + 1) {
 		word := real.word
-		if lies && d.roll(2) == 0 {
-			word = words[d.roll(len(words))]
+		if lies && d.Roll(2) == 0 {
+			word = words[d.Roll(len(words))]
 		}
 		t, m := anyTag(d, h, word, 3)
-		if lies && d.roll(10) == 0 {
-			t.Price = around(d, d.roll(100))
+		if lies && d.Roll(10) == 0 {
+			t.Price = around(d, d.Roll(100))
 		}
-		if lies && d.roll(20) == 0 {
+		if lies && d.Roll(20) == 0 {
 			t.Reads = shuffled(d, h.Spare+real.word)[:len(t.Reads)]
 		}
 		h.Tags = append(h.Tags, t)
@@ -395,25 +387,25 @@ func anyHouse(d *dice, lies bool) (api.TagHouse, truth) {
 }
 
 // spareHouse returns a house on whose tags stand spare letters alone, and the word; if lies is true, tags can be written by other words than that.
-func spareHouse(d *dice, lies bool) (api.TagHouse, truth) {
+func spareHouse(d *dice.Dice, lies bool) (api.TagHouse, truth) {
 	h, real := anyLetters(d)
 	for len(h.Spare) < 2 {
 		h, real = anyLetters(d)
 	}
-	h.Alike = h.Alike[:min(len(h.Alike), d.roll(2))]
+	h.Alike = h.Alike[:min(len(h.Alike), d.Roll(2))]
 	words := possibleWords(h)
-	for range 1 + d.roll(api.MaxTagTags) {
+	for range 1 + d.Roll(api.MaxTagTags) {
 		word := real.word
 		if lies {
-			word = words[d.roll(len(words))]
+			word = words[d.Roll(len(words))]
 		}
-		stands := shuffled(d, h.Spare)[:1+d.roll(2)]
+		stands := shuffled(d, h.Spare)[:1+d.Roll(2)]
 		n := 0
 		for _, l := range stands {
 			n = n*10 + digitsOf([]past{{word: word}}, string(l))[0]
 		}
-		price := to(max(0, n-d.roll(1+d.roll(9))), n+d.roll(1+d.roll(9)))
-		if !lies && d.roll(3) > 0 {
+		price := to(max(0, n-d.Roll(1+d.Roll(9))), n+d.Roll(1+d.Roll(9)))
+		if !lies && d.Roll(3) > 0 {
 			price = to(0, 99)
 		}
 		h.Tags = append(h.Tags, api.TagTag{Reads: stands, Price: price})

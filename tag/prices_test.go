@@ -6,6 +6,7 @@ import (
 	"testing"
 
 	"nosale/api"
+	"nosale/dice"
 	"nosale/tag"
 )
 
@@ -105,7 +106,7 @@ func TestWrites(t *testing.T) {
 
 // P3.2: Prices, Misread, Means, Writes and Plain return what all that is tried tells.
 func TestPricesOfAnyHouse(t *testing.T) {
-	d := dice(2)
+	d := dice.Dice(2)
 	sures := map[api.Sure]int{}
 	plains := map[bool]int{}
 	for i := range 400 {
@@ -149,7 +150,7 @@ func TestPricesOfAnyHouse(t *testing.T) {
 
 // P3.2: so they do of tags with as many letters as there can be.
 func TestLongTags(t *testing.T) {
-	d := dice(3)
+	d := dice.Dice(3)
 	for range 12 {
 		h, real := anyLetters(&d)
 		for len(h.Spare) > 2 {

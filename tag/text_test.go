@@ -5,6 +5,7 @@ import (
 	"testing"
 
 	"nosale/api"
+	"nosale/dice"
 	"nosale/tag"
 )
 
@@ -30,7 +31,7 @@ func TestPrint(t *testing.T) {
 
 // P3.4, P0.3: what is printed is parsed as it was, with or without its last line feed.
 func TestPrintIsParsed(t *testing.T) {
-	d := dice(6)
+	d := dice.Dice(6)
 	var houses []api.TagHouse
 	for _, text := range texts() {
 		h := parse(t, text)

@@ -5,6 +5,7 @@ import (
 	"testing"
 
 	"nosale/api"
+	"nosale/dice"
 	"nosale/tag"
 )
 
@@ -74,7 +75,7 @@ func TestDigits(t *testing.T) {
 
 // P3.1: Words, Settled, Letters and Digits return what all words that are tried tell.
 func TestWordsOfAnyHouse(t *testing.T) {
-	d := dice(1)
+	d := dice.Dice(1)
 	settled := map[bool]int{}
 	for i := range 600 {
 		h, _ := anyHouse(&d, i%2 == 0)

@@ -7,6 +7,7 @@ import (
 	"testing"
 
 	"nosale/api"
+	"nosale/dice"
 	"nosale/wheels"
 )
 
@@ -48,7 +49,7 @@ func TestExamples(t *testing.T) {
 
 // P0.1: each function returns, whatever it is called with, and returns the same to several goroutines.
 func TestAlwaysTheSame(t *testing.T) {
-	d := dice(5)
+	d := dice.Dice(5)
 	books := []api.WheelsBook{book(t, textA), book(t, textB), book(t, textC), book(t, textD), book(t, textE), {}}
 	for _, x := range bellCases() {
 		b := book(t, textA)
@@ -81,21 +82,21 @@ func TestAlwaysTheSame(t *testing.T) {
 
 // P0.1: numbers that are very great or very small, and slices that are very long, have a bell.
 func TestGarbage(t *testing.T) {
-	d := dice(6)
+	d := dice.Dice(6)
 	odd := []int{math.MinInt, math.MinInt + 1, -3, -2, -1, 0, 1, 2, 3, 20, 21, math.MaxInt}
 	some := func() []int {
 		var list []int
-		for range d.roll(4) {
-			list = append(list, odd[d.roll(len(odd))])
+		for range d.Roll(4) {
+			list = append(list, odd[d.Roll(len(odd))])
 		}
 		return list
 	}
 	for range 300 {
-		b := api.WheelsBook{Most: odd[3+d.roll(6)], Start: some()}
-		for range d.roll(4) {
-			b.Wheels = append(b.Wheels, api.WheelsWheel{Base: odd[d.roll(len(odd))], Kind: api.WheelsKind(odd[d.roll(len(odd))])})
+		b := api.WheelsBook{Most: odd[3+d.Roll(6)], Start: some()}
+		for range d.Roll(4) {
+			b.Wheels = append(b.Wheels, api.WheelsWheel{Base: odd[d.Roll(len(odd))], Kind: api.WheelsKind(odd[d.Roll(len(odd))])})
 		}
-		for range d.roll(8) {
+		for range d.Roll(8) {
 			b.Rings = append(b.Rings, api.WheelsRing{Keys: some(), Read: some()})
 		}
 		report(b)
@@ -164,7 +165,7 @@ func TestNoSharedMemory(t *testing.T) {
 
 // P1.5: without a slip the wheels show what they showed at first, and the sum, modulo the range.
 func TestWithoutSlips(t *testing.T) {
-	d := dice(7)
+	d := dice.Dice(7)
 	for range 500 {
 		b, _ := anyBook(&d, false)
 		for r := range b.Rings {
@@ -193,7 +194,7 @@ func TestWithoutSlips(t *testing.T) {
 
 // P1.6, P0.4: what really happened is among all that is told.
 func TestWhateverSlipped(t *testing.T) {
-	d := dice(8)
+	d := dice.Dice(8)
 	for range 500 {
 		b, truth := anyBook(&d, false)
 		if n, s := wheels.Histories(b); n < 1 || s != api.Fine {
@@ -228,7 +229,7 @@ func TestWhateverSlipped(t *testing.T) {
 
 // P1.8, P0.6: what was read never adds a history, and takes back nothing that was sure; where Look says, no more are left than it says.
 func TestKnowingMore(t *testing.T) {
-	d := dice(9)
+	d := dice.Dice(9)
 	for range 300 {
 		b, truth := anyBook(&d, false)
 		where, left, _ := wheels.Look(b)
@@ -310,7 +311,7 @@ func TestWhatIsMissing(t *testing.T) {
 
 // P1.9: a carry that drops makes the wheels show less, by the unit of the next wheel; one that doubles makes them show as much more, unless a wheel passes its base twice.
 func TestOneSlip(t *testing.T) {
-	d := dice(10)
+	d := dice.Dice(10)
 	drops, doubles := 0, 0
 	for range 2000 {
 		b, _ := anyBook(&d, false)
@@ -349,7 +350,7 @@ func TestOneSlip(t *testing.T) {
 
 // P1.10: rings without slips can be rung in any order.
 func TestAnyOrder(t *testing.T) {
-	d := dice(11)
+	d := dice.Dice(11)
 	for range 300 {
 		b, _ := anyBook(&d, false)
 		digits := anyDigits(&d, b)
@@ -376,13 +377,13 @@ func TestAnyOrder(t *testing.T) {
 
 // P1.10: what is rung all at once without a carry shows what each key shows.
 func TestAllAtOnce(t *testing.T) {
-	d := dice(12)
+	d := dice.Dice(12)
 	for range 300 {
 		b, _ := anyBook(&d, false)
 		keys := anyDigits(&d, b)
 		digits := make([]int, len(keys))
 		for w, k := range keys {
-			digits[w] = d.roll(b.Wheels[w].Base - k)
+			digits[w] = d.Roll(b.Wheels[w].Base - k)
 		}
 		after, carries, s := wheels.Ring(b, digits, keys)
 		if len(carries) > 0 || s != api.Fine {

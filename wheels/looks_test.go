@@ -7,6 +7,7 @@ import (
 	"testing"
 
 	"nosale/api"
+	"nosale/dice"
 	"nosale/wheels"
 )
 
@@ -139,7 +140,7 @@ func TestNext(t *testing.T) {
 
 // P1.3, P1.8: what is told of looks is what the histories tell.
 func TestLooksLikeOracle(t *testing.T) {
-	d := dice(3)
+	d := dice.Dice(3)
 	for i := range 600 {
 		b, _ := anyBook(&d, i%3 != 0)
 		all := pasts(b)
@@ -168,9 +169,9 @@ func TestLooksLikeOracle(t *testing.T) {
 }
 
 // changesLikeOracle compares the books of Read and Tight with those that are changed here.
-func changesLikeOracle(t *testing.T, d *dice, b api.WheelsBook) {
+func changesLikeOracle(t *testing.T, d *dice.Dice, b api.WheelsBook) {
 	t.Helper()
-	wheel := d.roll(len(b.Wheels))
+	wheel := d.Roll(len(b.Wheels))
 	tight := clone(b)
 	tight.Wheels[wheel].Kind = api.WheelsTight
 	o, s := wheels.Tight(b, wheel)
@@ -182,7 +183,7 @@ func changesLikeOracle(t *testing.T, d *dice, b api.WheelsBook) {
 	}
 	for r, x := range b.Rings {
 		digits := anyDigits(d, b)
-		digits[d.roll(len(digits))] = -1
+		digits[d.Roll(len(digits))] = -1
 		o, s := wheels.Read(b, r, digits)
 		read, want := clone(b), api.Fine
 		read.Rings[r].Read = digits

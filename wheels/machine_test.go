@@ -6,6 +6,7 @@ import (
 	"testing"
 
 	"nosale/api"
+	"nosale/dice"
 	"nosale/wheels"
 )
 
@@ -102,7 +103,7 @@ func TestRingAndSlide(t *testing.T) {
 
 // P1.1: Ring and Slide do what a machine does that is turned wheel by wheel.
 func TestRingAndSlideLikeOracle(t *testing.T) {
-	d := dice(1)
+	d := dice.Dice(1)
 	for range 3000 {
 		b, _ := anyBook(&d, false)
 		digits, keys := anyDigits(&d, b), anyDigits(&d, b)
@@ -113,7 +114,7 @@ func TestRingAndSlideLikeOracle(t *testing.T) {
 		}
 		var slips []int
 		for w := range b.Wheels {
-			if d.roll(3) == 0 {
+			if d.Roll(3) == 0 {
 				slips = append(slips, w)
 			}
 		}

@@ -4,6 +4,7 @@ import (
 	"slices"
 
 	"nosale/api"
+	"nosale/dice"
 )
 
 // The oracle goes through all starts and all sets of slips, one by one, and keeps those that can be; it calls nothing of the package.
@@ -276,40 +277,31 @@ func lookOf(b api.WheelsBook, all []past) (ring, left int) {
 	return ring, left
 }
 
-// dice yields numbers that look random, and are the same each time.
-type dice uint64
-
-// roll returns a number from 0 to n - 1.
-func (d *dice) roll(n int) int {
-	*d = *d*6364136223846793005 + 1442695040888963407
-	return int(uint64(*d) >> 33 % uint64(n))
-}
-
 // anyBook returns a book without a bell, and what really happened; if lies is true, what was read can be false.
-func anyBook(d *dice, lies bool) (api.WheelsBook, past) {
-	b := api.WheelsBook{Most: d.roll(3)}
-	for range 1 + d.roll(4) {
-		b.Wheels = append(b.Wheels, api.WheelsWheel{Base: 2 + d.roll(4), Kind: api.WheelsKind(d.roll(3))})
+func anyBook(d *dice.Dice, lies bool) (api.WheelsBook, past) {
+	b := api.WheelsBook{Most: d.Roll(3)}
+	for range 1 + d.Roll(4) {
+		b.Wheels = append(b.Wheels, api.WheelsWheel{Base: 2 + d.Roll(4), Kind: api.WheelsKind(d.Roll(3))})
 	}
-	for range d.roll(5) {
+	for range d.Roll(5) {
 		b.Rings = append(b.Rings, api.WheelsRing{Keys: anyDigits(d, b)})
 	}
 	b.Start = anyDigits(d, b)
 	all := pasts(b)
-	truth := all[d.roll(len(all))]
-	for range d.roll(3) {
-		b.Start[d.roll(len(b.Start))] = -1
+	truth := all[d.Roll(len(all))]
+	for range d.Roll(3) {
+		b.Start[d.Roll(len(b.Start))] = -1
 	}
 	for r := range b.Rings {
-		if d.roll(2) == 0 {
+		if d.Roll(2) == 0 {
 			continue
 		}
 		read := slices.Clone(truth.shown[r+1])
-		if lies && d.roll(3) == 0 {
+		if lies && d.Roll(3) == 0 {
 			read = anyDigits(d, b)
 		}
 		for w := range read {
-			if d.roll(3) == 0 {
+			if d.Roll(3) == 0 {
 				read[w] = -1
 			}
 		}
@@ -319,11 +311,11 @@ func anyBook(d *dice, lies bool) (api.WheelsBook, past) {
 }
 
 // anyDigits returns digits of a machine; every second one is the greatest number of its wheel or near it, so that there are carries.
-func anyDigits(d *dice, b api.WheelsBook) []int {
+func anyDigits(d *dice.Dice, b api.WheelsBook) []int {
 	var list []int
 	for _, w := range b.Wheels {
-		n := d.roll(w.Base)
-		if d.roll(2) == 0 {
+		n := d.Roll(w.Base)
+		if d.Roll(2) == 0 {
 			n = w.Base - 1
 		}
 		list = append(list, n)

@@ -7,6 +7,7 @@ import (
 	"testing"
 
 	"nosale/api"
+	"nosale/dice"
 	"nosale/wheels"
 )
 
@@ -126,7 +127,7 @@ func slipsLikeOracle(t *testing.T, b api.WheelsBook) {
 
 // P1.2, P1.7: what is told of slips is that of all histories, and of no others.
 func TestSlipsLikeOracle(t *testing.T) {
-	d := dice(2)
+	d := dice.Dice(2)
 	for i := range 1500 {
 		b, _ := anyBook(&d, i%2 == 0)
 		slipsLikeOracle(t, b)

@@ -5,6 +5,7 @@ import (
 	"testing"
 
 	"nosale/api"
+	"nosale/dice"
 	"nosale/wheels"
 )
 
@@ -28,7 +29,7 @@ func TestPrint(t *testing.T) {
 
 // P1.4, P0.3: what is printed is parsed as it was, with or without its last line feed.
 func TestPrintIsParsed(t *testing.T) {
-	d := dice(4)
+	d := dice.Dice(4)
 	books := []api.WheelsBook{book(t, textA), book(t, textB), book(t, textC), book(t, textD), book(t, textE)}
 	for i := range 500 {
 		b, _ := anyBook(&d, i%2 == 0)

@@ -1,0 +1,26 @@
+// Package checks finds the first bell of a book that consists of lists (rule R1 of shared/DOC.md).
+package checks
+
+import "nosale/api"
+
+// List is one of the lists of a book: how many elements it has, and whether it can have so many; and the bell of an element, which relies on all that is checked before it.
+type List[B any] struct {
+	Long func(b B) (many int, right bool)
+	Bell func(b B, i int) api.Bell
+}
+
+// First returns the first bell of some lists of a book, in their order.
+func First[B any](b B, all ...List[B]) api.Bell {
+	for _, list := range all {
+		many, right := list.Long(b)
+		if !right {
+			return api.Count
+		}
+		for i := range many {
+			if l := list.Bell(b, i); l != api.Fine {
+				return l
+			}
+		}
+	}
+	return api.Fine
+}

@@ -1,0 +1,23 @@
+// Package names tells what a name is (section Terms of shared/DOC.md).
+package names
+
+import (
+	"nosale/api"
+	"nosale/spans"
+)
+
+// Is tells whether a text is a name.
+func Is(text string) bool {
+	if !spans.Within(len(text), 1, api.MaxName) {
+		return false
+	}
+	for i := range len(text) {
+		c := text[i]
+		isLetter := 'a' <= c && c <= 'z'
+		isDigit := '0' <= c && c <= '9'
+		if !isLetter && (!isDigit || i == 0) {
+			return false
+		}
+	}
+	return true
+}

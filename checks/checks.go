@@ -1,4 +1,4 @@
-// Package checks finds the first bell of a book that consists of lists (rule R1 of shared/DOC.md).
+// Package checks finds the first bell of a book (rule R1 of shared/DOC.md).
 package checks
 
 import "nosale/api"
@@ -20,6 +20,16 @@ func First[B any](b B, all ...List[B]) api.Bell {
 			if l := list.Bell(b, i); l != api.Fine {
 				return l
 			}
+		}
+	}
+	return api.Fine
+}
+
+// InTurn returns the first bell of some checks, each of which relies on those before it.
+func InTurn(all ...func() api.Bell) api.Bell {
+	for _, check := range all {
+		if l := check(); l != api.Fine {
+			return l
 		}
 	}
 	return api.Fine

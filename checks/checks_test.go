@@ -43,3 +43,29 @@ func TestFirst(t *testing.T) {
 		t.Errorf("no lists: bell %d", l)
 	}
 }
+
+// R1: of several checks the first one that has a bell decides; those behind it are not made.
+func TestInTurn(t *testing.T) {
+	made := 0
+	check := func(l api.Bell) func() api.Bell {
+		return func() api.Bell {
+			made++
+			return l
+		}
+	}
+	for i, x := range []struct {
+		all  []func() api.Bell
+		want api.Bell
+		made int
+	}{
+		{nil, api.Fine, 0},
+		{[]func() api.Bell{check(api.Fine), check(api.Fine)}, api.Fine, 2},
+		{[]func() api.Bell{check(api.Fine), check(api.Label), check(api.Bound)}, api.Label, 2},
+		{[]func() api.Bell{check(api.Odds), check(api.Bound)}, api.Odds, 1},
+	} {
+		made = 0
+		if l := InTurn(x.all...); l != x.want || made != x.made {
+			t.Errorf("%d: bell %d after %d checks, want %d, %d", i, l, made, x.want, x.made)
+		}
+	}
+}

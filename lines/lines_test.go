@@ -164,6 +164,21 @@ func TestReading(t *testing.T) {
 	}
 }
 
+func TestOneOf(t *testing.T) {
+	words := []string{"no", "yes", "yes", ""}
+	for line, want := range map[string]int{"no": 0, "yes": 1, "No": -1, "": -1, "n": -1, "nono": -1, "yes no": -1} {
+		r := Read(line)
+		if i := r.OneOf(words...); r.Right() != (want >= 0) || want >= 0 && i != want {
+			t.Errorf("%q: %d, right: %v, want %d", line, i, r.Right(), want)
+		}
+	}
+	// a word that is wrong makes the line wrong, whatever follows
+	r := Read("perhaps no")
+	if one, two := r.OneOf(words...), r.OneOf(words...); one != 0 || two != 0 || r.Right() {
+		t.Errorf("%d, %d, right: %v", one, two, r.Right())
+	}
+}
+
 func TestWrong(t *testing.T) {
 	var wrong Wrong
 	if err := error(Wrong{3}); !errors.As(err, &wrong) || wrong.Line != 3 || err.Error() != "line 3 is wrong" {
@@ -182,13 +197,9 @@ func (r ranked) Place() int { return r.place }
 // readRanked reads a word, and its place.
 func readRanked(r *Reading) Placed { return ranked{word(r.Word()), r.Number()} }
 
-func TestReadPlaced(t *testing.T) {
-	for _, x := range []struct {
-		text string
-		line int
-		bell api.Bell
-		want string
-	}{
+// placedTexts are texts, the line of each that is wrong, the bell, and what is added before it.
+func placedTexts() []placedText {
+	return []placedText{
 		{"a 0\nb 1\nc 1\nd 3\n", 0, api.Fine, "abcd"}, {"a 0", 0, api.Fine, "a"}, {"a 0\nb 2", 0, api.Fine, "ab"},
 		{"", 0, api.Shape, ""}, {"\n", 1, api.Shape, ""},
 		// forms
@@ -196,8 +207,19 @@ func TestReadPlaced(t *testing.T) {
 		// places
 		{"a 1\n", 1, api.Shape, ""}, {"a 0\nb 0\n", 2, api.Shape, "a"}, {"a 0\nb 2\nc 1\nd x\n", 3, api.Shape, "ab"},
 		// the length of the text
-		{strings.Repeat("a", api.MaxText+1), 0, api.Count, ""}, {strings.Repeat("a", api.MaxText), 1, api.Shape, ""}, {strings.Repeat("a", api.MaxText-2) + " 0", 0, api.Fine, strings.Repeat("a", api.MaxText-2)},
-	} {
+		{strings.Repeat("a", api.MaxText), 1, api.Shape, ""}, {strings.Repeat("a", api.MaxText-2) + " 0", 0, api.Fine, strings.Repeat("a", api.MaxText-2)},
+	}
+}
+
+type placedText struct {
+	text string
+	line int
+	bell api.Bell
+	want string
+}
+
+func TestReadPlaced(t *testing.T) {
+	for _, x := range append(placedTexts(), placedText{strings.Repeat("a", api.MaxText+1), 0, api.Count, ""}) {
 		got := ""
 		line, l := ReadPlaced(x.text, readRanked, func(l Placed) { got += l.Text() })
 		if line != x.line || l != x.bell || got != x.want {
@@ -205,8 +227,26 @@ func TestReadPlaced(t *testing.T) {
 		}
 	}
 	// what is wrong when it was read need not be a line
-	line, l := ReadPlaced("a 0\n", func(r *Reading) Placed { r.Fail(); return nil }, func(l Placed) { t.Error("a wrong line was added") })
+	line, l := ReadPlaced("a 0\n", readNothing, func(l Placed) { t.Error("a wrong line was added") })
 	if line != 1 || l != api.Shape {
 		t.Errorf("line %d, bell %d", line, l)
+	}
+}
+
+// readNothing reads no line.
+func readNothing(r *Reading) Placed { r.Fail(); return nil }
+
+func TestReadLines(t *testing.T) {
+	for _, x := range placedTexts() {
+		got := ""
+		err := ReadLines(x.text, readRanked, func(l Placed) { got += l.Text() })
+		var wrong Wrong
+		if errors.As(err, &wrong) != (x.bell != api.Fine) || wrong.Line != x.line || got != x.want {
+			t.Errorf("%.40q: %v, %.40q, want %d, %.40q", x.text, err, got, x.line, x.want)
+		}
+	}
+	var wrong Wrong
+	if err := ReadLines("a 0\n", readNothing, func(l Placed) { t.Error("a wrong line was added") }); !errors.As(err, &wrong) || wrong.Line != 1 {
+		t.Errorf("%v", err)
 	}
 }

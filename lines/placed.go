@@ -9,38 +9,48 @@ type Placed interface {
 	Place() int
 }
 
-// wrongLine is what reading panics with at a line that does not have its form, or its place.
-type wrongLine struct{}
-
-// need panics if a line is not as it is to be.
-func need(right bool) {
+// need panics with Wrong if a line, 0 if there is none, is not as it is to be.
+func need(right bool, line int) {
 	if !right {
-		panic(wrongLine{})
+		panic(Wrong{line})
 	}
 }
 
-// ReadPlaced reads the lines of a text in their order, and adds each of them; it returns the bell of the text, and the first line that is wrong, 0 if there is none. A line that is wrong when it was read is neither looked at nor added.
+// readAll reads the lines of a text in their order, and adds each of them; it panics at the first one that does not have its form, or its place, and if there is none. A line that is wrong when it was read is neither looked at nor added.
+func readAll(text string, read func(r *Reading) Placed, add func(l Placed)) {
+	texts := Split(text)
+	need(len(texts) > 0, 0)
+	before := 0
+	for others, text := range texts {
+		r := Read(text)
+		next := read(r)
+		need(r.Right() && Follows(next.Place(), before, others), others+1)
+		before = next.Place()
+		add(next)
+	}
+}
+
+// ReadLines reads the lines of a text in their order, and adds each of them; the error is Wrong if one of them, or the text, is wrong.
+func ReadLines(text string, read func(r *Reading) Placed, add func(l Placed)) (err error) {
+	defer func() {
+		if wrong, is := recover().(Wrong); is {
+			err = wrong
+		}
+	}()
+	readAll(text, read, add)
+	return nil
+}
+
+// ReadPlaced reads the lines of a text likewise, and returns the bell of the text, and the first line that is wrong, 0 if there is none.
 func ReadPlaced(text string, read func(r *Reading) Placed, add func(l Placed)) (line int, l api.Bell) {
 	if len(text) > api.MaxText {
 		return 0, api.Count
 	}
-	at := 0
 	defer func() {
-		if _, wrong := recover().(wrongLine); wrong {
-			line, l = at, api.Shape
+		if wrong, is := recover().(Wrong); is {
+			line, l = wrong.Line, api.Shape
 		}
 	}()
-	texts := Split(text)
-	need(len(texts) > 0)
-	before := 0
-	for others, text := range texts {
-		at = others + 1
-		r := Read(text)
-		next := read(r)
-		need(r.Right())
-		need(Follows(next.Place(), before, others))
-		before = next.Place()
-		add(next)
-	}
+	readAll(text, read, add)
 	return 0, api.Fine
 }

@@ -1,6 +1,7 @@
 package lines
 
 import (
+	"slices"
 	"strconv"
 
 	"nosale/api"
@@ -35,6 +36,16 @@ func (r *Reading) Word() string {
 	field := r.fields[0]
 	r.fields = r.fields[1:]
 	return field
+}
+
+// OneOf reads a field that is one of some words, and returns its index among them.
+func (r *Reading) OneOf(words ...string) int {
+	i := slices.Index(words, r.Word())
+	if i < 0 {
+		r.wrong = true
+		return 0
+	}
+	return i
 }
 
 // Number reads a field that is a number.

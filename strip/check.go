@@ -5,6 +5,7 @@ import (
 	"strconv"
 
 	"nosale/api"
+	"nosale/checks"
 	"nosale/spans"
 )
 
@@ -22,13 +23,7 @@ type book struct{ api.StripBook }
 
 // bell returns the first bell of the book; each check relies on those before it.
 func (b book) bell() api.Bell {
-	checks := []func() api.Bell{b.checkRegister, b.checkArticles, b.checkItems, b.checkLines, b.checkCounts}
-	for _, check := range checks {
-		if l := check(); l != api.Fine {
-			return l
-		}
-	}
-	return api.Fine
+	return checks.InTurn(b.checkRegister, b.checkArticles, b.checkItems, b.checkLines, b.checkCounts)
 }
 
 // checkRegister returns the bell of the numbers at the head of the book.

@@ -8,12 +8,25 @@ import (
 	"nosale/lines"
 )
 
+// The places of lines, in their order; the first one is that of the first line alone.
+const (
+	headPlace = iota
+	articlePlace
+	itemPlace
+	countPlace
+)
+
 type (
 	headLine    [5]int // Last, First, Begin, Digits and Clerks
 	articleLine api.StripArticle
 	itemLine    api.StripItem
 	countLine   api.StripCount
 )
+
+func (l headLine) Place() int    { return headPlace }
+func (l articleLine) Place() int { return articlePlace }
+func (l itemLine) Place() int    { return itemPlace }
+func (l countLine) Place() int   { return countPlace }
 
 func (l headLine) Text() string {
 	text := "strip"
@@ -57,48 +70,8 @@ func (b book) written() []lines.Line {
 	return all
 }
 
-// readBook reads a book that is not checked yet.
-func readBook(text string) (book, error) {
-	texts := lines.Split(text)
-	if len(texts) == 0 {
-		return book{}, lines.Wrong{}
-	}
-	var b book
-	before := headPlace
-	for i, t := range texts {
-		l, ok := readLine(t)
-		if !ok || !lines.Follows(placeOf(l), before, i) {
-			return book{}, lines.Wrong{Line: i + 1}
-		}
-		before = placeOf(l)
-		b.add(l)
-	}
-	return b, nil
-}
-
-// The places of lines, in their order; the first one is that of the first line alone.
-const (
-	headPlace = iota
-	articlePlace
-	itemPlace
-	countPlace
-)
-
-// placeOf returns the place of a line.
-func placeOf(l lines.Line) int {
-	switch l.(type) {
-	case headLine:
-		return headPlace
-	case articleLine:
-		return articlePlace
-	case itemLine:
-		return itemPlace
-	}
-	return countPlace
-}
-
 // add adds to the book what a line says.
-func (b *book) add(l lines.Line) {
+func (b *book) add(l lines.Placed) {
 	switch l := l.(type) {
 	case headLine:
 		b.Last, b.First, b.Begin, b.Digits, b.Clerks = l[0], l[1], l[2], l[3], l[4]
@@ -111,18 +84,8 @@ func (b *book) add(l lines.Line) {
 	}
 }
 
-// readLine reads a line, and tells whether it has one of the forms.
-func readLine(text string) (lines.Line, bool) {
-	r := lines.Read(text)
-	l := anyLine(r)
-	if !r.Right() {
-		return nil, false
-	}
-	return l, true
-}
-
 // anyLine reads a line of any kind. Whether the digits of an entry are some, CheckBook tells.
-func anyLine(r *lines.Reading) lines.Line {
+func anyLine(r *lines.Reading) lines.Placed {
 	word := r.Word()
 	switch word {
 	case "strip":
@@ -138,7 +101,7 @@ func anyLine(r *lines.Reading) lines.Line {
 }
 
 // anyCount reads a count with a word.
-func anyCount(r *lines.Reading, word string) lines.Line {
+func anyCount(r *lines.Reading, word string) lines.Placed {
 	for k, kind := range kinds() {
 		if kind.word != word {
 			continue

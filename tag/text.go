@@ -10,11 +10,22 @@ import (
 // empty stands for what a line leaves empty.
 const empty = "-"
 
+// The places of lines, in their order; the first one is that of the first line alone.
+const (
+	housePlace = iota
+	alikePlace
+	tagPlace
+)
+
 type (
 	houseLine struct{ letters, spare, repeat string }
 	alikeLine string
 	tagLine   api.TagTag
 )
+
+func (l houseLine) Place() int { return housePlace }
+func (l alikeLine) Place() int { return alikePlace }
+func (l tagLine) Place() int   { return tagPlace }
 
 func (l houseLine) Text() string {
 	return strings.Join([]string{"house", l.letters, orEmpty(l.spare), orEmpty(l.repeat)}, " ")
@@ -44,54 +55,30 @@ func (h house) written() []lines.Line {
 	return all
 }
 
-// readHouse reads a house that is not checked yet.
-func readHouse(text string) (house, error) {
-	texts := lines.Split(text)
-	if len(texts) == 0 {
-		return house{}, lines.Wrong{}
-	}
-	var h house
-	for i, t := range texts {
-		l, ok := readLine(t)
-		if !ok || !h.add(l, i == 0) {
-			return house{}, lines.Wrong{Line: i + 1}
-		}
-	}
-	return h, nil
-}
-
-// add adds to the house what a line says, and tells whether the line can stand there; it is the first one, or not.
-func (h *house) add(l lines.Line, first bool) bool {
+// add adds to the house what a line says.
+func (h *house) add(l lines.Placed) {
 	switch l := l.(type) {
 	case houseLine:
 		h.Letters, h.Spare, h.Repeat = l.letters, l.spare, l.repeat
-		return first
 	case alikeLine:
-		if len(h.Tags) > 0 {
-			return false
-		}
 		h.Alike = append(h.Alike, string(l))
 	case tagLine:
 		h.Tags = append(h.Tags, api.TagTag(l))
 	}
-	return !first
 }
 
-// readLine reads a line, and tells whether it has one of the forms. Whether letters are some, CheckHouse tells.
-func readLine(text string) (lines.Line, bool) {
-	var l lines.Line
-	r := lines.Read(text)
+// anyLine reads a line of any kind. Whether letters are some, CheckHouse tells.
+func anyLine(r *lines.Reading) lines.Placed {
 	switch r.Word() {
 	case "house":
-		l = houseLine{r.Word(), fieldOrEmpty(r), fieldOrEmpty(r)}
+		return houseLine{r.Word(), fieldOrEmpty(r), fieldOrEmpty(r)}
 	case "alike":
-		l = alikeLine(r.Word())
+		return alikeLine(r.Word())
 	case "tag":
-		l = tagLine{r.Word(), r.Span()}
-	default:
-		r.Fail()
+		return tagLine{r.Word(), r.Span()}
 	}
-	return l, r.Right()
+	r.Fail()
+	return nil
 }
 
 // fieldOrEmpty reads a field of a text that can be empty.

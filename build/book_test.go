@@ -9,6 +9,7 @@ import (
 
 	"nosale/api"
 	"nosale/build"
+	"nosale/promises"
 )
 
 // parts are those of the book B of the chapter's examples, and its pair.
@@ -151,4 +152,9 @@ func reportMachine(b api.BuildBook, machine []int, put func(name string, values 
 		o, l := build.Try(b, trial(took, machine...))
 		put("Try", machine, took, o, l)
 	}
+}
+
+// layer is how this layer is held to what is promised of all of them.
+func layer() promises.Layer[api.BuildBook] {
+	return promises.Layer[api.BuildBook]{Print: build.Print, Parse: build.Parse, HasShape: true, Show: show}
 }

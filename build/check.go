@@ -73,20 +73,7 @@ func (b book) checkPart(i int) api.Bell {
 	if !spans.IsFrom(p.Time, 0, api.MaxBuildTime) || spans.Many(p.Time) > api.MaxBuildWide {
 		return api.Bound
 	}
-	return b.checkFits(p.Fits)
-}
-
-// checkFits returns the first bell of the places that a part fits.
-func (b book) checkFits(places []int) api.Bell {
-	for i, place := range places {
-		if !b.hasPlace(place) {
-			return api.Missing
-		}
-		if i > 0 && place <= places[i-1] {
-			return api.Order
-		}
-	}
-	return api.Fine
+	return checks.Rising(p.Fits, b.Places)
 }
 
 // checkPair returns the bell of a pair.

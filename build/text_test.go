@@ -40,28 +40,14 @@ func TestPrintIsParsed(t *testing.T) {
 	d := dice.Dice(5)
 	var books []api.BuildBook
 	for _, text := range texts() {
-		b := parse(t, text)
-		if got, l := build.Print(b); got != text || l != api.Fine {
-			t.Errorf("%q is printed as %q, bell %d", text, got, l)
-		}
-		books = append(books, b)
+		layer().Parses(t, text, 0, api.Fine)
+		books = append(books, parse(t, text))
 	}
 	for i := range 500 {
 		b, _ := anyBook(&d, i%2 == 0)
 		books = append(books, b)
 	}
-	for _, b := range books {
-		text, l := build.Print(b)
-		if l != api.Fine || !strings.HasSuffix(text, "\n") {
-			t.Errorf("%+v: %q, bell %d", b, text, l)
-		}
-		for _, text := range []string{text, strings.TrimSuffix(text, "\n")} {
-			o, line, l := build.Parse(text)
-			if show(o) != show(b) || line != 0 || l != api.Fine {
-				t.Errorf("%q: %+v, line %d, bell %d", text, o, line, l)
-			}
-		}
-	}
+	layer().PrintIsParsed(t, books...)
 }
 
 // parseCase is a text, and what Parse returns.
@@ -126,37 +112,11 @@ func fieldCases() []parseCase {
 // P5.5: Parse returns the bell of a text, and the first line that is wrong.
 func TestParse(t *testing.T) {
 	for _, x := range append(placeCases(), fieldCases()...) {
-		b, line, l := build.Parse(x.text)
-		if line != x.line || l != x.l {
-			t.Errorf("%.60q: line %d, bell %d, want %d, %d", x.text, line, l, x.line, x.l)
-		}
-		if l != api.Fine {
-			if show(b) != show(api.BuildBook{}) {
-				t.Errorf("%.60q: a bell, and the book %+v", x.text, b)
-			}
-			continue
-		}
-		if text, _ := build.Print(b); text != strings.TrimSuffix(x.text, "\n")+"\n" {
-			t.Errorf("%.60q is printed as %q", x.text, text)
-		}
+		layer().Parses(t, x.text, x.line, x.l)
 	}
 }
 
 // P5.5, P0.1: any change of a byte is parsed as a book that is printed like that, or has a bell; only a line that has no form has a number.
 func TestParseAnything(t *testing.T) {
-	for _, from := range []string{textB, textAll} {
-		for at := range len(from) {
-			for _, c := range "\x00\n +-.0139abdlnoptz\xff" {
-				text := from[:at] + string(c) + from[at+1:]
-				b, line, l := build.Parse(text)
-				if l == api.Fine {
-					if back, _ := build.Print(b); back != strings.TrimSuffix(text, "\n")+"\n" || line != 0 {
-						t.Errorf("%q: line %d, printed as %q", text, line, back)
-					}
-				} else if show(b) != show(api.BuildBook{}) || l != api.Shape && line != 0 {
-					t.Errorf("%q: %+v, line %d, bell %d", text, b, line, l)
-				}
-			}
-		}
-	}
+	layer().AnyByte(t, "\x00\n +-.0139abdlnoptz\xff", textB, textAll)
 }

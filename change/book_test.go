@@ -9,6 +9,7 @@ import (
 
 	"nosale/api"
 	"nosale/change"
+	"nosale/promises"
 )
 
 // The book D of the chapter's examples, and some more.
@@ -143,4 +144,9 @@ func reportList(b api.ChangeBook, list []int, put func(name string, values ...an
 		is, l := change.IsHistory(b, list, order)
 		put("IsHistory", list, order, is, l)
 	}
+}
+
+// layer is how this layer is held to what is promised of all of them.
+func layer() promises.Layer[api.ChangeBook] {
+	return promises.Layer[api.ChangeBook]{Print: change.Print, Parse: change.Parse, Show: show}
 }

@@ -41,28 +41,14 @@ func TestPrintIsParsed(t *testing.T) {
 	d := dice.Dice(5)
 	var books []api.ChangeBook
 	for _, text := range texts() {
-		b := parse(t, text)
-		if got, l := change.Print(b); got != text || l != api.Fine {
-			t.Errorf("%q is printed as %q, bell %d", text, got, l)
-		}
-		books = append(books, b)
+		layer().Parses(t, text, 0, api.Fine)
+		books = append(books, parse(t, text))
 	}
 	for i := range 500 {
 		b, _ := anyBook(&d, i%2 == 0)
 		books = append(books, b)
 	}
-	for _, b := range books {
-		text, l := change.Print(b)
-		if l != api.Fine || !strings.HasSuffix(text, "\n") {
-			t.Errorf("%+v: %q, bell %d", b, text, l)
-		}
-		for _, text := range []string{text, strings.TrimSuffix(text, "\n")} {
-			o, line, l := change.Parse(text)
-			if show(o) != show(b) || line != 0 || l != api.Fine {
-				t.Errorf("%q: %+v, line %d, bell %d", text, o, line, l)
-			}
-		}
-	}
+	layer().PrintIsParsed(t, books...)
 }
 
 // parseCase is a text, and what Parse returns.
@@ -121,35 +107,11 @@ func fieldCases() []parseCase {
 // P4.5: Parse returns the bell of a text, and the first line that is wrong.
 func TestParse(t *testing.T) {
 	for _, x := range append(placeCases(), fieldCases()...) {
-		b, line, l := change.Parse(x.text)
-		if line != x.line || l != x.l {
-			t.Errorf("%.60q: line %d, bell %d, want %d, %d", x.text, line, l, x.line, x.l)
-		}
-		if l != api.Fine {
-			if show(b) != show(api.ChangeBook{}) {
-				t.Errorf("%.60q: a bell, and the book %+v", x.text, b)
-			}
-			continue
-		}
-		if text, _ := change.Print(b); text != strings.TrimSuffix(x.text, "\n")+"\n" {
-			t.Errorf("%.60q is printed as %q", x.text, text)
-		}
+		layer().Parses(t, x.text, x.line, x.l)
 	}
 }
 
 // P4.5, P0.1: any change of a byte is parsed as a book that is printed like that, or has a bell.
 func TestParseAnything(t *testing.T) {
-	for at := range len(textAll) {
-		for _, c := range "\x00\n +-.?0139adeot\xff" {
-			text := textAll[:at] + string(c) + textAll[at+1:]
-			b, line, l := change.Parse(text)
-			if l == api.Fine {
-				if back, _ := change.Print(b); back != strings.TrimSuffix(text, "\n")+"\n" || line != 0 {
-					t.Errorf("%q: line %d, printed as %q", text, line, back)
-				}
-			} else if show(b) != show(api.ChangeBook{}) || (l == api.Shape) != (line != 0) {
-				t.Errorf("%q: %+v, line %d, bell %d", text, b, line, l)
-			}
-		}
-	}
+	layer().AnyByte(t, "\x00\n +-.?0139adeot\xff", textAll)
 }

@@ -1,9 +1,12 @@
 // Package checks finds the first bell of a book (rule R1 of shared/DOC.md).
 package checks
 
-import "nosale/api"
+import (
+	"nosale/api"
+	"nosale/spans"
+)
 
-// List is one of the lists of a book: how many elements it has, and whether it can have so many; and the bell of an element, which relies on all that is checked before it.
+// List is one of the lists of a book: how many elements it has, and whether it can have so many; and the bell of an element, which relies on all that is checked before it (none is needed where there are no elements to look at).
 type List[B any] struct {
 	Long func(b B) (many int, right bool)
 	Bell func(b B, i int) api.Bell
@@ -30,6 +33,19 @@ func InTurn(all ...func() api.Bell) api.Bell {
 	for _, check := range all {
 		if l := check(); l != api.Fine {
 			return l
+		}
+	}
+	return api.Fine
+}
+
+// Rising returns the first bell of a list of indexes of so many things, each of which is to be above the one before it.
+func Rising(list []int, things int) api.Bell {
+	for i, n := range list {
+		if !spans.Within(n, 0, things-1) {
+			return api.Missing
+		}
+		if i > 0 && n <= list[i-1] {
+			return api.Order
 		}
 	}
 	return api.Fine

@@ -1,6 +1,7 @@
 package checks
 
 import (
+	"math"
 	"testing"
 
 	"nosale/api"
@@ -66,6 +67,25 @@ func TestInTurn(t *testing.T) {
 		made = 0
 		if l := InTurn(x.all...); l != x.want || made != x.made {
 			t.Errorf("%d: bell %d after %d checks, want %d, %d", i, l, made, x.want, x.made)
+		}
+	}
+}
+
+// R1: number by number, one that is no index comes before one that is not above the one before it.
+func TestRising(t *testing.T) {
+	for _, x := range []struct {
+		list   []int
+		things int
+		want   api.Bell
+	}{
+		{nil, 0, api.Fine}, {nil, 3, api.Fine}, {[]int{0}, 1, api.Fine}, {[]int{0, 2}, 3, api.Fine}, {[]int{0, 1, 2}, 3, api.Fine},
+		{[]int{0}, 0, api.Missing}, {[]int{3}, 3, api.Missing}, {[]int{-1}, 3, api.Missing}, {[]int{math.MinInt}, 3, api.Missing}, {[]int{0, math.MaxInt}, 3, api.Missing},
+		{[]int{1, 0}, 3, api.Order}, {[]int{1, 1}, 3, api.Order}, {[]int{0, 2, 1}, 3, api.Order},
+		// the first number that has a bell decides, and of its bells Missing
+		{[]int{1, 0, 3}, 3, api.Order}, {[]int{1, 3, 0}, 3, api.Missing}, {[]int{1, -1}, 3, api.Missing}, {make([]int, 1000000), 3, api.Order},
+	} {
+		if l := Rising(x.list, x.things); l != x.want {
+			t.Errorf("%.40v of %d: bell %d, want %d", x.list, x.things, l, x.want)
 		}
 	}
 }

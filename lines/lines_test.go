@@ -235,18 +235,3 @@ func TestReadPlaced(t *testing.T) {
 
 // readNothing reads no line.
 func readNothing(r *Reading) Placed { r.Fail(); return nil }
-
-func TestReadLines(t *testing.T) {
-	for _, x := range placedTexts() {
-		got := ""
-		err := ReadLines(x.text, readRanked, func(l Placed) { got += l.Text() })
-		var wrong Wrong
-		if errors.As(err, &wrong) != (x.bell != api.Fine) || wrong.Line != x.line || got != x.want {
-			t.Errorf("%.40q: %v, %.40q, want %d, %.40q", x.text, err, got, x.line, x.want)
-		}
-	}
-	var wrong Wrong
-	if err := ReadLines("a 0\n", readNothing, func(l Placed) { t.Error("a wrong line was added") }); !errors.As(err, &wrong) || wrong.Line != 1 {
-		t.Errorf("%v", err)
-	}
-}

@@ -1,6 +1,10 @@
 package lines
 
-import "nosale/api"
+import (
+	"errors"
+
+	"nosale/api"
+)
 
 // Placed is a line that has its place among the kinds of lines of a text.
 type Placed interface {
@@ -30,8 +34,8 @@ func readAll(text string, read func(r *Reading) Placed, add func(l Placed)) {
 	}
 }
 
-// ReadLines reads the lines of a text in their order, and adds each of them; the error is Wrong if one of them, or the text, is wrong.
-func ReadLines(text string, read func(r *Reading) Placed, add func(l Placed)) (err error) {
+// readLines reads the lines of a text in their order, and adds each of them; the error is Wrong if one of them, or the text, is wrong.
+func readLines(text string, read func(r *Reading) Placed, add func(l Placed)) (err error) {
 	defer func() {
 		if wrong, is := recover().(Wrong); is {
 			err = wrong
@@ -46,11 +50,9 @@ func ReadPlaced(text string, read func(r *Reading) Placed, add func(l Placed)) (
 	if len(text) > api.MaxText {
 		return 0, api.Count
 	}
-	defer func() {
-		if wrong, is := recover().(Wrong); is {
-			line, l = wrong.Line, api.Shape
-		}
-	}()
-	readAll(text, read, add)
+	var wrong Wrong
+	if errors.As(readLines(text, read, add), &wrong) {
+		return wrong.Line, api.Shape
+	}
 	return 0, api.Fine
 }

@@ -8,6 +8,7 @@ import (
 	"testing"
 
 	"nosale/api"
+	"nosale/promises"
 	"nosale/sales"
 )
 
@@ -143,4 +144,9 @@ func reportNumber(b api.SalesBook, n int, put func(name string, values ...any)) 
 		o, l = sales.Note(b, sum(api.SalesSumKind(m), 0, n, 9999))
 		put("Note", m, n, o, l)
 	}
+}
+
+// layer is how this layer is held to what is promised of all of them.
+func layer() promises.Layer[api.SalesBook] {
+	return promises.Layer[api.SalesBook]{Print: sales.Print, Parse: sales.Parse, Show: show}
 }

@@ -4,7 +4,6 @@ import (
 	"math"
 	"slices"
 	"strings"
-	"sync"
 	"testing"
 
 	"nosale/api"
@@ -30,24 +29,7 @@ func TestAlwaysTheSame(t *testing.T) {
 		b, _ := anyBook(&d, i%2 == 0)
 		books = append(books, b)
 	}
-	for _, b := range books {
-		want := report(b)
-		before := show(b)
-		var wait sync.WaitGroup
-		got := make([]string, 3)
-		for i := range got {
-			wait.Go(func() { got[i] = report(b) })
-		}
-		wait.Wait()
-		for _, g := range got {
-			if g != want {
-				t.Errorf("%.200s: other results when called again", before)
-			}
-		}
-		if show(b) != before {
-			t.Errorf("%.200s was changed: %.200s", before, show(b))
-		}
-	}
+	layer().AlwaysTheSame(t, report, books...)
 }
 
 // P0.1: numbers that are very great or very small, and slices that are very long, have a bell.

@@ -7,6 +7,7 @@ import (
 	"testing"
 
 	"nosale/api"
+	"nosale/promises"
 	"nosale/strip"
 )
 
@@ -170,4 +171,9 @@ func reportPlays(b api.StripBook, put func(name string, values ...any)) {
 			put("IsHistory", m, s, is, l)
 		}
 	}
+}
+
+// layer is how this layer is held to what is promised of all of them.
+func layer() promises.Layer[api.StripBook] {
+	return promises.Layer[api.StripBook]{Print: strip.Print, Parse: strip.Parse, HasShape: true, Show: show}
 }

@@ -8,6 +8,7 @@ import (
 	"testing"
 
 	"nosale/api"
+	"nosale/promises"
 	"nosale/tag"
 )
 
@@ -125,4 +126,9 @@ func reportNumber(h api.TagHouse, n int, put func(name string, values ...any)) {
 		o, l := tag.Know(h, n, s)
 		put("Know", n, s, o, l)
 	}
+}
+
+// layer is how this layer is held to what is promised of all of them.
+func layer() promises.Layer[api.TagHouse] {
+	return promises.Layer[api.TagHouse]{Print: tag.Print, Parse: tag.Parse, HasShape: true, Show: show}
 }

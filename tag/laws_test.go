@@ -4,7 +4,6 @@ import (
 	"math"
 	"slices"
 	"strings"
-	"sync"
 	"testing"
 
 	"nosale/api"
@@ -32,24 +31,7 @@ func TestAlwaysTheSame(t *testing.T) {
 		h, _ := anyHouse(&d, i%2 == 0)
 		houses = append(houses, h)
 	}
-	for _, h := range houses {
-		want := report(h)
-		before := show(h)
-		var wait sync.WaitGroup
-		got := make([]string, 3)
-		for i := range got {
-			wait.Go(func() { got[i] = report(h) })
-		}
-		wait.Wait()
-		for _, g := range got {
-			if g != want {
-				t.Errorf("%.200s: other results when called again", before)
-			}
-		}
-		if show(h) != before {
-			t.Errorf("%.200s was changed: %.200s", before, show(h))
-		}
-	}
+	layer().AlwaysTheSame(t, report, houses...)
 }
 
 // P0.1: numbers that are very great or very small, strings of any bytes, and slices that are very long, have a bell.

@@ -34,28 +34,14 @@ func TestPrintIsParsed(t *testing.T) {
 	d := dice.Dice(6)
 	var houses []api.TagHouse
 	for _, text := range texts() {
-		h := parse(t, text)
-		if got, l := tag.Print(h); got != text || l != api.Fine {
-			t.Errorf("%q is printed as %q, bell %d", text, got, l)
-		}
-		houses = append(houses, h)
+		layer().Parses(t, text, 0, api.Fine)
+		houses = append(houses, parse(t, text))
 	}
 	for i := range 500 {
 		h, _ := anyHouse(&d, i%2 == 0)
 		houses = append(houses, h)
 	}
-	for _, h := range houses {
-		text, l := tag.Print(h)
-		if l != api.Fine || !strings.HasSuffix(text, "\n") {
-			t.Errorf("%+v: %q, bell %d", h, text, l)
-		}
-		for _, text := range []string{text, strings.TrimSuffix(text, "\n")} {
-			o, line, l := tag.Parse(text)
-			if show(o) != show(h) || line != 0 || l != api.Fine {
-				t.Errorf("%q: %+v, line %d, bell %d", text, o, line, l)
-			}
-		}
-	}
+	layer().PrintIsParsed(t, houses...)
 }
 
 // parseCase is a text, and what Parse returns.
@@ -106,19 +92,7 @@ func fieldCases() []parseCase {
 // P3.4: Parse returns the bell of a text, and the first line that is wrong.
 func TestParse(t *testing.T) {
 	for _, x := range append(placeCases(), fieldCases()...) {
-		h, line, l := tag.Parse(x.text)
-		if line != x.line || l != x.l {
-			t.Errorf("%.60q: line %d, bell %d, want %d, %d", x.text, line, l, x.line, x.l)
-		}
-		if l != api.Fine {
-			if show(h) != show(api.TagHouse{}) {
-				t.Errorf("%.60q: a bell, and the house %+v", x.text, h)
-			}
-			continue
-		}
-		if text, _ := tag.Print(h); text != strings.TrimSuffix(x.text, "\n")+"\n" {
-			t.Errorf("%.60q is printed as %q", x.text, text)
-		}
+		layer().Parses(t, x.text, x.line, x.l)
 	}
 }
 
@@ -135,17 +109,5 @@ func TestParsedHouse(t *testing.T) {
 
 // P3.4, P0.1: any change of a byte is parsed as a house that is printed like that, or has a bell.
 func TestParseAnything(t *testing.T) {
-	for at := range len(textAll) {
-		for _, c := range "\x00\n +-.?019AEZagé\xff" {
-			text := textAll[:at] + string(c) + textAll[at+1:]
-			h, line, l := tag.Parse(text)
-			if l == api.Fine {
-				if back, _ := tag.Print(h); back != strings.TrimSuffix(text, "\n")+"\n" || line != 0 {
-					t.Errorf("%q: line %d, printed as %q", text, line, back)
-				}
-			} else if show(h) != show(api.TagHouse{}) || l != api.Shape && line != 0 {
-				t.Errorf("%q: %+v, line %d, bell %d", text, h, line, l)
-			}
-		}
-	}
+	layer().AnyByte(t, "\x00\n +-.?019AEZagé\xff", textAll)
 }

@@ -6,6 +6,7 @@ import (
 	"testing"
 
 	"nosale/api"
+	"nosale/promises"
 	"nosale/wheels"
 )
 
@@ -124,4 +125,9 @@ func reportDigits(b api.WheelsBook, digits []int, put func(name string, values .
 			put("Slide", l, s)
 		}
 	}
+}
+
+// layer is how this layer is held to what is promised of all of them.
+func layer() promises.Layer[api.WheelsBook] {
+	return promises.Layer[api.WheelsBook]{Print: wheels.Print, Parse: wheels.Parse, Show: show}
 }

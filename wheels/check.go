@@ -81,16 +81,3 @@ func checkDigits(wheels []api.WheelsWheel, lowest int, lists ...[]int) api.Bell 
 	}
 	return api.Fine
 }
-
-// checkSlips returns the first bell of a list of wheels whose carries slip.
-func checkSlips(wheels []api.WheelsWheel, slips []int) api.Bell {
-	for i, w := range slips {
-		if w < 0 || w >= len(wheels) {
-			return api.Missing
-		}
-		if i > 0 && w <= slips[i-1] {
-			return api.Order
-		}
-	}
-	return api.Fine
-}

@@ -3,7 +3,6 @@ package wheels_test
 import (
 	"math"
 	"slices"
-	"sync"
 	"testing"
 
 	"nosale/api"
@@ -60,24 +59,7 @@ func TestAlwaysTheSame(t *testing.T) {
 		b, _ := anyBook(&d, i%2 == 0)
 		books = append(books, b)
 	}
-	for _, b := range books {
-		want := report(b)
-		before := show(b)
-		var wait sync.WaitGroup
-		got := make([]string, 4)
-		for i := range got {
-			wait.Go(func() { got[i] = report(b) })
-		}
-		wait.Wait()
-		for _, g := range got {
-			if g != want {
-				t.Errorf("%v: other results when called again", b)
-			}
-		}
-		if show(b) != before {
-			t.Errorf("%s was changed: %v", before, b)
-		}
-	}
+	layer().AlwaysTheSame(t, report, books...)
 }
 
 // P0.1: numbers that are very great or very small, and slices that are very long, have a bell.

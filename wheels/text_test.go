@@ -35,18 +35,7 @@ func TestPrintIsParsed(t *testing.T) {
 		b, _ := anyBook(&d, i%2 == 0)
 		books = append(books, b)
 	}
-	for _, b := range books {
-		text, s := wheels.Print(b)
-		if s != api.Fine || !strings.HasSuffix(text, "\n") {
-			t.Errorf("%v: %q, bell %d", b, text, s)
-		}
-		for _, text := range []string{text, strings.TrimSuffix(text, "\n")} {
-			o, line, s := wheels.Parse(text)
-			if show(o) != show(b) || line != 0 || s != api.Fine {
-				t.Errorf("%q: %v, line %d, bell %d", text, o, line, s)
-			}
-		}
-	}
+	layer().PrintIsParsed(t, books...)
 }
 
 // P1.4: Parse returns the bell of a text, and the first line that is wrong.
@@ -77,35 +66,11 @@ func TestParse(t *testing.T) {
 		{"wheels 999999999\nwheel 3 tight\nstart 0\n", 0, api.Bound}, {"wheels -1\nwheel 3 tight\nstart 0\n", 0, api.Bound}, {"wheels 3\nwheel 3 tight\nstart 0\nring\n", 4, api.Shape}, {"wheels 0\nstart none\n", 0, api.Count}, {"wheels 0\nwheel 3 tight\nstart none\n", 0, api.Count}, {"wheels 0\nwheel 3 tight\nstart -2\n", 0, api.Bound}, {one + "ring none none\n", 0, api.Count}, {one + "ring 3 none\n", 0, api.Bound}, {one + "ring 1 0+0\n", 0, api.Count}, {one + strings.Repeat("ring 0 none\n", 7), 0, api.Count},
 		{"wheels 0\n" + strings.Repeat("wheel 3 tight\n", 6) + "start 0\n", 0, api.Count},
 	} {
-		b, line, s := wheels.Parse(x.text)
-		if line != x.line || s != x.s {
-			t.Errorf("%.60q: line %d, bell %d, want %d, %d", x.text, line, s, x.line, x.s)
-		}
-		if s != api.Fine && b.Most+len(b.Wheels)+len(b.Start)+len(b.Rings) > 0 {
-			t.Errorf("%.60q: a bell, and the book %v", x.text, b)
-		}
-		if s != api.Fine {
-			continue
-		}
-		if text, _ := wheels.Print(b); text != strings.TrimSuffix(x.text, "\n")+"\n" {
-			t.Errorf("%.60q is printed as %q", x.text, text)
-		}
+		layer().Parses(t, x.text, x.line, x.s)
 	}
 }
 
 // P1.4, P0.1: any change of a byte is parsed as a book that is printed like that, or has a bell.
 func TestParseAnything(t *testing.T) {
-	for at := range len(textE) {
-		for _, c := range "\x00\n +-019.aswé\xff" {
-			text := textE[:at] + string(c) + textE[at+1:]
-			b, line, s := wheels.Parse(text)
-			if s == api.Fine {
-				if back, _ := wheels.Print(b); back != strings.TrimSuffix(text, "\n")+"\n" || line != 0 {
-					t.Errorf("%q: line %d, printed as %q", text, line, back)
-				}
-			} else if len(b.Wheels) > 0 || s == api.Shape && line < 1 || s != api.Shape && line != 0 {
-				t.Errorf("%q: %v, line %d, bell %d", text, b, line, s)
-			}
-		}
-	}
+	layer().AnyByte(t, "\x00\n +-019.aswé\xff", textE)
 }

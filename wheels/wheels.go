@@ -6,6 +6,7 @@ import (
 	"slices"
 
 	"nosale/api"
+	"nosale/checks"
 	"nosale/histories"
 	"nosale/lines"
 )
@@ -76,7 +77,7 @@ func Slide(b api.WheelsBook, digits, keys, slips []int) ([]int, api.Bell) {
 	if s := checkDigits(c.Wheels, 0, digits, keys); s != api.Fine {
 		return nil, s
 	}
-	if s := checkSlips(c.Wheels, slips); s != api.Fine {
+	if s := checks.Rising(slips, len(c.Wheels)); s != api.Fine {
 		return nil, s
 	}
 	shown, _, s := c.ring(rowOf(digits), rowOf(keys), slips)

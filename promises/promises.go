@@ -1,0 +1,119 @@
+// Package promises holds a layer to what shared/DOC.md promises of all of them: the tests of the layers call it.
+package promises
+
+import (
+	"strings"
+	"sync"
+
+	"nosale/api"
+)
+
+// manyTimes is how often a layer is asked at the same time.
+const manyTimes = 3
+
+// Test is what is told of a promise that is broken; each test of Go is one.
+type Test interface {
+	Helper()
+	Errorf(format string, values ...any)
+}
+
+// Layer is how a layer prints and parses its books; HasShape if a book can have the bell Shape. Show writes values so that those that are equal, and no others, look the same.
+type Layer[B any] struct {
+	Print    func(b B) (string, api.Bell)
+	Parse    func(text string) (b B, line int, l api.Bell)
+	HasShape bool
+	Show     func(values ...any) string
+}
+
+// AlwaysTheSame (P0.1, R4): what is reported of books is the same when it is asked again, and at the same time, and changes nothing.
+func (x Layer[B]) AlwaysTheSame(t Test, report func(b B) string, books ...B) {
+	t.Helper()
+	for _, b := range books {
+		before := x.Show(b)
+		want := report(b)
+		got := make([]string, manyTimes)
+		var wait sync.WaitGroup
+		for i := range got {
+			wait.Add(1)
+			go func() {
+				defer wait.Done()
+				got[i] = report(b)
+			}()
+		}
+		wait.Wait()
+		for _, g := range got {
+			if g != want {
+				t.Errorf("%.200s: other results when called again", before)
+			}
+		}
+		if after := x.Show(b); after != before {
+			t.Errorf("%.200s was changed: %.200s", before, after)
+		}
+	}
+}
+
+// PrintIsParsed (P0.3): what is printed of books without a bell is parsed as equal books, with or without the last line feed.
+func (x Layer[B]) PrintIsParsed(t Test, books ...B) {
+	t.Helper()
+	for _, b := range books {
+		text, l := x.Print(b)
+		if l != api.Fine || !strings.HasSuffix(text, "\n") {
+			t.Errorf("%s: %q, bell %d", x.Show(b), text, l)
+		}
+		for _, text := range []string{text, strings.TrimSuffix(text, "\n")} {
+			if o, line, l := x.Parse(text); x.Show(o) != x.Show(b) || line != 0 || l != api.Fine {
+				t.Errorf("%q: %s, line %d, bell %d", text, x.Show(o), line, l)
+			}
+		}
+	}
+}
+
+// Parses (R2, R9): a text has a line that is wrong, and a bell, with which there is no book; what has no bell is printed as it was.
+func (x Layer[B]) Parses(t Test, text string, line int, want api.Bell) {
+	t.Helper()
+	b, n, l := x.Parse(text)
+	if n != line || l != want {
+		t.Errorf("%.60q: line %d, bell %d, want %d, %d", text, n, l, line, want)
+	}
+	x.isBookOrBell(t, text, b, l)
+}
+
+// WrongLines (R9): each of these lines is the first one that is wrong if it stands behind others.
+func (x Layer[B]) WrongLines(t Test, line int, before string, wrong ...string) {
+	t.Helper()
+	for _, w := range wrong {
+		x.Parses(t, before+w+"\n", line, api.Shape)
+	}
+}
+
+// AnyByte (P0.1, P0.3): each text of which one byte is any of some is a book that is printed like that, or has a bell; only a line that does not have its form has a number.
+func (x Layer[B]) AnyByte(t Test, bytes string, texts ...string) {
+	t.Helper()
+	for _, from := range texts {
+		for at := range len(from) {
+			for i := range len(bytes) {
+				text := from[:at] + bytes[i:i+1] + from[at+1:]
+				b, line, l := x.Parse(text)
+				if line < 0 || line > 0 && l != api.Shape || line == 0 && l == api.Shape && !x.HasShape {
+					t.Errorf("%q: line %d, bell %d", text, line, l)
+				}
+				x.isBookOrBell(t, text, b, l)
+			}
+		}
+	}
+}
+
+// isBookOrBell tells whether there is no book together with a bell, and a book that is printed as it was parsed without one.
+func (x Layer[B]) isBookOrBell(t Test, text string, b B, l api.Bell) {
+	t.Helper()
+	if l != api.Fine {
+		var none B
+		if x.Show(b) != x.Show(none) {
+			t.Errorf("%.60q: bell %d, and the book %s", text, l, x.Show(b))
+		}
+		return
+	}
+	if back, _ := x.Print(b); back != strings.TrimSuffix(text, "\n")+"\n" {
+		t.Errorf("%.60q is printed as %q", text, back)
+	}
+}

@@ -77,10 +77,17 @@ func Span[H any](all iter.Seq[H], number func(h H) int) (api.Span, api.Bell) {
 
 // Ask returns the first of so many things whose number leaves the fewest histories at most once it is known, and how many those are; -1, and all histories, if none leaves fewer.
 func Ask[H any](all []H, things int, number func(h H, thing int) int) (thing, left int) {
-	thing, left = -1, len(all)
+	return Best(len(all), things, func(thing int) int {
+		return mostAlike(all, func(h H) int { return number(h, thing) })
+	})
+}
+
+// Best returns the first of so many things that leaves the fewest of so many histories at most, and how many those are; -1, and all, if none leaves fewer.
+func Best(all, things int, most func(thing int) int) (thing, left int) {
+	thing, left = -1, all
 	for i := range things {
-		if most := mostAlike(all, func(h H) int { return number(h, i) }); most < left {
-			thing, left = i, most
+		if n := most(i); n < left {
+			thing, left = i, n
 		}
 	}
 	return thing, left

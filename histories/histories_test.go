@@ -86,3 +86,15 @@ func TestAsk(t *testing.T) {
 		t.Errorf("nothing to ask: %d, %d", thing, left)
 	}
 }
+
+func TestBest(t *testing.T) {
+	for _, x := range []struct {
+		all         int
+		most        []int
+		thing, left int
+	}{{5, nil, -1, 5}, {0, []int{0}, -1, 0}, {5, []int{5, 5}, -1, 5}, {5, []int{5, 4}, 1, 4}, {5, []int{4, 2, 3, 2}, 1, 2}, {5, []int{1, 1}, 0, 1}} {
+		if thing, left := Best(x.all, len(x.most), func(i int) int { return x.most[i] }); thing != x.thing || left != x.left {
+			t.Errorf("%d, %v: %d, %d, want %d, %d", x.all, x.most, thing, left, x.thing, x.left)
+		}
+	}
+}

@@ -25,3 +25,13 @@ func Common(a, b api.Span) (api.Span, bool) {
 	}
 	return s, true
 }
+
+// Together returns the span of what several things amount to together, of each of which a span is told.
+func Together[E any](tell func(e E) api.Span, several ...E) api.Span {
+	var all api.Span
+	for _, e := range several {
+		s := tell(e)
+		all = api.Span{Low: all.Low + s.Low, High: all.High + s.High}
+	}
+	return all
+}

@@ -62,3 +62,15 @@ func TestCommon(t *testing.T) {
 		}
 	}
 }
+
+func TestTogether(t *testing.T) {
+	from1 := func(n int) api.Span { return api.Span{Low: 1, High: n} }
+	for _, x := range []struct {
+		several []int
+		want    api.Span
+	}{{nil, api.Span{}}, {[]int{1}, api.Span{Low: 1, High: 1}}, {[]int{5}, api.Span{Low: 1, High: 5}}, {[]int{5, 1, 7}, api.Span{Low: 3, High: 13}}} {
+		if got := Together(from1, x.several...); got != x.want {
+			t.Errorf("%v together: %v, want %v", x.several, got, x.want)
+		}
+	}
+}

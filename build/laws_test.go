@@ -9,6 +9,7 @@ import (
 	"nosale/api"
 	"nosale/build"
 	"nosale/dice"
+	"nosale/oracle"
 )
 
 // P0.1: each function returns, whatever it is called with, and returns the same to several goroutines; it changes nothing.
@@ -263,12 +264,12 @@ func TestWhyAlone(t *testing.T) {
 		}
 		// with a part that fits the other places, and is in no pair, there is still no machine
 		if o := clone(b); len(o.Parts) < api.MaxBuildParts {
-			o.Parts = append(o.Parts, api.BuildPart{Name: "other", Fits: slices.DeleteFunc(upTo(0, b.Places-1), func(place int) bool { return slices.Contains(list, place) })})
+			o.Parts = append(o.Parts, api.BuildPart{Name: "other", Fits: slices.DeleteFunc(oracle.UpTo(0, b.Places-1), func(place int) bool { return slices.Contains(list, place) })})
 			if n, l := build.Machines(o); n != 0 || l != api.Fine {
 				t.Errorf("%+v: %d machines when only %v cannot be filled, bell %d", b, n, list, l)
 			}
 		}
-		for _, fewer := range subsets(b.Places) {
+		for _, fewer := range oracle.Subsets(b.Places) {
 			if len(fewer) < len(list) && !isFilled(b, fewer) {
 				t.Errorf("%+v: there are no parts for %v, but neither for %v", b, list, fewer)
 			}

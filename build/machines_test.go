@@ -8,6 +8,7 @@ import (
 	"nosale/api"
 	"nosale/build"
 	"nosale/dice"
+	"nosale/oracle"
 )
 
 // P5.1: Machines and Why tell what machines there are, and for which places there are no parts.
@@ -96,12 +97,12 @@ func TestMachinesLikeOracle(t *testing.T) {
 		}
 		whys[len(why)]++
 		for place := range b.Places {
-			want := slices.DeleteFunc(upTo(0, len(b.Parts)-1), func(part int) bool { return !slices.Contains(b.Parts[part].Fits, place) })
+			want := slices.DeleteFunc(oracle.UpTo(0, len(b.Parts)-1), func(part int) bool { return !slices.Contains(b.Parts[part].Fits, place) })
 			if list, l := build.Can(b, place); !slices.Equal(list, want) || l != api.Fine {
 				t.Errorf("%+v: Can %d: %v, bell %d, want %v", b, place, list, l, want)
 			}
 		}
-		for _, list := range combined(slices.Repeat([][]int{upTo(0, len(b.Parts)-1)}, b.Places)) {
+		for _, list := range oracle.Combined(slices.Repeat([][]int{oracle.UpTo(0, len(b.Parts)-1)}, b.Places)) {
 			different, cost, bell := 0, 0, api.Shape
 			if stands(b, list) {
 				different, cost, bell = differentOf(list), costOf(b, list), api.Fine

@@ -7,6 +7,7 @@ import (
 	"nosale/api"
 	"nosale/build"
 	"nosale/dice"
+	"nosale/oracle"
 )
 
 // within tells whether few has nothing that all has not.
@@ -69,7 +70,7 @@ func TestKnowingMore(t *testing.T) {
 	for range 200 {
 		b, real := anyBook(&d, false)
 		for part, time := range real {
-			o, l := build.Time(b, part, around(&d, time, 1+d.Roll(3), api.MaxBuildTime))
+			o, l := build.Time(b, part, d.Around(time, 1+d.Roll(3), 0, api.MaxBuildTime))
 			if l != api.Fine {
 				t.Fatalf("%+v: the time %d of %d cannot be known, bell %d", b, time, part, l)
 			}
@@ -77,7 +78,7 @@ func TestKnowingMore(t *testing.T) {
 		}
 		if all := machinesOf(b); len(all) > 0 && len(b.Trials) < api.MaxBuildTrials {
 			machine := all[d.Roll(len(all))]
-			o, l := build.Try(b, trial(around(&d, took(machine, real), 1+d.Roll(3), api.MaxBuildTook), machine...))
+			o, l := build.Try(b, trial(d.Around(took(machine, real), 1+d.Roll(3), 0, api.MaxBuildTook), machine...))
 			if l != api.Fine {
 				t.Fatalf("%+v: the trial of %v cannot be known, bell %d", b, machine, l)
 			}
@@ -104,7 +105,7 @@ func TestClashAlone(t *testing.T) {
 		if n, _ := build.Histories(alone(b, list)); n > 0 {
 			t.Errorf("%+v: %v alone have %d histories", b, list, n)
 		}
-		for _, fewer := range subsets(len(b.Trials)) {
+		for _, fewer := range oracle.Subsets(len(b.Trials)) {
 			if n, _ := build.Histories(alone(b, fewer)); len(fewer) < len(list) && n == 0 {
 				t.Errorf("%+v: %v clash, but so do %v", b, list, fewer)
 			}

@@ -144,14 +144,14 @@ func TestNewsLikeOracle(t *testing.T) {
 			}
 		}
 		for part, p := range b.Parts {
-			s := around(&d, min(api.MaxBuildTime, p.Time.Low+d.Roll(4)), 3, api.MaxBuildTime)
+			s := d.Around(min(api.MaxBuildTime, p.Time.Low+d.Roll(4)), 3, 0, api.MaxBuildTime)
 			want := clone(b)
 			want.Parts[part].Time = to(max(s.Low, p.Time.Low), min(s.High, p.Time.High))
 			o, l := build.Time(b, part, s)
 			same("Time", o, l, want, part, s)
 		}
 		if machines := machinesOf(b); len(machines) > 0 && len(b.Trials) < api.MaxBuildTrials {
-			tried := trial(around(&d, d.Roll(3*b.Beat/2+1), 1+d.Roll(9), api.MaxBuildTook), machines[d.Roll(len(machines))]...)
+			tried := trial(d.Around(d.Roll(3*b.Beat/2+1), 1+d.Roll(9), 0, api.MaxBuildTook), machines[d.Roll(len(machines))]...)
 			want := clone(b)
 			want.Trials = append(want.Trials, tried)
 			o, l := build.Try(b, tried)

@@ -2,54 +2,14 @@ package build_test
 
 import (
 	"cmp"
-	"math"
 	"slices"
 
 	"nosale/api"
 	"nosale/dice"
+	"nosale/oracle"
 )
 
 // The oracle goes through all lists of parts, all times and all sets, one by one; it calls nothing of the package.
-
-// combined returns all lists that have a number of each choice, the least list first.
-func combined(choices [][]int) [][]int {
-	all := [][]int{nil}
-	for _, c := range choices {
-		var longer [][]int
-		for _, list := range all {
-			for _, n := range c {
-				longer = append(longer, append(slices.Clone(list), n))
-			}
-		}
-		all = longer
-	}
-	return all
-}
-
-// upTo returns the numbers from low to high.
-func upTo(low, high int) []int {
-	var list []int
-	for n := low; n <= high; n++ {
-		list = append(list, n)
-	}
-	return list
-}
-
-// subsets returns all lists of indexes below n, the shortest first, then the least one.
-func subsets(n int) [][]int {
-	var all [][]int
-	for _, in := range combined(slices.Repeat([][]int{{0, 1}}, n)) {
-		var list []int
-		for i := range in {
-			if in[i] == 1 {
-				list = append(list, i)
-			}
-		}
-		all = append(all, list)
-	}
-	slices.SortFunc(all, func(a, b []int) int { return cmp.Or(cmp.Compare(len(a), len(b)), slices.Compare(a, b)) })
-	return all
-}
 
 // nowhere stands in a list of parts for a place that has none.
 const nowhere = -1
@@ -73,7 +33,7 @@ func stands(b api.BuildBook, list []int) bool {
 
 // machinesOf returns all machines of a book, the least list first.
 func machinesOf(b api.BuildBook) [][]int {
-	all := combined(slices.Repeat([][]int{upTo(0, len(b.Parts)-1)}, b.Places))
+	all := oracle.Combined(slices.Repeat([][]int{oracle.UpTo(0, len(b.Parts)-1)}, b.Places))
 	return slices.DeleteFunc(all, func(list []int) bool { return !stands(b, list) })
 }
 
@@ -81,14 +41,14 @@ func machinesOf(b api.BuildBook) [][]int {
 func isFilled(b api.BuildBook, places []int) bool {
 	choices := slices.Repeat([][]int{{nowhere}}, b.Places)
 	for _, place := range places {
-		choices[place] = upTo(0, len(b.Parts)-1)
+		choices[place] = oracle.UpTo(0, len(b.Parts)-1)
 	}
-	return slices.ContainsFunc(combined(choices), func(list []int) bool { return stands(b, list) })
+	return slices.ContainsFunc(oracle.Combined(choices), func(list []int) bool { return stands(b, list) })
 }
 
 // whyOf returns the fewest places for which there are no parts.
 func whyOf(b api.BuildBook) []int {
-	for _, places := range subsets(b.Places) {
+	for _, places := range oracle.Subsets(b.Places) {
 		if !isFilled(b, places) {
 			return places
 		}
@@ -126,9 +86,9 @@ func took(machine, times []int) int {
 func pasts(b api.BuildBook) [][]int {
 	var spans [][]int
 	for _, p := range b.Parts {
-		spans = append(spans, upTo(p.Time.Low, p.Time.High))
+		spans = append(spans, oracle.UpTo(p.Time.Low, p.Time.High))
 	}
-	return slices.DeleteFunc(combined(spans), func(times []int) bool {
+	return slices.DeleteFunc(oracle.Combined(spans), func(times []int) bool {
 		return slices.ContainsFunc(b.Trials, func(t api.BuildTrial) bool {
 			n := took(t.Parts, times)
 			return n < t.Took.Low || n > t.Took.High
@@ -138,22 +98,12 @@ func pasts(b api.BuildBook) [][]int {
 
 // timesOf returns the times of a part in histories.
 func timesOf(all [][]int, part int) []int {
-	var list []int
-	for _, times := range all {
-		list = append(list, times[part])
-	}
-	slices.Sort(list)
-	return slices.Compact(list)
+	return oracle.Numbers(all, func(times []int) int { return times[part] })
 }
 
 // turnsOf returns the least and the most ticks that a machine takes.
 func turnsOf(all [][]int, machine []int) api.Span {
-	s := api.Span{Low: math.MaxInt, High: math.MinInt}
-	for _, times := range all {
-		n := took(machine, times)
-		s = api.Span{Low: min(s.Low, n), High: max(s.High, n)}
-	}
-	return s
+	return oracle.Span(all, func(times []int) int { return took(machine, times) })
 }
 
 // lateOf returns whether a machine is late.
@@ -182,7 +132,7 @@ func leastOf(machines [][]int, count func(machine []int) int) []int {
 
 // needsOf returns the parts that no machine lacks.
 func needsOf(b api.BuildBook, machines [][]int) []int {
-	return slices.DeleteFunc(upTo(0, len(b.Parts)-1), func(part int) bool {
+	return slices.DeleteFunc(oracle.UpTo(0, len(b.Parts)-1), func(part int) bool {
 		return slices.ContainsFunc(machines, func(machine []int) bool { return !slices.Contains(machine, part) })
 	})
 }
@@ -224,17 +174,13 @@ func buildsOf(b api.BuildBook, machines [][]int) int {
 
 // alone returns a book with some of its trials alone.
 func alone(b api.BuildBook, trials []int) api.BuildBook {
-	all := b.Trials
-	b.Trials = nil
-	for _, i := range trials {
-		b.Trials = append(b.Trials, all[i])
-	}
+	b.Trials = oracle.Picked(b.Trials, trials)
 	return b
 }
 
 // clashOf returns the fewest trials that contradict each other.
 func clashOf(b api.BuildBook) []int {
-	for _, trials := range subsets(len(b.Trials)) {
+	for _, trials := range oracle.Subsets(len(b.Trials)) {
 		if len(pasts(alone(b, trials))) == 0 {
 			return trials
 		}
@@ -244,30 +190,13 @@ func clashOf(b api.BuildBook) []int {
 
 // askOf returns the part to measure, and how many histories are left at most.
 func askOf(b api.BuildBook, all [][]int) (part, left int) {
-	part, left = -1, len(all)
-	for p := range b.Parts {
-		most := 0
-		for n := range api.MaxBuildTime + 1 {
-			as := slices.DeleteFunc(slices.Clone(all), func(times []int) bool { return times[p] != n })
-			most = max(most, len(as))
-		}
-		if most < left {
-			part, left = p, most
-		}
-	}
-	return part, left
-}
-
-// around returns a span from 0 to top, of wide numbers at most, in which a number is.
-func around(d *dice.Dice, n, wide, top int) api.Span {
-	low := max(0, n-d.Roll(wide))
-	return to(low, min(top, max(n, low+d.Roll(wide))))
+	return oracle.Ask(all, len(b.Parts), func(times []int, part int) int { return times[part] })
 }
 
 // anyPart returns a part, and the time that it really has.
 func anyPart(d *dice.Dice, name string, places int) (api.BuildPart, int) {
 	time := d.Roll(2 + d.Roll(api.MaxBuildTime))
-	p := api.BuildPart{Name: name, Cost: d.Roll(4 + d.Roll(8)), Stock: d.Roll(api.MaxBuildStock + 1), Time: around(d, time, 1+d.Roll(api.MaxBuildWide), api.MaxBuildTime)}
+	p := api.BuildPart{Name: name, Cost: d.Roll(4 + d.Roll(8)), Stock: d.Roll(api.MaxBuildStock + 1), Time: d.Around(time, 1+d.Roll(api.MaxBuildWide), 0, api.MaxBuildTime)}
 	for place := range places {
 		if d.Roll(3) > 0 {
 			p.Fits = append(p.Fits, place)
@@ -301,10 +230,10 @@ func anyBook(d *dice.Dice, lies bool) (api.BuildBook, []int) {
 	}
 	for range d.Roll(api.MaxBuildTrials + 1) {
 		machine := all[d.Roll(len(all))]
-		s := around(d, took(machine, real), 1+d.Roll(4), api.MaxBuildTook)
+		s := d.Around(took(machine, real), 1+d.Roll(4), 0, api.MaxBuildTook)
 		if lies && d.Roll(2) == 0 {
 			// each of several trials can be right, but not all of them
-			s = around(d, max(0, took(machine, real)+d.Roll(5)-2), 1+d.Roll(2), api.MaxBuildTook)
+			s = d.Around(max(0, took(machine, real)+d.Roll(5)-2), 1+d.Roll(2), 0, api.MaxBuildTook)
 		}
 		b.Trials = append(b.Trials, api.BuildTrial{Parts: machine, Took: s})
 	}

@@ -106,15 +106,7 @@ func (b book) checkCount(i int) api.Bell {
 
 // checkCoins returns the bell of coins, of each kind so many at most.
 func (b book) checkCoins(list []int, most int) api.Bell {
-	if len(list) != len(b.Kinds) {
-		return api.Count
-	}
-	for _, n := range list {
-		if !spans.Within(n, 0, most) {
-			return api.Bound
-		}
-	}
-	return api.Fine
+	return checks.Each(list, len(b.Kinds), most)
 }
 
 // checkOrder returns the bell of an order of all sales.

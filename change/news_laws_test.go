@@ -7,6 +7,7 @@ import (
 	"nosale/api"
 	"nosale/change"
 	"nosale/dice"
+	"nosale/oracle"
 )
 
 // noMore tells whether o, in which more is known than in b, makes nothing possible that was not, and takes back nothing that was sure.
@@ -79,7 +80,7 @@ func TestKnowingMore(t *testing.T) {
 		}
 		if len(b.Counts) < api.MaxChangeCounts {
 			k := d.Roll(len(b.Kinds))
-			c := api.ChangeCount{Kind: k, Many: around(&d, real.last[k], 3, api.MaxChangeCount)}
+			c := api.ChangeCount{Kind: k, Many: d.Around(real.last[k], 3, 0, api.MaxChangeCount)}
 			o, l := change.Note(b, c)
 			if l != api.Fine {
 				t.Fatalf("%+v: %v cannot be noted, bell %d", b, c, l)
@@ -113,7 +114,7 @@ func TestClashAlone(t *testing.T) {
 		if n, _ := change.Histories(alone(b, list)); n > 0 {
 			t.Errorf("%+v: %v alone have %d histories", b, list, n)
 		}
-		for _, fewer := range subsets(len(b.Counts)) {
+		for _, fewer := range oracle.Subsets(len(b.Counts)) {
 			if n, _ := change.Histories(alone(b, fewer)); len(fewer) < len(list) && n == 0 {
 				t.Errorf("%+v: %v clash, but so do %v", b, list, fewer)
 			}

@@ -6,6 +6,7 @@ import (
 
 	"nosale/api"
 	"nosale/dice"
+	"nosale/oracle"
 )
 
 // The oracle goes through all coins that can be given, all drawers and all orders, one by one; it calls nothing of the package.
@@ -20,17 +21,11 @@ func (p past) went(sale int) bool { return !slices.Contains(p.refused, sale) }
 
 // listsUpTo returns all lists whose numbers are from 0 to those of most, the least list first.
 func listsUpTo(most []int) [][]int {
-	all := [][]int{nil}
+	var places [][]int
 	for _, m := range most {
-		var longer [][]int
-		for _, list := range all {
-			for n := range m + 1 {
-				longer = append(longer, append(slices.Clone(list), n))
-			}
-		}
-		all = longer
+		places = append(places, oracle.UpTo(0, m))
 	}
-	return all
+	return oracle.Combined(places)
 }
 
 // sum returns the sum of a list.
@@ -197,44 +192,11 @@ func plays(b api.ChangeBook) []past {
 
 // kept returns those that agree with a book.
 func kept(b api.ChangeBook, all []past) []past {
-	var some []past
-	for _, p := range all {
-		if agrees(b, p) {
-			some = append(some, p)
-		}
-	}
-	return some
+	return oracle.Kept(all, func(p past) bool { return agrees(b, p) })
 }
 
 // pasts returns all histories of a book.
 func pasts(b api.ChangeBook) []past { return kept(b, plays(b)) }
-
-// numbersOf returns a number of each history, ascending, each once.
-func numbersOf(all []past, number func(p past) int) []int {
-	var list []int
-	for _, p := range all {
-		list = append(list, number(p))
-	}
-	slices.Sort(list)
-	return slices.Compact(list)
-}
-
-// sureOf returns how sure something is.
-func sureOf(all []past, is func(p past) bool) api.Sure {
-	list := numbersOf(all, func(p past) int {
-		if is(p) {
-			return 1
-		}
-		return 0
-	})
-	switch {
-	case len(list) == 2:
-		return api.Open
-	case list[0] == 1:
-		return api.Yes
-	}
-	return api.No
-}
 
 // bestOf returns the least order that refuses the fewest sales at most, and how many.
 func bestOf(b api.ChangeBook, all []past) (best []int, refused int) {
@@ -270,33 +232,13 @@ func floatOf(b api.ChangeBook, all []past) (more []int, found bool) {
 
 // alone returns a book with some of its counts alone.
 func alone(b api.ChangeBook, counts []int) api.ChangeBook {
-	all := b.Counts
-	b.Counts = nil
-	for _, i := range counts {
-		b.Counts = append(b.Counts, all[i])
-	}
+	b.Counts = oracle.Picked(b.Counts, counts)
 	return b
-}
-
-// subsets returns all lists of indexes below n, the shortest first, then the least one.
-func subsets(n int) [][]int {
-	var all [][]int
-	for _, in := range listsUpTo(slices.Repeat([]int{1}, n)) {
-		var list []int
-		for i := range in {
-			if in[i] == 1 {
-				list = append(list, i)
-			}
-		}
-		all = append(all, list)
-	}
-	slices.SortFunc(all, func(a, b []int) int { return cmp.Or(cmp.Compare(len(a), len(b)), slices.Compare(a, b)) })
-	return all
 }
 
 // clashOf returns the fewest counts that alone have no history.
 func clashOf(b api.ChangeBook, all []past) ([]int, api.Bell) {
-	for _, list := range subsets(len(b.Counts)) {
+	for _, list := range oracle.Subsets(len(b.Counts)) {
 		if len(kept(alone(b, list), all)) == 0 {
 			if len(list) == 0 {
 				return nil, api.Short
@@ -309,18 +251,7 @@ func clashOf(b api.ChangeBook, all []past) ([]int, api.Bell) {
 
 // askOf returns the kind to count, and how many histories are left at most.
 func askOf(b api.ChangeBook, all []past) (kind, left int) {
-	kind, left = -1, len(all)
-	for k := range b.Kinds {
-		most := 0
-		for n := range api.MaxChangeCount + 1 {
-			as := slices.DeleteFunc(slices.Clone(all), func(p past) bool { return p.last[k] != n })
-			most = max(most, len(as))
-		}
-		if most < left {
-			kind, left = k, most
-		}
-	}
-	return kind, left
+	return oracle.Ask(all, len(b.Kinds), func(p past, kind int) int { return p.last[kind] })
 }
 
 // anyKinds returns values of kinds.
@@ -369,18 +300,12 @@ func anySale(d *dice.Dice, kinds []int) api.ChangeSale {
 	return s
 }
 
-// around returns a span from 0 to top in which a number is.
-func around(d *dice.Dice, n, wide, top int) api.Span {
-	low := max(0, n-d.Roll(wide))
-	return to(low, min(top, max(n, low+d.Roll(wide))))
-}
-
 // anyBook returns a book without a bell, and what really happened; if lies is true, what is known can be false.
 func anyBook(d *dice.Dice, lies bool) (api.ChangeBook, past) {
 	b := api.ChangeBook{Kinds: anyKinds(d)}
 	first := anyCoins(d, len(b.Kinds), 1+d.Roll(3))
 	for _, n := range first {
-		b.Drawer = append(b.Drawer, around(d, n, api.MaxChangeWide, api.MaxChangeCoins))
+		b.Drawer = append(b.Drawer, d.Around(n, api.MaxChangeWide, 0, api.MaxChangeCoins))
 	}
 	for range d.Roll(api.MaxChangeSales + 1) {
 		b.Sales = append(b.Sales, anySale(d, b.Kinds))
@@ -398,7 +323,7 @@ func anyBook(d *dice.Dice, lies bool) (api.ChangeBook, past) {
 	for i, c := range b.Counts {
 		if all := drawers(b); d.Roll(2) == 0 {
 			other := played(b, all[d.Roll(len(all))], d.Shuffled(len(b.Sales)))
-			b.Counts[i].Many = around(d, other.last[c.Kind], 1+d.Roll(2), api.MaxChangeCount)
+			b.Counts[i].Many = d.Around(other.last[c.Kind], 1+d.Roll(2), 0, api.MaxChangeCount)
 		}
 	}
 	return b, real
@@ -425,6 +350,6 @@ func learn(d *dice.Dice, b *api.ChangeBook, p past) {
 	}
 	for range d.Roll(api.MaxChangeCounts + 1) {
 		k := d.Roll(len(b.Kinds))
-		b.Counts = append(b.Counts, api.ChangeCount{Kind: k, Many: around(d, p.last[k], 1+d.Roll(6), api.MaxChangeCount)})
+		b.Counts = append(b.Counts, api.ChangeCount{Kind: k, Many: d.Around(p.last[k], 1+d.Roll(6), 0, api.MaxChangeCount)})
 	}
 }

@@ -8,6 +8,7 @@ import (
 	"nosale/api"
 	"nosale/change"
 	"nosale/dice"
+	"nosale/oracle"
 	"nosale/strip"
 	"nosale/tag"
 	"nosale/wheels"
@@ -155,7 +156,7 @@ func TestWheelsTell(t *testing.T) {
 // toldBySum tells how sure it is that a sale went if the prices of all that went have a sum.
 func toldBySum(b api.ChangeBook, total, sale int) api.Sure {
 	var all []past
-	for _, some := range subsets(len(b.Sales)) {
+	for _, some := range oracle.Subsets(len(b.Sales)) {
 		n := 0
 		for _, i := range some {
 			n += b.Sales[i].Price
@@ -164,7 +165,7 @@ func toldBySum(b api.ChangeBook, total, sale int) api.Sure {
 			all = append(all, past{refused: some})
 		}
 	}
-	return sureOf(all, func(p past) bool { return !p.went(sale) })
+	return oracle.Sure(all, func(p past) bool { return !p.went(sale) })
 }
 
 // P0.5: coins that were counted settle a price that the tag leaves open.

@@ -2,9 +2,9 @@ package change
 
 import (
 	"slices"
-	"sync"
 
 	"nosale/api"
+	"nosale/lists"
 )
 
 // drawersOf returns the coins that the drawer has at first in histories, each once.
@@ -38,23 +38,13 @@ orders:
 // floats returns all coins, as many as can be put into the drawer, with which no sale is refused in any history.
 func (c checked) floats(all []history) []coins {
 	tries := slices.Collect(c.handfuls(api.MaxChangeMore))
-	enough := make(chan coins, len(tries))
-	var wait sync.WaitGroup
-	for _, more := range tries {
-		wait.Add(1)
-		go func() {
-			defer wait.Done()
-			// The change that is known is written to: each goroutine has its own.
-			if newChecked(c.book).isEnough(more, all) {
-				enough <- more
-			}
-		}()
-	}
-	wait.Wait()
-	close(enough)
+	enough := lists.Those(len(tries), func(i int) bool {
+		// The change that is known is written to: each goroutine has its own.
+		return newChecked(c.book).isEnough(tries[i], all)
+	})
 	var floats []coins
-	for more := range enough {
-		floats = append(floats, more)
+	for _, i := range enough {
+		floats = append(floats, tries[i])
 	}
 	return floats
 }

@@ -9,6 +9,7 @@ import (
 	"nosale/api"
 	"nosale/change"
 	"nosale/dice"
+	"nosale/oracle"
 )
 
 // P4.2: Play returns what is refused, and what is left; IsHistory whether that can be.
@@ -177,17 +178,17 @@ func toldLikeOracle(t *testing.T, b api.ChangeBook, all []past) int {
 	t.Helper()
 	open := 0
 	for k := range b.Kinds {
-		want := numbersOf(all, func(p past) int { return p.first[k] })
+		want := oracle.Numbers(all, func(p past) int { return p.first[k] })
 		if v, l := change.Had(b, k); !slices.Equal(v, want) || l != api.Fine {
 			t.Errorf("%+v: Had %d: %v, bell %d, want %v", b, k, v, l, want)
 		}
-		want = numbersOf(all, func(p past) int { return p.last[k] })
+		want = oracle.Numbers(all, func(p past) int { return p.last[k] })
 		if v, l := change.Left(b, k); !slices.Equal(v, want) || l != api.Fine {
 			t.Errorf("%+v: Left %d: %v, bell %d, want %v", b, k, v, l, want)
 		}
 	}
 	for i := range b.Sales {
-		want := sureOf(all, func(p past) bool { return p.went(i) })
+		want := oracle.Sure(all, func(p past) bool { return p.went(i) })
 		if v, l := change.Goes(b, i); v != want || l != api.Fine {
 			t.Errorf("%+v: Goes %d: %d, bell %d, want %d", b, i, v, l, want)
 		}
@@ -195,7 +196,7 @@ func toldLikeOracle(t *testing.T, b api.ChangeBook, all []past) int {
 			open++
 		}
 	}
-	want := sureOf(all, func(p past) bool { return len(p.refused) > 0 })
+	want := oracle.Sure(all, func(p past) bool { return len(p.refused) > 0 })
 	if v, l := change.Runs(b); v != want || l != api.Fine {
 		t.Errorf("%+v: Runs: %d, bell %d, want %d", b, v, l, want)
 	}

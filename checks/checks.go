@@ -38,6 +38,19 @@ func InTurn(all ...func() api.Bell) api.Bell {
 	return api.Fine
 }
 
+// Each returns the first bell of a list of numbers, one for each of so many things, from 0 to top.
+func Each(list []int, things, top int) api.Bell {
+	if len(list) != things {
+		return api.Count
+	}
+	for _, n := range list {
+		if !spans.Within(n, 0, top) {
+			return api.Bound
+		}
+	}
+	return api.Fine
+}
+
 // Rising returns the first bell of a list of indexes of so many things, each of which is to be above the one before it.
 func Rising(list []int, things int) api.Bell {
 	for i, n := range list {

@@ -71,6 +71,23 @@ func TestInTurn(t *testing.T) {
 	}
 }
 
+// R1: how many numbers there are comes before their bounds; a limit itself is allowed.
+func TestEach(t *testing.T) {
+	for _, x := range []struct {
+		list        []int
+		things, top int
+		want        api.Bell
+	}{
+		{nil, 0, 9, api.Fine}, {[]int{0, 9, 5}, 3, 9, api.Fine}, {[]int{0}, 1, 0, api.Fine},
+		{nil, 1, 9, api.Count}, {[]int{1}, 0, 9, api.Count}, {[]int{1, 2}, 3, 9, api.Count}, {[]int{10, -1}, 3, 9, api.Count}, {make([]int, 1000000), 3, 9, api.Count},
+		{[]int{10}, 1, 9, api.Bound}, {[]int{0, -1}, 2, 9, api.Bound}, {[]int{math.MaxInt}, 1, 9, api.Bound}, {[]int{math.MinInt}, 1, 9, api.Bound},
+	} {
+		if l := Each(x.list, x.things, x.top); l != x.want {
+			t.Errorf("%.40v, %d, to %d: bell %d, want %d", x.list, x.things, x.top, l, x.want)
+		}
+	}
+}
+
 // R1: number by number, one that is no index comes before one that is not above the one before it.
 func TestRising(t *testing.T) {
 	for _, x := range []struct {

@@ -1,7 +1,11 @@
-// Package dice yields numbers that look like any ones, and are the same each time: the tests of the layers make their books of them.
+// Package dice yields numbers and spans that look like any ones, and are the same each time: the tests of the layers make their books of them.
 package dice
 
-import "slices"
+import (
+	"slices"
+
+	"nosale/api"
+)
 
 // Dice is where the numbers begin, and how far they got.
 type Dice uint64
@@ -19,4 +23,10 @@ func (d *Dice) Shuffled(n int) []int {
 		list = slices.Insert(list, d.Roll(i+1), i)
 	}
 	return list
+}
+
+// Around returns a span from low to high, of so many numbers at most, in which a number is.
+func (d *Dice) Around(n, wide, low, high int) api.Span {
+	from := max(low, n-d.Roll(wide))
+	return api.Span{Low: from, High: min(high, max(n, from+d.Roll(wide)))}
 }

@@ -3,6 +3,8 @@ package dice
 import (
 	"slices"
 	"testing"
+
+	"nosale/api"
 )
 
 func TestRoll(t *testing.T) {
@@ -36,5 +38,22 @@ func TestShuffled(t *testing.T) {
 	}
 	if len(first) != 4 || len(d.Shuffled(0)) != 0 {
 		t.Errorf("first came %v", first)
+	}
+}
+
+func TestAround(t *testing.T) {
+	d, seen := Dice(3), map[api.Span]int{}
+	for range 200 {
+		s := d.Around(5, 3, 4, 6)
+		if s.Low < 4 || s.Low > 5 || s.High < 5 || s.High > 6 {
+			t.Fatal(s)
+		}
+		if s := d.Around(50, 4, 0, 99); s.Low > 50 || s.High < 50 || s.High-s.Low > 3 {
+			t.Fatal(s)
+		}
+		seen[s]++
+	}
+	if len(seen) != 4 || d.Around(7, 1, 0, 9) != (api.Span{Low: 7, High: 7}) {
+		t.Errorf("%v", seen)
 	}
 }

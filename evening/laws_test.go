@@ -9,6 +9,7 @@ import (
 	"nosale/api"
 	"nosale/dice"
 	"nosale/evening"
+	"nosale/oracle"
 )
 
 // P0.1: each function returns, whatever it is called with, and returns the same to several goroutines; it changes nothing.
@@ -241,7 +242,7 @@ func TestNoOthers(t *testing.T) {
 	for i := range 300 {
 		b, _ := anyBook(&d, i%2 == 0)
 		// what Agrees tells to be a history
-		all := kept(plays(b), func(p past) bool { is, _ := evening.Agrees(b, p.takings, p.slips); return is })
+		all := oracle.Kept(plays(b), func(p past) bool { is, _ := evening.Agrees(b, p.takings, p.slips); return is })
 		if n, _ := evening.Histories(b); n != len(all) {
 			t.Errorf("%+v: %d histories, but %d agree", b, n, len(all))
 		}
@@ -250,13 +251,13 @@ func TestNoOthers(t *testing.T) {
 		}
 		reached := func(name string, i int, sure api.Sure, is func(p past) bool) {
 			t.Helper()
-			if sure != sureOf(all, is) {
+			if sure != oracle.Sure(all, is) {
 				t.Errorf("%+v: %s %d is %d", b, name, i, sure)
 			}
 		}
 		ends := func(name string, i int, s api.Span, number func(p past) int) {
 			t.Helper()
-			if s != spanOf(all, number) {
+			if s != oracle.Span(all, number) {
 				t.Errorf("%+v: %s %d is %v", b, name, i, s)
 			}
 		}
@@ -345,7 +346,7 @@ func TestFewestHands(t *testing.T) {
 			t.Errorf("%+v: Fewest is %v, but no history has these takings", b, fewest)
 		}
 		// with the duties of some clerks alone there is a history just if they can have done it
-		for _, clerks := range subsets(len(b.Clerks)) {
+		for _, clerks := range oracle.Subsets(len(b.Clerks)) {
 			o := clone(b)
 			for i, h := range o.Hours {
 				o.Hours[i].Staff = slices.DeleteFunc(h.Staff, func(clerk int) bool { return !slices.Contains(clerks, clerk) })

@@ -9,6 +9,7 @@ import (
 	"nosale/api"
 	"nosale/dice"
 	"nosale/evening"
+	"nosale/oracle"
 )
 
 // P7.1: Gap tells by how much a count is short, if nothing slipped and nothing was taken, whatever is known besides.
@@ -149,25 +150,25 @@ func likeThings(t *testing.T, b api.EveningBook, all []past) {
 	for i := range b.Clerks {
 		sure, l := evening.Took(b, i)
 		sums, l2 := evening.Sums(b, i)
-		if want := sureOf(all, func(p past) bool { return p.ofClerk(i) > 0 }); sure != want || l != api.Fine {
+		if want := oracle.Sure(all, func(p past) bool { return p.ofClerk(i) > 0 }); sure != want || l != api.Fine {
 			t.Errorf("%+v: Took %d is %d, bell %d, want %d", b, i, sure, l, want)
 		}
-		if want := spanOf(all, func(p past) int { return p.ofClerk(i) }); sums != want || l2 != api.Fine {
+		if want := oracle.Span(all, func(p past) int { return p.ofClerk(i) }); sums != want || l2 != api.Fine {
 			t.Errorf("%+v: Sums %d is %v, bell %d, want %v", b, i, sums, l2, want)
 		}
 	}
 	for i := range b.Hours {
-		if sure, l := evening.Hour(b, i); sure != sureOf(all, func(p past) bool { return p.ofHour(i) > 0 }) || l != api.Fine {
+		if sure, l := evening.Hour(b, i); sure != oracle.Sure(all, func(p past) bool { return p.ofHour(i) > 0 }) || l != api.Fine {
 			t.Errorf("%+v: Hour %d is %d, bell %d", b, i, sure, l)
 		}
 	}
 	for i := range b.Wheels {
 		is := func(p past) bool { return slices.Contains(p.slips, i) }
-		if sure, l := evening.Slipped(b, i); sure != sureOf(all, is) || l != api.Fine {
+		if sure, l := evening.Slipped(b, i); sure != oracle.Sure(all, is) || l != api.Fine {
 			t.Errorf("%+v: Slipped %d is %d, bell %d", b, i, sure, l)
 		}
 	}
-	if s, l := evening.Loss(b); s != spanOf(all, past.loss) || l != api.Fine {
+	if s, l := evening.Loss(b); s != oracle.Span(all, past.loss) || l != api.Fine {
 		t.Errorf("%+v: Loss is %v, bell %d", b, s, l)
 	}
 	if list, l := evening.Fewest(b); show(list) != show(fewestOf(all)) || l != api.Fine {

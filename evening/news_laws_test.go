@@ -7,6 +7,7 @@ import (
 	"nosale/api"
 	"nosale/dice"
 	"nosale/evening"
+	"nosale/oracle"
 )
 
 // within tells whether a span has no numbers but those of another one.
@@ -103,7 +104,7 @@ func TestClearAndMendNarrow(t *testing.T) {
 		}
 		for _, duty := range duties(b) {
 			o, l := evening.Clear(b, duty.Hour, duty.Clerk)
-			left := kept(all, func(p past) bool { return p.ofDuty(duty.Hour, duty.Clerk) == 0 })
+			left := oracle.Kept(all, func(p past) bool { return p.ofDuty(duty.Hour, duty.Clerk) == 0 })
 			news(t, "cleared", b, o, l, left, itself)
 		}
 		for slip := range b.Wheels {
@@ -118,7 +119,7 @@ func TestClearAndMendNarrow(t *testing.T) {
 				return i - 1
 			}
 			var left []past
-			for _, p := range kept(all, func(p past) bool { return !slices.Contains(p.slips, slip) }) {
+			for _, p := range oracle.Kept(all, func(p past) bool { return !slices.Contains(p.slips, slip) }) {
 				moved := past{takings: p.takings}
 				for _, i := range p.slips {
 					moved.slips = append(moved.slips, same(i))
@@ -137,7 +138,7 @@ func TestCountNarrows(t *testing.T) {
 	for i := range 300 {
 		b, _, behind := anyEvening(&d)
 		for hour, money := range behind {
-			c := api.EveningCount{After: hour, Money: around(&d, money, 1+i%3)}
+			c := api.EveningCount{After: hour, Money: d.Around(money, 1+i%3, 0, api.MaxEveningMoney)}
 			if d.Roll(4) == 0 {
 				c.Money = to(c.Money.Low+2, c.Money.High+2)
 			}
@@ -204,7 +205,7 @@ func TestClashAlone(t *testing.T) {
 		if len(list) > 1 {
 			long++
 		}
-		for _, counts := range subsets(len(b.Counts)) {
+		for _, counts := range oracle.Subsets(len(b.Counts)) {
 			n, l := evening.Histories(alone(b, counts))
 			is := slices.Equal(counts, list)
 			if is && n != 0 || !is && n == 0 || l != api.Fine {

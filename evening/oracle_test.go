@@ -1,11 +1,11 @@
 package evening_test
 
 import (
-	"cmp"
 	"slices"
 
 	"nosale/api"
 	"nosale/dice"
+	"nosale/oracle"
 )
 
 // The oracle goes through all that can have been taken, all that can have slipped, and all the money that there can have been, number by number; it calls nothing of the package.
@@ -63,21 +63,6 @@ func duties(b api.EveningBook) []api.EveningTaking {
 	return list
 }
 
-// chosen returns all lists of some things, so many at most, in their order.
-func chosen[E any](things []E, most int) [][]E {
-	if len(things) == 0 {
-		return [][]E{nil}
-	}
-	rest := chosen(things[1:], most)
-	if most == 0 {
-		return rest
-	}
-	for _, list := range chosen(things[1:], most-1) {
-		rest = append(rest, append([]E{things[0]}, list...))
-	}
-	return rest
-}
-
 // amounts returns the takings at some duties, with all amounts.
 func amounts(list []api.EveningTaking, take int) [][]api.EveningTaking {
 	all := [][]api.EveningTaking{nil}
@@ -93,21 +78,12 @@ func amounts(list []api.EveningTaking, take int) [][]api.EveningTaking {
 	return all
 }
 
-// indexes returns the indexes of so many things.
-func indexes(n int) []int {
-	var list []int
-	for i := range n {
-		list = append(list, i)
-	}
-	return list
-}
-
 // plays returns all that can have happened, whatever was counted.
 func plays(b api.EveningBook) []past {
 	var all []past
-	for _, list := range chosen(duties(b), b.Most) {
+	for _, list := range oracle.Chosen(duties(b), b.Most) {
 		for _, taken := range amounts(list, b.Take) {
-			for _, slips := range chosen(indexes(len(b.Wheels)), b.Slips) {
+			for _, slips := range oracle.Chosen(oracle.Indexes(len(b.Wheels)), b.Slips) {
 				all = append(all, past{taken, slips})
 			}
 		}
@@ -140,41 +116,9 @@ func agrees(b api.EveningBook, p past) bool {
 	return len(can) > 0
 }
 
-// kept returns those for which something is so.
-func kept(all []past, is func(p past) bool) []past {
-	var some []past
-	for _, p := range all {
-		if is(p) {
-			some = append(some, p)
-		}
-	}
-	return some
-}
-
 // pasts returns all histories of a book.
 func pasts(b api.EveningBook) []past {
-	return kept(plays(b), func(p past) bool { return agrees(b, p) })
-}
-
-// sureOf returns how sure something is.
-func sureOf(all []past, is func(p past) bool) api.Sure {
-	so := len(kept(all, is))
-	switch {
-	case so == 0:
-		return api.No
-	case so == len(all):
-		return api.Yes
-	}
-	return api.Open
-}
-
-// spanOf returns the span from the least to the most of a number.
-func spanOf(all []past, number func(p past) int) api.Span {
-	var list []int
-	for _, p := range all {
-		list = append(list, number(p))
-	}
-	return to(slices.Min(list), slices.Max(list))
+	return oracle.Kept(plays(b), func(p past) bool { return agrees(b, p) })
 }
 
 // fewestOf returns the fewest takings, of several those with the least money, of several of these the least list.
@@ -192,16 +136,9 @@ func fewestOf(all []past) []api.EveningTaking {
 	return least.takings
 }
 
-// subsets returns all lists of indexes below n, the shortest first, then the least one.
-func subsets(n int) [][]int {
-	all := chosen(indexes(n), n)
-	slices.SortFunc(all, func(a, b []int) int { return cmp.Or(cmp.Compare(len(a), len(b)), slices.Compare(a, b)) })
-	return all
-}
-
 // handsOf returns the fewest clerks who can have done it alone.
 func handsOf(b api.EveningBook, all []past) []int {
-	for _, clerks := range subsets(len(b.Clerks)) {
+	for _, clerks := range oracle.Subsets(len(b.Clerks)) {
 		for _, p := range all {
 			if !slices.ContainsFunc(p.takings, func(t api.EveningTaking) bool { return !slices.Contains(clerks, t.Clerk) }) {
 				return clerks
@@ -214,16 +151,13 @@ func handsOf(b api.EveningBook, all []past) []int {
 // alone returns a book with some of its counts alone.
 func alone(b api.EveningBook, counts []int) api.EveningBook {
 	o := clone(b)
-	o.Counts = nil
-	for _, i := range counts {
-		o.Counts = append(o.Counts, b.Counts[i])
-	}
+	o.Counts = oracle.Picked(b.Counts, counts)
 	return o
 }
 
 // clashOf returns the fewest counts that alone have no history.
 func clashOf(b api.EveningBook) []int {
-	for _, counts := range subsets(len(b.Counts)) {
+	for _, counts := range oracle.Subsets(len(b.Counts)) {
 		if len(pasts(alone(b, counts))) == 0 {
 			return counts
 		}
@@ -233,11 +167,7 @@ func clashOf(b api.EveningBook) []int {
 
 // leftOf returns how many histories are left at most once it is known how much was taken at a duty.
 func leftOf(b api.EveningBook, all []past, duty api.EveningTaking) int {
-	most := 0
-	for n := range b.Take + 1 {
-		most = max(most, len(kept(all, func(p past) bool { return p.ofDuty(duty.Hour, duty.Clerk) == n })))
-	}
-	return most
+	return oracle.Left(all, func(p past) int { return p.ofDuty(duty.Hour, duty.Clerk) })
 }
 
 // askOf returns the duty to ask about, and how many histories are left at most.
@@ -249,12 +179,6 @@ func askOf(b api.EveningBook, all []past) (hour, clerk, left int) {
 		}
 	}
 	return hour, clerk, left
-}
-
-// around returns a span from 0 to MaxEveningMoney in which a number is, with so many numbers at most.
-func around(d *dice.Dice, n, wide int) api.Span {
-	low := max(0, n-d.Roll(wide))
-	return to(low, min(api.MaxEveningMoney, low+wide-1, n+d.Roll(wide)))
 }
 
 // anyStaff returns some hours, of which it is not yet known what was said.
@@ -305,11 +229,11 @@ func anyEvening(d *dice.Dice) (api.EveningBook, past, []int) {
 	p := anyPast(d, b)
 	wide := 1 + d.Roll(3)
 	money := 40 + d.Roll(60)
-	b.Float = around(d, money, wide)
+	b.Float = d.Around(money, wide, 0, api.MaxEveningMoney)
 	var behind []int
 	for hour := range b.Hours {
 		said := d.Roll(30)
-		b.Hours[hour].Said = around(d, said, wide)
+		b.Hours[hour].Said = d.Around(said, wide, 0, api.MaxEveningMoney)
 		money += said - p.lost(b, hour)
 		behind = append(behind, money)
 	}
@@ -327,7 +251,7 @@ func anyBook(d *dice.Dice, lies bool) (api.EveningBook, past) {
 		if lies && d.Roll(3) == 0 {
 			money = max(0, money-3+d.Roll(7))
 		}
-		b.Counts = append(b.Counts, api.EveningCount{After: hour, Money: around(d, money, wide)})
+		b.Counts = append(b.Counts, api.EveningCount{After: hour, Money: d.Around(money, wide, 0, api.MaxEveningMoney)})
 	}
 	return b, p
 }

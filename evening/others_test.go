@@ -10,6 +10,7 @@ import (
 	"nosale/change"
 	"nosale/dice"
 	"nosale/evening"
+	"nosale/oracle"
 	"nosale/sales"
 	"nosale/strip"
 	"nosale/tag"
@@ -157,7 +158,7 @@ func TestWheelsTell(t *testing.T) {
 				x.b = o
 			}
 		}
-		x.real.slips = indexes(len(x.b.Wheels))
+		x.real.slips = oracle.Indexes(len(x.b.Wheels))
 		holds(t, x.b, x.real)
 		if is, _ := evening.Histories(x.b); is < was {
 			found++

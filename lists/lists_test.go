@@ -41,6 +41,32 @@ func TestLeast(t *testing.T) {
 	}
 }
 
+func TestLeastOf(t *testing.T) {
+	for _, x := range []struct {
+		sets  []int
+		want  []int
+		found bool
+	}{{nil, nil, false}, {[]int{0}, nil, true}, {[]int{0b1000, 0}, nil, true}, {[]int{0b0111, 0b1000}, []int{3}, true}, {[]int{0b1010, 0b1001, 0b0110}, []int{0, 3}, true}} {
+		if got, found := LeastOf(x.sets...); !slices.Equal(got, x.want) || found != x.found {
+			t.Errorf("%b: %v, %v, want %v", x.sets, got, found, x.want)
+		}
+	}
+}
+
+// Those that are looked at side by side are told in their order, each once.
+func TestThose(t *testing.T) {
+	for n, want := range [][]int{nil, nil, nil, nil, {3}, {3}, {3}, {3}, {3, 7}} {
+		if got := Those(n, func(i int) bool { return i%4 == 3 }); !slices.Equal(got, want) {
+			t.Errorf("%d: %v, want %v", n, got, want)
+		}
+	}
+	for range 50 {
+		if got := Those(200, func(i int) bool { return true }); len(got) != 200 || !slices.IsSorted(got) || got[0] != 0 || got[199] != 199 {
+			t.Errorf("%v", got)
+		}
+	}
+}
+
 func TestLeastSet(t *testing.T) {
 	for i, x := range []struct {
 		n     int

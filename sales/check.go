@@ -101,13 +101,8 @@ func (b book) checkSums() api.Bell {
 
 // checkWritten returns the bell of what was written on each slip, and of whether each fix is signed.
 func (b book) checkWritten(numbers []int, signed []bool) api.Bell {
-	if len(numbers) != len(b.Slips) {
-		return api.Count
-	}
-	for _, n := range numbers {
-		if !spans.Within(n, 0, api.MaxSalesAmount) {
-			return api.Bound
-		}
+	if l := checks.Each(numbers, len(b.Slips), api.MaxSalesAmount); l != api.Fine {
+		return l
 	}
 	if len(signed) != len(b.fixes()) {
 		return api.Count

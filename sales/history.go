@@ -227,7 +227,7 @@ func (c checked) isHistory(w written) bool {
 // fewest returns the fewest sums that are all that is false in something that can have been written, none of them firm, and of several such lists the least one, if there is any.
 func (c checked) fewest() (sums []int, found bool) {
 	firm := c.firm()
-	var all [][]int
+	var all []int
 sets:
 	for set := range 1 << len(c.Sums) {
 		if set&firm != 0 {
@@ -235,12 +235,12 @@ sets:
 		}
 		for w := range c.now {
 			if c.wrong[w] == set {
-				all = append(all, lists.OfSet(set))
+				all = append(all, set)
 				continue sets
 			}
 		}
 	}
-	return lists.Least(lists.Compare, all...)
+	return lists.LeastOf(all...)
 }
 
 // copyBook returns a book that shares no memory with b.

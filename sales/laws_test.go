@@ -8,6 +8,7 @@ import (
 
 	"nosale/api"
 	"nosale/dice"
+	"nosale/oracle"
 	"nosale/sales"
 )
 
@@ -183,7 +184,7 @@ func TestWhatReallyHappened(t *testing.T) {
 // told is what Play tells of all that is a history by IsHistory.
 func told(t *testing.T, b api.SalesBook) []past {
 	t.Helper()
-	return kept(plays(b), func(p past) bool {
+	return oracle.Kept(plays(b), func(p past) bool {
 		is, l := sales.IsHistory(b, p.numbers, p.of(b))
 		now, wrong, l2 := sales.Play(b, p.numbers, p.of(b))
 		if l+l2 != api.Fine || show(now, wrong) != show(p.now, p.wrong) {
@@ -217,7 +218,7 @@ func TestReached(t *testing.T) {
 		}
 		for i, s := range b.Slips {
 			list, _ := sales.Amounts(b, i)
-			if want := numbersOf(all, func(p past) int { return p.now[i] }); !slices.Equal(list, want) {
+			if want := oracle.Numbers(all, func(p past) int { return p.now[i] }); !slices.Equal(list, want) {
 				t.Errorf("%+v: Amounts %d is %v, not %v", b, i, list, want)
 			}
 			if s.Kind == api.SalesFix && s.Signed == api.Open {
@@ -245,7 +246,7 @@ func TestReached(t *testing.T) {
 			if l != bell(sure != api.Yes) || s.Firm && sure != api.No {
 				t.Errorf("%+v: False %d is %d, but it is trusted with bell %d", b, i, sure, l)
 			}
-			if some := len(kept(all, func(p past) bool { return slices.Contains(p.wrong, i) })); (some > 0) != (sure != api.No) {
+			if some := len(oracle.Kept(all, func(p past) bool { return slices.Contains(p.wrong, i) })); (some > 0) != (sure != api.No) {
 				t.Errorf("%+v: False %d is %d, but it is so in %d histories", b, i, sure, some)
 			}
 		}

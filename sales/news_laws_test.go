@@ -6,6 +6,7 @@ import (
 
 	"nosale/api"
 	"nosale/dice"
+	"nosale/oracle"
 	"nosale/sales"
 )
 
@@ -154,12 +155,12 @@ func TestNewsNarrow(t *testing.T) {
 			real = all[d.Roll(len(all))]
 		}
 		for i, s := range b.Slips {
-			x := around(&d, real.numbers[i], 3, 0, api.MaxSalesAmount)
+			x := d.Around(real.numbers[i], 3, 0, api.MaxSalesAmount)
 			o, l := sales.Tell(b, i, x)
 			if l != api.Fine {
 				t.Fatalf("%+v: %v cannot be told of %d, bell %d", b, x, i, l)
 			}
-			sameAs(t, "Tell", o, kept(all, func(p past) bool { return p.numbers[i] >= x.Low && p.numbers[i] <= x.High }))
+			sameAs(t, "Tell", o, oracle.Kept(all, func(p past) bool { return p.numbers[i] >= x.Low && p.numbers[i] <= x.High }))
 			noMore(t, b, o)
 			if s.Kind != api.SalesFix || s.Signed != api.Open {
 				continue
@@ -168,7 +169,7 @@ func TestNewsNarrow(t *testing.T) {
 			if l != api.Fine {
 				t.Fatalf("%+v: %d cannot be signed, bell %d", b, i, l)
 			}
-			sameAs(t, "Sign", o, kept(all, func(p past) bool { return p.signed[i] == real.signed[i] }))
+			sameAs(t, "Sign", o, oracle.Kept(all, func(p past) bool { return p.signed[i] == real.signed[i] }))
 			noMore(t, b, o)
 		}
 		if len(b.Sums) == api.MaxSalesSums {
@@ -180,7 +181,7 @@ func TestNewsNarrow(t *testing.T) {
 		if l != api.Fine {
 			t.Fatalf("%+v: %v cannot be noted, bell %d", b, s, l)
 		}
-		sameAs(t, "Note", o, kept(all, func(p past) bool {
+		sameAs(t, "Note", o, oracle.Kept(all, func(p past) bool {
 			n := sumOf(b, s.Kind, s.A, p.now)
 			is := n < s.Many.Low || n > s.Many.High
 			return !is || !s.Firm && len(p.wrong) < b.Most
@@ -200,7 +201,7 @@ func TestCorrectNarrows(t *testing.T) {
 			continue
 		}
 		f := fix(list[d.Roll(len(list))], 0, 0, api.No)
-		f.Amount = around(&d, d.Roll(20), 3, 0, 999)
+		f.Amount = d.Around(d.Roll(20), 3, 0, 999)
 		f.Amount.High = min(f.Amount.High, f.Amount.Low+2)
 		o, l := sales.Correct(b, f)
 		before, _ := sales.Histories(b)

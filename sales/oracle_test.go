@@ -6,6 +6,7 @@ import (
 
 	"nosale/api"
 	"nosale/dice"
+	"nosale/oracle"
 )
 
 // The oracle goes through all that can have been written, one by one; it calls nothing of the package.
@@ -130,21 +131,6 @@ func agrees(b api.SalesBook, p past) bool {
 	return isThere(b, p) && len(p.wrong) <= b.Most && !isFirm(b, p)
 }
 
-// combined returns all lists that have one of some elements at each place.
-func combined[E any](places [][]E) [][]E {
-	all := [][]E{nil}
-	for _, some := range places {
-		var longer [][]E
-		for _, list := range all {
-			for _, e := range some {
-				longer = append(longer, append(slices.Clone(list), e))
-			}
-		}
-		all = longer
-	}
-	return all
-}
-
 // plays returns all that can have been written, of the numbers on the slips, whether what is known of it is so or not.
 func plays(b api.SalesBook) []past {
 	var amounts [][]int
@@ -162,56 +148,22 @@ func plays(b api.SalesBook) []past {
 		}
 	}
 	var all []past
-	for _, signed := range combined(signs) {
-		for _, numbers := range combined(amounts) {
+	for _, signed := range oracle.Combined(signs) {
+		for _, numbers := range oracle.Combined(amounts) {
 			all = append(all, played(b, numbers, signed))
 		}
 	}
 	return all
 }
 
-// kept returns those for which something is so.
-func kept(all []past, is func(p past) bool) []past {
-	var some []past
-	for _, p := range all {
-		if is(p) {
-			some = append(some, p)
-		}
-	}
-	return some
-}
-
 // pasts returns all histories of a book.
 func pasts(b api.SalesBook) []past {
-	return kept(plays(b), func(p past) bool { return agrees(b, p) })
-}
-
-// numbersOf returns a number of each history, ascending, each once.
-func numbersOf(all []past, number func(p past) int) []int {
-	var list []int
-	for _, p := range all {
-		list = append(list, number(p))
-	}
-	slices.Sort(list)
-	return slices.Compact(list)
-}
-
-// sureOf returns how sure something is.
-func sureOf(all []past, is func(p past) bool) api.Sure {
-	so := len(kept(all, is))
-	switch {
-	case so == 0:
-		return api.No
-	case so == len(all):
-		return api.Yes
-	}
-	return api.Open
+	return oracle.Kept(plays(b), func(p past) bool { return agrees(b, p) })
 }
 
 // spanOf returns the span of what something amounts to.
 func spanOf(b api.SalesBook, all []past, kind api.SalesSumKind, a int) api.Span {
-	list := numbersOf(all, func(p past) int { return sumOf(b, kind, a, p.now) })
-	return to(list[0], list[len(list)-1])
+	return oracle.Span(all, func(p past) int { return sumOf(b, kind, a, p.now) })
 }
 
 // fewestOf returns the fewest sums that are false in anything that can have been written, and whether there is such a list.
@@ -228,17 +180,7 @@ func fewestOf(b api.SalesBook) (sums []int, found bool) {
 
 // askOf returns the slip to ask about, and how many histories are left at most.
 func askOf(b api.SalesBook, all []past) (slip, left int) {
-	slip, left = -1, len(all)
-	for i := range b.Slips {
-		most := 0
-		for _, n := range numbersOf(all, func(p past) int { return p.now[i] }) {
-			most = max(most, len(kept(all, func(p past) bool { return p.now[i] == n })))
-		}
-		if most < left {
-			slip, left = i, most
-		}
-	}
-	return slip, left
+	return oracle.Ask(all, len(b.Slips), func(p past, slip int) int { return p.now[slip] })
 }
 
 // things returns the kinds and the A of all sums.
@@ -250,12 +192,6 @@ func things() []api.SalesSum {
 		}
 	}
 	return list
-}
-
-// around returns a span from low to high in which a number is.
-func around(d *dice.Dice, n, wide, low, high int) api.Span {
-	from := max(low, n-d.Roll(wide))
-	return to(from, min(high, max(n, from+d.Roll(wide))))
 }
 
 // earlier returns the earlier slips of which something is so.
@@ -297,10 +233,7 @@ func anySlip(d *dice.Dice, b api.SalesBook, top int) (api.SalesSlip, int) {
 	if s.Kind == api.SalesBack {
 		n = d.Roll(n + 1)
 	}
-	s.Amount = around(d, n, api.MaxSalesWide, 0, api.MaxSalesAmount)
-	if s.Amount.High-s.Amount.Low >= api.MaxSalesWide {
-		s.Amount.High = s.Amount.Low + api.MaxSalesWide - 1
-	}
+	s.Amount = d.Around(n, api.MaxSalesWide, 0, api.MaxSalesAmount)
 	return s, n
 }
 
@@ -330,7 +263,7 @@ func anySum(d *dice.Dice, b api.SalesBook, p past, wide int) api.SalesSum {
 		of := b.Slips[d.Roll(len(b.Slips))]
 		s = []api.SalesSum{sum(api.SalesDept, of.Dept, 0, 0), sum(api.SalesClerk, of.Clerk, 0, 0)}[d.Roll(2)]
 	}
-	s.Many = around(d, sumOf(b, s.Kind, s.A, p.now), wide, -api.MaxSalesSum, api.MaxSalesSum)
+	s.Many = d.Around(sumOf(b, s.Kind, s.A, p.now), wide, -api.MaxSalesSum, api.MaxSalesSum)
 	return s
 }
 

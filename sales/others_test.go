@@ -60,8 +60,8 @@ func (day soldDay) slips(d *dice.Dice) (api.SalesBook, []int) {
 	for _, s := range day.sold {
 		a := day.articles[s.Article]
 		numbers = append(numbers, a.Price)
-		x := around(d, a.Price, api.MaxSalesWide, 0, api.MaxSalesAmount)
-		b.Slips = append(b.Slips, slip(api.SalesSold, a.Dept, s.Clerk, x.Low, min(x.High, x.Low+api.MaxSalesWide-1)))
+		x := d.Around(a.Price, api.MaxSalesWide, 0, api.MaxSalesAmount)
+		b.Slips = append(b.Slips, slip(api.SalesSold, a.Dept, s.Clerk, x.Low, x.High))
 	}
 	return b, numbers
 }

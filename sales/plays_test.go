@@ -8,6 +8,7 @@ import (
 
 	"nosale/api"
 	"nosale/dice"
+	"nosale/oracle"
 	"nosale/sales"
 )
 
@@ -170,14 +171,14 @@ func toldLikeOracle(t *testing.T, b api.SalesBook, all []past) int {
 	t.Helper()
 	open := 0
 	for i, s := range b.Slips {
-		want := numbersOf(all, func(p past) int { return p.now[i] })
+		want := oracle.Numbers(all, func(p past) int { return p.now[i] })
 		if v, l := sales.Amounts(b, i); !slices.Equal(v, want) || l != api.Fine {
 			t.Errorf("%+v: Amounts %d: %v, bell %d, want %v", b, i, v, l, want)
 		}
 		if s.Kind != api.SalesFix {
 			continue
 		}
-		sure := sureOf(all, func(p past) bool { return p.signed[i] })
+		sure := oracle.Sure(all, func(p past) bool { return p.signed[i] })
 		if v, l := sales.Signed(b, i); v != sure || l != api.Fine {
 			t.Errorf("%+v: Signed %d: %d, bell %d, want %d", b, i, v, l, sure)
 		}

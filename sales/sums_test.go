@@ -8,6 +8,7 @@ import (
 
 	"nosale/api"
 	"nosale/dice"
+	"nosale/oracle"
 	"nosale/sales"
 )
 
@@ -141,7 +142,7 @@ func TestSumsLikeOracle(t *testing.T) {
 			}
 		}
 		for i := range b.Sums {
-			want := sureOf(all, func(p past) bool { return slices.Contains(p.wrong, i) })
+			want := oracle.Sure(all, func(p past) bool { return slices.Contains(p.wrong, i) })
 			if v, l := sales.False(b, i); v != want || l != api.Fine {
 				t.Errorf("%+v: False %d: %d, bell %d, want %d", b, i, v, l, want)
 			}

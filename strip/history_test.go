@@ -6,6 +6,7 @@ import (
 
 	"nosale/api"
 	"nosale/dice"
+	"nosale/oracle"
 	"nosale/strip"
 )
 
@@ -266,7 +267,7 @@ func itemsAgainstOracle(t *testing.T, b api.StripBook, all []past) {
 	t.Helper()
 	check := func(name string, item int, got []int, l api.Bell, number func(p past) int) {
 		t.Helper()
-		if want := eachOnce(all, number); !slices.Equal(got, want) || l != api.Fine {
+		if want := oracle.Numbers(all, number); !slices.Equal(got, want) || l != api.Fine {
 			t.Errorf("%+v: %s of %d is %v, bell %d, want %v", b, name, item, got, l, want)
 		}
 	}
@@ -289,7 +290,7 @@ func itemsAgainstOracle(t *testing.T, b api.StripBook, all []past) {
 func bookAgainstOracle(t *testing.T, b api.StripBook, all []past) {
 	t.Helper()
 	for _, q := range questions(b) {
-		want := spanOf(eachOnce(all, func(p past) int { return counted(b, p, q.kind, q.a) }))
+		want := spanOf(oracle.Numbers(all, func(p past) int { return counted(b, p, q.kind, q.a) }))
 		got, l := want, api.Fine
 		switch q.kind {
 		case api.StripTook:
@@ -303,7 +304,7 @@ func bookAgainstOracle(t *testing.T, b api.StripBook, all []past) {
 			t.Errorf("%+v: count %v is %v, bell %d, want %v", b, q, got, l, want)
 		}
 	}
-	want := eachOnce(all, func(p past) int { _, total := endOf(b, p); return total })
+	want := oracle.Numbers(all, func(p past) int { _, total := endOf(b, p); return total })
 	if list, l := strip.Totals(b); !slices.Equal(list, want) || l != api.Fine {
 		t.Errorf("%+v: Totals %v, bell %d, want %v", b, list, l, want)
 	}
@@ -333,8 +334,8 @@ func fitsAgainstOracle(t *testing.T, b api.StripBook, all []past) {
 	}
 	next := clone(b)
 	next.Items, next.Counts = nil, nil
-	numbers := eachOnce(all, func(p past) int { n, _ := endOf(b, p); return n })
-	totals := eachOnce(all, func(p past) int { _, total := endOf(b, p); return total })
+	numbers := oracle.Numbers(all, func(p past) int { n, _ := endOf(b, p); return n })
+	totals := oracle.Numbers(all, func(p past) int { _, total := endOf(b, p); return total })
 	for _, n := range append(numbers, 1, b.First, b.Last) {
 		for _, total := range append(totals, 0, b.Begin) {
 			next.First, next.Begin = n, total

@@ -6,6 +6,7 @@ import (
 
 	"nosale/api"
 	"nosale/dice"
+	"nosale/oracle"
 )
 
 // The oracle goes through all numbers of missing lines and all sales, one by one, and keeps those that can be; it calls nothing of the package.
@@ -177,16 +178,6 @@ func countedPasts(b api.StripBook, pasts []past) []past {
 // pasts returns all histories of a book.
 func pasts(b api.StripBook) []past { return countedPasts(b, printedPasts(b)) }
 
-// eachOnce returns a number of each history, ascending, each once.
-func eachOnce(all []past, number func(p past) int) []int {
-	var list []int
-	for _, p := range all {
-		list = append(list, number(p))
-	}
-	slices.Sort(list)
-	return slices.Compact(list)
-}
-
 // lineOf returns the line of an entry.
 func lineOf(b api.StripBook, p past, item int) printed {
 	for _, l := range linesOf(b, p) {
@@ -259,10 +250,7 @@ func clashOf(b api.StripBook, printed []past) (counts []int, l api.Bell) {
 // alone returns the book with some counts alone.
 func alone(b api.StripBook, list []int) api.StripBook {
 	o := clone(b)
-	o.Counts = nil
-	for _, i := range list {
-		o.Counts = append(o.Counts, b.Counts[i])
-	}
+	o.Counts = oracle.Picked(b.Counts, list)
 	return o
 }
 

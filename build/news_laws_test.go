@@ -7,7 +7,7 @@ import (
 	"nosale/api"
 	"nosale/build"
 	"nosale/dice"
-	"nosale/oracle"
+	"nosale/promises"
 )
 
 // within tells whether few has nothing that all has not.
@@ -99,17 +99,10 @@ func TestClashAlone(t *testing.T) {
 			t.Errorf("%+v: %d histories, but %v clash, bell %d", b, n, list, l)
 		}
 		clashes[len(list)]++
-		if len(list) == 0 {
-			continue
-		}
-		if n, _ := build.Histories(alone(b, list)); n > 0 {
-			t.Errorf("%+v: %v alone have %d histories", b, list, n)
-		}
-		for _, fewer := range oracle.Subsets(len(b.Trials)) {
-			if n, _ := build.Histories(alone(b, fewer)); len(fewer) < len(list) && n == 0 {
-				t.Errorf("%+v: %v clash, but so do %v", b, list, fewer)
-			}
-		}
+		promises.Clash(t, show(b), len(b.Trials), list, func(some []int) int {
+			n, _ := build.Histories(alone(b, some))
+			return n
+		})
 	}
 	if clashes[1] < 20 || clashes[2] < 10 {
 		t.Errorf("there were too few clashes: %v", clashes)
@@ -127,10 +120,10 @@ func TestAsked(t *testing.T) {
 		if all == 0 {
 			continue
 		}
-		if l != api.Fine || part == -1 && left != all || part >= 0 && left >= all {
-			t.Errorf("%+v: %d histories, but Ask tells %d, %d, bell %d", b, all, part, left, l)
+		if l != api.Fine {
+			t.Errorf("%+v: bell %d", b, l)
 		}
-		for p := range b.Parts {
+		promises.Asked(t, show(b), all, len(b.Parts), part, left, func(p int) int {
 			most := 0
 			list, _ := build.Times(b, p)
 			for _, n := range list {
@@ -141,10 +134,8 @@ func TestAsked(t *testing.T) {
 				}
 				most = max(most, many)
 			}
-			if p == part && most != left || most < left || p < part && most == left {
-				t.Errorf("%+v: %d leaves %d, but Ask tells %d, %d", b, p, most, part, left)
-			}
-		}
+			return most
+		})
 		if part >= 0 {
 			asked++
 		}

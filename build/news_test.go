@@ -9,6 +9,7 @@ import (
 	"nosale/api"
 	"nosale/build"
 	"nosale/dice"
+	"nosale/promises"
 )
 
 // P5.4: Clash returns the fewest trials that contradict each other, and of several such lists the least one.
@@ -62,15 +63,7 @@ type newsCase struct {
 // is compares the book that a function returned with what is expected; old is the one that was handed in.
 func (x newsCase) is(t *testing.T, old, b api.BuildBook, l api.Bell, asked ...any) {
 	t.Helper()
-	if text, _ := build.Print(b); text != x.want || l != x.l {
-		t.Errorf("%q, %v: %q, bell %d, want %q, %d", x.text, asked, text, l, x.want, x.l)
-	}
-	if l != api.Fine && show(b) != show(api.BuildBook{}) {
-		t.Errorf("%q, %v: %+v together with a bell", x.text, asked, b)
-	}
-	if text, _ := build.Print(old); text != x.text {
-		t.Errorf("%q was changed to %q", x.text, text)
-	}
+	layer().News(t, promises.Case{Text: x.text, Want: x.want, Bell: x.l}, old, b, l, asked...)
 }
 
 // P5.4: Try returns the book with one more trial, as the last one.

@@ -8,6 +8,7 @@ import (
 	"nosale/api"
 	"nosale/change"
 	"nosale/dice"
+	"nosale/promises"
 )
 
 // newsCase is a book of which more is known, and its text then.
@@ -19,15 +20,7 @@ type newsCase struct {
 // is compares the book that a function returned with what is expected; old is the one that was handed in.
 func (x newsCase) is(t *testing.T, old, b api.ChangeBook, l api.Bell, asked ...any) {
 	t.Helper()
-	if text, _ := change.Print(b); text != x.want || l != x.l {
-		t.Errorf("%q, %v: %q, bell %d, want %q, %d", x.text, asked, text, l, x.want, x.l)
-	}
-	if l != api.Fine && show(b) != show(api.ChangeBook{}) {
-		t.Errorf("%q, %v: %+v together with a bell", x.text, asked, b)
-	}
-	if text, _ := change.Print(old); text != x.text {
-		t.Errorf("%q was changed to %q", x.text, text)
-	}
+	layer().News(t, promises.Case{Text: x.text, Want: x.want, Bell: x.l}, old, b, l, asked...)
 }
 
 // P4.4: See returns the book in which a sale was seen.

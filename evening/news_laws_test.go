@@ -8,6 +8,7 @@ import (
 	"nosale/dice"
 	"nosale/evening"
 	"nosale/oracle"
+	"nosale/promises"
 )
 
 // within tells whether a span has no numbers but those of another one.
@@ -205,16 +206,10 @@ func TestClashAlone(t *testing.T) {
 		if len(list) > 1 {
 			long++
 		}
-		for _, counts := range oracle.Subsets(len(b.Counts)) {
-			n, l := evening.Histories(alone(b, counts))
-			is := slices.Equal(counts, list)
-			if is && n != 0 || !is && n == 0 || l != api.Fine {
-				t.Errorf("%+v: Clash is %v, but %v alone have %d histories, bell %d", b, list, counts, n, l)
-			}
-			if is {
-				break
-			}
-		}
+		promises.Clash(t, show(b), len(b.Counts), list, func(some []int) int {
+			n, _ := evening.Histories(alone(b, some))
+			return n
+		})
 	}
 	if found < 50 || long < 20 {
 		t.Errorf("only %d books clash, %d with more than one count", found, long)
@@ -232,18 +227,12 @@ func TestAsked(t *testing.T) {
 			continue
 		}
 		hour, clerk, left, l := evening.Ask(b)
-		if l != api.Fine || (hour < 0) != (clerk < 0) || hour < 0 && left != len(all) || hour >= 0 && left >= len(all) {
-			t.Errorf("%+v: %d histories, but Ask tells %d, %d, %d, bell %d", b, len(all), hour, clerk, left, l)
+		list := duties(b)
+		duty := slices.Index(list, taking(hour, clerk, 0))
+		if l != api.Fine || duty < 0 && (hour != -1 || clerk != -1) {
+			t.Errorf("%+v: Ask tells %d, %d, bell %d", b, hour, clerk, l)
 		}
-		before := true
-		for _, duty := range duties(b) {
-			n := leftOf(b, all, duty)
-			is := duty.Hour == hour && duty.Clerk == clerk
-			before = before && !is
-			if is && n != left || n < left || before && n == left && left < len(all) {
-				t.Errorf("%+v: %v leaves %d, but Ask tells %d, %d, %d", b, duty, n, hour, clerk, left)
-			}
-		}
+		promises.Asked(t, show(b), len(all), len(list), duty, left, func(i int) int { return leftOf(b, all, list[i]) })
 		if hour < 0 {
 			continue
 		}

@@ -7,6 +7,7 @@ import (
 
 	"nosale/api"
 	"nosale/evening"
+	"nosale/promises"
 )
 
 // newsCase is a book of which more is known, and its text then, or the bell.
@@ -20,18 +21,7 @@ func (x newsCase) is(t *testing.T, tell func(b api.EveningBook) (api.EveningBook
 	t.Helper()
 	old := parse(t, x.text)
 	b, l := tell(old)
-	text := ""
-	if l == api.Fine {
-		text, _ = evening.Print(b)
-	} else if show(b) != show(api.EveningBook{}) {
-		t.Errorf("%q, %v: %+v together with a bell", x.text, asked, b)
-	}
-	if text != x.want || l != x.l {
-		t.Errorf("%q, %v: %q, bell %d, want %q, %d", x.text, asked, text, l, x.want, x.l)
-	}
-	if text, _ := evening.Print(old); text != x.text {
-		t.Errorf("%q was changed to %q", x.text, text)
-	}
+	layer().News(t, promises.Case{Text: x.text, Want: x.want, Bell: x.l}, old, b, l, asked...)
 }
 
 // P7.3: Clash returns the fewest counts that contradict each other, and none if there is a history.

@@ -2,10 +2,12 @@
 package promises
 
 import (
+	"slices"
 	"strings"
 	"sync"
 
 	"nosale/api"
+	"nosale/oracle"
 )
 
 // manyTimes is how often a layer is asked at the same time.
@@ -115,5 +117,64 @@ func (x Layer[B]) isBookOrBell(t Test, text string, b B, l api.Bell) {
 	}
 	if back, _ := x.Print(b); back != strings.TrimSuffix(text, "\n")+"\n" {
 		t.Errorf("%.60q is printed as %q", text, back)
+	}
+}
+
+// Case is the text of a book, and the text that it is to have once more is known of it; no text if there is to be a bell.
+type Case struct {
+	Text, Want string
+	Bell       api.Bell
+}
+
+// News (R2, R4): a function made of old, the book of a case, the one that the case wants, or returned its bell, and no book; old is as it was. What was asked is only told.
+func (x Layer[B]) News(t Test, c Case, old, b B, l api.Bell, asked ...any) {
+	t.Helper()
+	got := ""
+	var none B
+	if l == api.Fine {
+		got, _ = x.Print(b)
+	} else if x.Show(b) != x.Show(none) {
+		t.Errorf("%q, %s: %s together with a bell", c.Text, x.Show(asked...), x.Show(b))
+	}
+	if got != c.Want || l != c.Bell {
+		t.Errorf("%q, %s: %q, bell %d, want %q, %d", c.Text, x.Show(asked...), got, l, c.Want, c.Bell)
+	}
+	if now, _ := x.Print(old); now != c.Text {
+		t.Errorf("%q was changed to %q", c.Text, now)
+	}
+}
+
+// Clash: the list that is told to clash, of so many things, has no history by itself, and no shorter or lesser one does; there is no such list if all things together have one. Histories tells how many histories some things have alone.
+func Clash(t Test, about string, things int, list []int, histories func(some []int) int) {
+	t.Helper()
+	if len(list) == 0 {
+		if histories(oracle.Indexes(things)) == 0 {
+			t.Errorf("%s: there is no history, but nothing clashes", about)
+		}
+		return
+	}
+	for _, some := range oracle.Subsets(things) {
+		n := histories(some)
+		is := slices.Equal(some, list)
+		if is != (n == 0) {
+			t.Errorf("%s: %v clash, but %v alone have %d histories", about, list, some, n)
+		}
+		if is {
+			return
+		}
+	}
+	t.Errorf("%s: %v clash, which are not there", about, list)
+}
+
+// Asked: the thing that is told to be asked about, of so many, leaves no more of all histories than is told, and is the first one that leaves so few; it is -1, and all are left, if none leaves fewer than all. Most tells how many histories are left at most once it is known what a thing is.
+func Asked(t Test, about string, all, things, thing, left int, most func(thing int) int) {
+	t.Helper()
+	if thing < 0 && left != all || thing >= 0 && left >= all || thing < -1 || thing >= things {
+		t.Errorf("%s: of %d histories %d leaves %d", about, all, thing, left)
+	}
+	for i := range things {
+		if n := most(i); i == thing && n != left || n < left || i < thing && n == left {
+			t.Errorf("%s: %d leaves %d, but %d is to be asked about, and to leave %d", about, i, n, thing, left)
+		}
 	}
 }

@@ -83,11 +83,42 @@ func broken() map[string]func(t Test) {
 		"a line below 0": func(t Test) {
 			parsing(func(string) (string, int, api.Bell) { return "", -1, api.Shape }).AnyByte(t, "a", "a\n")
 		},
+		"another book of news": func(t Test) { right().News(t, Case{"a\n", "b\n", api.Fine}, "a", "c", api.Fine) },
+		"a bell of news":       func(t Test) { right().News(t, Case{"a\n", "b\n", api.Fine}, "a", "", api.Odds) },
+		"another bell of news": func(t Test) { right().News(t, Case{"a\n", "", api.Odds}, "a", "", api.Bound) },
+		"news with a bell":     func(t Test) { right().News(t, Case{"a\n", "", api.Odds}, "a", "b", api.Odds) },
+		"news that change":     func(t Test) { right().News(t, Case{"a\n", "b\n", api.Fine}, "b", "b", api.Fine) },
+		"no clash":             func(t Test) { Clash(t, "", 3, nil, twoClash) },
+		"too few clash":        func(t Test) { Clash(t, "", 3, []int{1}, twoClash) },
+		"too many clash":       func(t Test) { Clash(t, "", 3, []int{0, 1, 2}, twoClash) },
+		"others clash":         func(t Test) { Clash(t, "", 3, []int{0, 2}, twoClash) },
+		"lesser ones clash":    func(t Test) { Clash(t, "", 4, []int{2, 3}, twoClash) },
+		"what is not there":    func(t Test) { Clash(t, "", 2, []int{2}, func([]int) int { return 1 }) },
+		"nothing is asked":     func(t Test) { Asked(t, "", 9, 4, -1, 9, leaves) },
+		"too few are left":     func(t Test) { Asked(t, "", 9, 4, 1, 3, leaves) },
+		"too many are left":    func(t Test) { Asked(t, "", 9, 4, 1, 5, leaves) },
+		"a later one is asked": func(t Test) { Asked(t, "", 9, 4, 2, 4, leaves) },
+		"a worse one is asked": func(t Test) { Asked(t, "", 9, 4, 0, 8, leaves) },
+		"none below -1":        func(t Test) { Asked(t, "", 4, 0, -2, 4, leaves) },
+		"none that is there":   func(t Test) { Asked(t, "", 9, 1, 1, 4, leaves) },
+		"all are left":         func(t Test) { Asked(t, "", 4, 4, 1, 4, leaves) },
+		"fewer than all":       func(t Test) { Asked(t, "", 4, 0, -1, 3, leaves) },
 		"Shape without a line": func(t Test) {
 			parsing(func(string) (string, int, api.Bell) { return "", 0, api.Shape }).AnyByte(t, "a", "a\n")
 		},
 	}
 }
+
+// twoClash tells how many histories some things have: 1 and 2 contradict each other, and so do 2 and 3.
+func twoClash(some []int) int {
+	if strings.Contains(show(some), "1 2") || strings.Contains(show(some), "2 3") {
+		return 0
+	}
+	return 5
+}
+
+// leaves tells how many histories each of four things leaves.
+func leaves(thing int) int { return []int{8, 4, 4, 6}[thing] }
 
 func TestBroken(t *testing.T) {
 	for name, hold := range broken() {
@@ -104,6 +135,14 @@ func TestRight(t *testing.T) {
 	right().Parses(t, "abca\n", 0, api.Count)
 	right().WrongLines(t, 1, "a", "x", "\na")
 	right().AnyByte(t, "abcx\n\xff", "a\n", "abc", "")
+	right().News(t, Case{"a\n", "b\n", api.Fine}, "a", "b", api.Fine, 1)
+	right().News(t, Case{"a\n", "", api.Odds}, "a", "", api.Odds)
+	Clash(t, "two", 4, []int{1, 2}, twoClash)
+	Clash(t, "none", 2, nil, twoClash)
+	Clash(t, "nothing", 0, nil, twoClash)
+	Asked(t, "the first one", 9, 4, 1, 4, leaves)
+	Asked(t, "none", 4, 4, -1, 4, leaves)
+	Asked(t, "nothing", 3, 0, -1, 3, leaves)
 	shaped := right()
 	shaped.HasShape = true
 	shaped.Parse = func(text string) (string, int, api.Bell) { return "", 0, api.Shape }

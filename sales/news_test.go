@@ -7,6 +7,7 @@ import (
 
 	"nosale/api"
 	"nosale/dice"
+	"nosale/promises"
 	"nosale/sales"
 )
 
@@ -19,18 +20,7 @@ type newsCase struct {
 // is compares the book that a function returned with what is expected; old is the one that was handed in.
 func (x newsCase) is(t *testing.T, old, b api.SalesBook, l api.Bell, asked ...any) {
 	t.Helper()
-	text := ""
-	if l == api.Fine {
-		text, _ = sales.Print(b)
-	} else if show(b) != show(api.SalesBook{}) {
-		t.Errorf("%q, %v: %+v together with a bell", x.text, asked, b)
-	}
-	if text != x.want || l != x.l {
-		t.Errorf("%q, %v: %q, bell %d, want %q, %d", x.text, asked, text, l, x.want, x.l)
-	}
-	if text, _ := sales.Print(old); text != x.text {
-		t.Errorf("%q was changed to %q", x.text, text)
-	}
+	layer().News(t, promises.Case{Text: x.text, Want: x.want, Bell: x.l}, old, b, l, asked...)
 }
 
 // P6.3: Tell returns the book in which the amount of a slip is known better.

@@ -7,6 +7,7 @@ import (
 
 	"nosale/api"
 	"nosale/dice"
+	"nosale/promises"
 	"nosale/strip"
 )
 
@@ -407,24 +408,11 @@ func TestClashAlone(t *testing.T) {
 		if (len(list) > 0) != (n == 0) {
 			t.Errorf("%+v: %d histories, but %v clash", b, n, list)
 		}
-		if len(list) == 0 {
-			continue
-		}
 		clashes[len(list)]++
-		if n, _ := strip.Histories(alone(b, list)); n != 0 {
-			t.Errorf("%+v: %v alone have %d histories", b, list, n)
-		}
-		for set := range 1 << len(b.Counts) {
-			var fewer []int
-			for i := range b.Counts {
-				if set>>i&1 == 1 {
-					fewer = append(fewer, i)
-				}
-			}
-			if n, _ := strip.Histories(alone(b, fewer)); len(fewer) < len(list) && n == 0 {
-				t.Errorf("%+v: %v clash, but so do %v", b, list, fewer)
-			}
-		}
+		promises.Clash(t, show(b), len(b.Counts), list, func(some []int) int {
+			n, _ := strip.Histories(alone(b, some))
+			return n
+		})
 	}
 	if clashes[1] < 20 || clashes[2] < 20 {
 		t.Errorf("there were too few clashes: %v", clashes)

@@ -8,6 +8,7 @@ import (
 
 	"nosale/api"
 	"nosale/dice"
+	"nosale/promises"
 	"nosale/strip"
 	"nosale/tag"
 	"nosale/wheels"
@@ -376,24 +377,11 @@ func TestClashAlone(t *testing.T) {
 		if (len(list) > 0) != (n == 0) || l != api.Fine {
 			t.Errorf("%+v: %d words, but %v clash, bell %d", h, n, list, l)
 		}
-		if len(list) == 0 {
-			continue
-		}
 		clashes[len(list)]++
-		if n, l := tag.Words(alone(h, list)); n != 0 || l != api.Odds {
-			t.Errorf("%+v: %v alone have %d words", h, list, n)
-		}
-		for set := range 1 << len(h.Tags) {
-			var fewer []int
-			for i := range h.Tags {
-				if set>>i&1 == 1 {
-					fewer = append(fewer, i)
-				}
-			}
-			if n, _ := tag.Words(alone(h, fewer)); len(fewer) < len(list) && n == 0 {
-				t.Errorf("%+v: %v clash, but so do %v", h, list, fewer)
-			}
-		}
+		promises.Clash(t, show(h), len(h.Tags), list, func(some []int) int {
+			n, _ := tag.Words(alone(h, some))
+			return n
+		})
 	}
 	if clashes[1] < 20 || clashes[2] < 50 {
 		t.Errorf("there were too few clashes: %v", clashes)

@@ -7,6 +7,7 @@ import (
 
 	"nosale/api"
 	"nosale/dice"
+	"nosale/promises"
 	"nosale/tag"
 )
 
@@ -65,15 +66,7 @@ type newsCase struct {
 // is compares the house that a function returned with what is expected; old is the one that was handed in.
 func (x newsCase) is(t *testing.T, old, h api.TagHouse, l api.Bell, asked ...any) {
 	t.Helper()
-	if text, _ := tag.Print(h); text != x.want || l != x.l {
-		t.Errorf("%q, %v: %q, bell %d, want %q, %d", x.text, asked, text, l, x.want, x.l)
-	}
-	if l != api.Fine && show(h) != show(api.TagHouse{}) {
-		t.Errorf("%q, %v: %+v together with a bell", x.text, asked, h)
-	}
-	if text, _ := tag.Print(old); text != x.text {
-		t.Errorf("%q was changed to %q", x.text, text)
-	}
+	layer().News(t, promises.Case{Text: x.text, Want: x.want, Bell: x.l}, old, h, l, asked...)
 }
 
 // P3.3: Learn narrows the price of a tag.

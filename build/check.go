@@ -61,11 +61,8 @@ func (b book) longTrials() (many int, right bool) {
 // checkPart returns the bell of a part.
 func (b book) checkPart(i int) api.Bell {
 	p := b.Parts[i]
-	if !names.Is(p.Name) {
-		return api.Label
-	}
-	if slices.ContainsFunc(b.Parts[:i], func(before api.BuildPart) bool { return before.Name == p.Name }) {
-		return api.Twice
+	if l := names.Bell(i, func(i int) string { return b.Parts[i].Name }); l != api.Fine {
+		return l
 	}
 	if !spans.Within(p.Cost, 0, api.MaxBuildCost) || !spans.Within(p.Stock, 0, api.MaxBuildStock) {
 		return api.Bound

@@ -17,22 +17,13 @@ type times [api.MaxBuildParts]int
 // allTimes yields all times that the parts can have, whatever the trials say.
 func (b book) allTimes() iter.Seq[times] {
 	return func(yield func(times) bool) {
-		// fill goes on with a part, and tells whether more is wanted.
-		var fill func(t times, part int) bool
-		fill = func(t times, part int) bool {
-			if part == len(b.Parts) {
-				return yield(t)
+		for list := range spans.Filled(len(b.Parts), func(part int) api.Span { return b.Parts[part].Time }) {
+			var t times
+			copy(t[:], list)
+			if !yield(t) {
+				return
 			}
-			s := b.Parts[part].Time
-			for n := s.Low; n <= s.High; n++ {
-				t[part] = n
-				if !fill(t, part+1) {
-					return false
-				}
-			}
-			return true
 		}
-		fill(times{}, 0)
 	}
 }
 
@@ -137,11 +128,5 @@ func copyBook(b api.BuildBook) api.BuildBook {
 // ifPossible returns a book if it has no bell, and a history.
 func ifPossible(b api.BuildBook) (api.BuildBook, api.Bell) {
 	o, l := open(b)
-	if l != api.Fine {
-		return api.BuildBook{}, l
-	}
-	if !histories.Any(o.histories()) {
-		return api.BuildBook{}, api.Odds
-	}
-	return b, api.Fine
+	return histories.IfAny(b, l, o.histories)
 }

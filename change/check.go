@@ -1,8 +1,6 @@
 package change
 
 import (
-	"slices"
-
 	"nosale/api"
 	"nosale/checks"
 	"nosale/spans"
@@ -114,15 +112,7 @@ func (b book) checkOrder(order []int) api.Bell {
 	if len(order) != len(b.Sales) {
 		return api.Count
 	}
-	for i, sale := range order {
-		if !b.hasSale(sale) {
-			return api.Missing
-		}
-		if slices.Contains(order[:i], sale) {
-			return api.Twice
-		}
-	}
-	return api.Fine
+	return checks.Once(order, len(b.Sales))
 }
 
 // hasKind tells whether a number is the index of a kind.

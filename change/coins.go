@@ -6,6 +6,7 @@ import (
 	"slices"
 
 	"nosale/api"
+	"nosale/spans"
 )
 
 // coins are a number for each kind; behind the last kind there are zeros.
@@ -94,7 +95,7 @@ func (b book) handfuls(most int) iter.Seq[coins] {
 			numbers := func(before coins, kind int) api.Span {
 				rest := many - before.many()
 				if kind == len(b.Kinds)-1 {
-					return api.Span{Low: rest, High: rest}
+					return spans.One(rest)
 				}
 				return api.Span{Low: 0, High: rest}
 			}
@@ -119,7 +120,7 @@ func (b book) changes(there coins, amount int) iter.Seq[coins] {
 			// nothing is from 1 to 0
 			return api.Span{Low: 1, High: 0}
 		}
-		return api.Span{Low: most, High: most}
+		return spans.One(most)
 	})
 }
 

@@ -61,13 +61,7 @@ func copyBook(b api.ChangeBook) api.ChangeBook {
 // ifPossible returns a book if it has no bell, and a history.
 func ifPossible(b api.ChangeBook) (api.ChangeBook, api.Bell) {
 	c, l := open(b)
-	if l != api.Fine {
-		return api.ChangeBook{}, l
-	}
-	if !histories.Any(c.histories()) {
-		return api.ChangeBook{}, api.Odds
-	}
-	return b, api.Fine
+	return histories.IfAny(b, l, c.histories)
 }
 
 // order is the sales in the order in which they come; behind the last one there are zeros.

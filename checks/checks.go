@@ -2,6 +2,8 @@
 package checks
 
 import (
+	"slices"
+
 	"nosale/api"
 	"nosale/spans"
 )
@@ -59,6 +61,19 @@ func Rising(list []int, things int) api.Bell {
 		}
 		if i > 0 && n <= list[i-1] {
 			return api.Order
+		}
+	}
+	return api.Fine
+}
+
+// Once returns the first bell of a list of indexes of so many things, each of which is to be there once at most.
+func Once(list []int, things int) api.Bell {
+	for i, n := range list {
+		if !spans.Within(n, 0, things-1) {
+			return api.Missing
+		}
+		if slices.Contains(list[:i], n) {
+			return api.Twice
 		}
 	}
 	return api.Fine

@@ -106,3 +106,22 @@ func TestRising(t *testing.T) {
 		}
 	}
 }
+
+// R1: number by number, one that is no index comes before one that was there before.
+func TestOnce(t *testing.T) {
+	for _, x := range []struct {
+		list   []int
+		things int
+		want   api.Bell
+	}{
+		{nil, 0, api.Fine}, {nil, 3, api.Fine}, {[]int{0}, 1, api.Fine}, {[]int{2, 0}, 3, api.Fine}, {[]int{1, 2, 0}, 3, api.Fine},
+		{[]int{0}, 0, api.Missing}, {[]int{3}, 3, api.Missing}, {[]int{-1}, 3, api.Missing}, {[]int{math.MinInt}, 3, api.Missing}, {[]int{0, math.MaxInt}, 3, api.Missing},
+		{[]int{1, 1}, 3, api.Twice}, {[]int{0, 2, 0}, 3, api.Twice},
+		// the first number that has a bell decides
+		{[]int{1, 1, 3}, 3, api.Twice}, {[]int{1, 3, 1}, 3, api.Missing}, {[]int{3, 3}, 3, api.Missing}, {make([]int, 1000000), 3, api.Twice},
+	} {
+		if l := Once(x.list, x.things); l != x.want {
+			t.Errorf("%.40v of %d: bell %d, want %d", x.list, x.things, l, x.want)
+		}
+	}
+}

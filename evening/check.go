@@ -1,8 +1,6 @@
 package evening
 
 import (
-	"slices"
-
 	"nosale/api"
 	"nosale/checks"
 	"nosale/names"
@@ -56,13 +54,7 @@ func (b book) longCounts() (many int, right bool) {
 
 // checkClerk returns the bell of a clerk.
 func (b book) checkClerk(i int) api.Bell {
-	if !names.Is(b.Clerks[i]) {
-		return api.Label
-	}
-	if slices.Contains(b.Clerks[:i], b.Clerks[i]) {
-		return api.Twice
-	}
-	return api.Fine
+	return names.Bell(i, func(i int) string { return b.Clerks[i] })
 }
 
 // checkHour returns the bell of an hour.

@@ -124,7 +124,7 @@ func (c checked) isRight(h history, set int) bool {
 hours:
 	for hour := range len(c.Hours) {
 		lost := c.lost(h, hour)
-		money = spans.Together(itself, money, c.Hours[hour].Said, api.Span{Low: -lost, High: -lost})
+		money = spans.Sum(money, c.Hours[hour].Said, spans.One(-lost))
 		for i, count := range c.Counts {
 			if count.After != hour || set>>i&1 == 0 {
 				continue
@@ -186,9 +186,6 @@ func (h history) hasSlipped(slip int) bool { return h.slipped>>slip&1 == 1 }
 // isHonest tells whether nothing was taken.
 func (h history) isHonest() bool { return h.taken == amounts{} }
 
-// itself returns a span.
-func itself(s api.Span) api.Span { return s }
-
 // saidIn returns what the register said in an hour.
 func saidIn(h api.EveningHour) api.Span { return h.Said }
 
@@ -200,7 +197,7 @@ func (b book) gap(count int) api.Span {
 	}
 	now := b.Counts[count]
 	said := spans.Together(saidIn, b.Hours[first:now.After+1]...)
-	return spans.Together(itself, before, said, api.Span{Low: -now.Money.High, High: -now.Money.Low})
+	return spans.Sum(before, said, api.Span{Low: -now.Money.High, High: -now.Money.Low})
 }
 
 // clash returns the fewest counts that alone have no history, and of several such lists the least one; none if there is a history.

@@ -68,11 +68,5 @@ func copyBook(b api.EveningBook) api.EveningBook {
 // ifPossible returns a book if it has no bell, and a history.
 func ifPossible(b api.EveningBook) (api.EveningBook, api.Bell) {
 	c, l := open(b)
-	if l != api.Fine {
-		return api.EveningBook{}, l
-	}
-	if !histories.Any(c.histories()) {
-		return api.EveningBook{}, api.Odds
-	}
-	return b, api.Fine
+	return histories.IfAny(b, l, c.histories)
 }

@@ -7,6 +7,7 @@ import (
 	"slices"
 
 	"nosale/api"
+	"nosale/spans"
 )
 
 // Any tells whether there is a history.
@@ -15,6 +16,18 @@ func Any[H any](all iter.Seq[H]) bool {
 		return true
 	}
 	return false
+}
+
+// IfAny returns a book, whose bell is told, if it has none, and a history; Odds if it has no history.
+func IfAny[B, H any](b B, l api.Bell, all func() iter.Seq[H]) (B, api.Bell) {
+	if l == api.Fine && !Any(all()) {
+		l = api.Odds
+	}
+	if l != api.Fine {
+		var none B
+		return none, l
+	}
+	return b, api.Fine
 }
 
 // Count returns how many histories there are.
@@ -65,9 +78,9 @@ func Span[H any](all iter.Seq[H], number func(h H) int) (api.Span, api.Bell) {
 	for h := range all {
 		n := number(h)
 		if !found {
-			s, found = api.Span{Low: n, High: n}, true
+			s, found = spans.One(n), true
 		}
-		s = api.Span{Low: min(s.Low, n), High: max(s.High, n)}
+		s = spans.Joined(s, spans.One(n))
 	}
 	if !found {
 		return api.Span{}, api.Odds

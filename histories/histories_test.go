@@ -1,6 +1,7 @@
 package histories
 
 import (
+	"iter"
 	"slices"
 	"testing"
 
@@ -20,6 +21,24 @@ func TestAny(t *testing.T) {
 			t.Error("more than one history is looked at")
 		}
 	})
+}
+
+func TestIfAny(t *testing.T) {
+	for _, x := range []struct {
+		many int
+		l    api.Bell
+		want string
+		bell api.Bell
+	}{{2, api.Fine, "book", api.Fine}, {1, api.Fine, "book", api.Fine}, {0, api.Fine, "", api.Odds}, {2, api.Count, "", api.Count}, {0, api.Label, "", api.Label}} {
+		asked := false
+		b, l := IfAny("book", x.l, func() iter.Seq[int] {
+			asked = true
+			return slices.Values(make([]int, x.many))
+		})
+		if b != x.want || l != x.bell || asked != (x.l == api.Fine) {
+			t.Errorf("%d histories, bell %d: %q, bell %d, histories looked at: %v", x.many, x.l, b, l, asked)
+		}
+	}
 }
 
 func TestNumbers(t *testing.T) {

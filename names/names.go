@@ -21,3 +21,17 @@ func Is(text string) bool {
 	}
 	return true
 }
+
+// Bell returns the bell of one of several names, each of which is told: it is to be one, and none of those before it.
+func Bell(i int, name func(i int) string) api.Bell {
+	this := name(i)
+	if !Is(this) {
+		return api.Label
+	}
+	for before := range i {
+		if name(before) == this {
+			return api.Twice
+		}
+	}
+	return api.Fine
+}

@@ -253,13 +253,7 @@ func copyBook(b api.SalesBook) api.SalesBook {
 // ifPossible returns a book if it has no bell, and a history.
 func ifPossible(b api.SalesBook) (api.SalesBook, api.Bell) {
 	c, l := check(b)
-	if l != api.Fine {
-		return api.SalesBook{}, l
-	}
-	if !histories.Any(c.histories()) {
-		return api.SalesBook{}, api.Odds
-	}
-	return b, api.Fine
+	return histories.IfAny(b, l, c.histories)
 }
 
 // clean returns the book without fixes, in which each slip has the amount of the last one for it that is signed; no fix is open.

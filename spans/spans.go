@@ -1,7 +1,11 @@
 // Package spans tells what numbers and spans are within bounds (section Terms of shared/DOC.md).
 package spans
 
-import "nosale/api"
+import (
+	"iter"
+
+	"nosale/api"
+)
 
 // Within tells whether a number is from low to high.
 func Within(n, low, high int) bool { return low <= n && n <= high }
@@ -16,6 +20,9 @@ func Has(s api.Span, n int) bool { return Within(n, s.Low, s.High) }
 
 // Many returns how many numbers a span within bounds has.
 func Many(s api.Span) int { return s.High - s.Low + 1 }
+
+// One returns the span of one number.
+func One(n int) api.Span { return api.Span{Low: n, High: n} }
 
 // Common returns what two spans have in common, and whether that is anything.
 func Common(a, b api.Span) (api.Span, bool) {
@@ -34,4 +41,40 @@ func Together[E any](tell func(e E) api.Span, several ...E) api.Span {
 		all = api.Span{Low: all.Low + s.Low, High: all.High + s.High}
 	}
 	return all
+}
+
+// Sum returns the span of what several numbers are together, each of which is one of a span, whatever the others are.
+func Sum(several ...api.Span) api.Span {
+	return Together(func(s api.Span) api.Span { return s }, several...)
+}
+
+// Joined returns the span from the least to the greatest number of one or more spans.
+func Joined(first api.Span, others ...api.Span) api.Span {
+	for _, s := range others {
+		first = api.Span{Low: min(first.Low, s.Low), High: max(first.High, s.High)}
+	}
+	return first
+}
+
+// Filled yields all lists that have, at each of so many places, a number of the span that is told of it, the least list first. The next list takes the memory of the one before it.
+func Filled(places int, span func(place int) api.Span) iter.Seq[[]int] {
+	return func(yield func([]int) bool) {
+		list := make([]int, places)
+		// fill goes on with a place, and tells whether more is wanted.
+		var fill func(place int) bool
+		fill = func(place int) bool {
+			if place == places {
+				return yield(list)
+			}
+			s := span(place)
+			for n := s.Low; n <= s.High; n++ {
+				list[place] = n
+				if !fill(place + 1) {
+					return false
+				}
+			}
+			return true
+		}
+		fill(0)
+	}
 }

@@ -1,7 +1,9 @@
 package spans
 
 import (
+	"fmt"
 	"math"
+	"slices"
 	"testing"
 
 	"nosale/api"
@@ -71,6 +73,59 @@ func TestTogether(t *testing.T) {
 	}{{nil, api.Span{}}, {[]int{1}, api.Span{Low: 1, High: 1}}, {[]int{5}, api.Span{Low: 1, High: 5}}, {[]int{5, 1, 7}, api.Span{Low: 3, High: 13}}} {
 		if got := Together(from1, x.several...); got != x.want {
 			t.Errorf("%v together: %v, want %v", x.several, got, x.want)
+		}
+	}
+}
+
+func TestSum(t *testing.T) {
+	for _, x := range []struct {
+		several []api.Span
+		want    api.Span
+	}{{nil, One(0)}, {[]api.Span{One(5)}, One(5)}, {[]api.Span{One(5), {Low: 1, High: 2}, One(-2), {Low: -3, High: 9}}, api.Span{Low: 1, High: 14}}} {
+		if got := Sum(x.several...); got != x.want {
+			t.Errorf("%v: %v, want %v", x.several, got, x.want)
+		}
+	}
+}
+
+func TestJoined(t *testing.T) {
+	for _, x := range []struct {
+		first  api.Span
+		others []api.Span
+		want   api.Span
+	}{{One(3), nil, api.Span{Low: 3, High: 3}}, {One(3), []api.Span{One(5)}, api.Span{Low: 3, High: 5}}, {One(3), []api.Span{One(2)}, api.Span{Low: 2, High: 3}}, {api.Span{Low: 1, High: 9}, []api.Span{{Low: 4, High: 5}, {Low: 0, High: 2}, {Low: 7, High: 9}}, api.Span{Low: 0, High: 9}}, {One(-7), []api.Span{{Low: -9, High: -8}, {Low: -8, High: 4}}, api.Span{Low: -9, High: 4}}} {
+		if got := Joined(x.first, x.others...); got != x.want {
+			t.Errorf("%v, %v: %v, want %v", x.first, x.others, got, x.want)
+		}
+	}
+}
+
+func TestFilled(t *testing.T) {
+	for _, x := range []struct {
+		places []api.Span
+		want   string
+	}{
+		{nil, "[[]]"}, {[]api.Span{One(7)}, "[[7]]"}, {[]api.Span{{Low: 1, High: 2}, One(5), {Low: -1, High: 1}}, "[[1 5 -1] [1 5 0] [1 5 1] [2 5 -1] [2 5 0] [2 5 1]]"}, {[]api.Span{{Low: 1, High: 2}, {Low: 2, High: 1}}, "[]"},
+	} {
+		var all [][]int
+		filled := Filled(len(x.places), func(place int) api.Span { return x.places[place] })
+		for list := range filled {
+			all = append(all, slices.Clone(list))
+		}
+		if s := fmt.Sprint(all); s != x.want {
+			t.Errorf("%v: %s, want %s", x.places, s, x.want)
+		}
+		// no more is asked for than is wanted, and each time all begins again
+		for many := 1; many <= len(all); many++ {
+			seen := 0
+			for list := range filled {
+				if !slices.Equal(list, all[seen]) {
+					t.Errorf("%v: %v, want %v", x.places, list, all[seen])
+				}
+				if seen++; seen == many {
+					break
+				}
+			}
 		}
 	}
 }

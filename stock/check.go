@@ -44,11 +44,8 @@ func (b book) longCounts() (many int, right bool) {
 // checkGood returns the bell of a good.
 func (b book) checkGood(i int) api.Bell {
 	g := b.Goods[i]
-	if !names.Is(g.Name) {
-		return api.Label
-	}
-	if slices.ContainsFunc(b.Goods[:i], func(before api.StockGood) bool { return before.Name == g.Name }) {
-		return api.Twice
+	if l := names.Bell(i, func(i int) string { return b.Goods[i].Name }); l != api.Fine {
+		return l
 	}
 	if !spans.Within(g.Cost, 0, api.MaxStockCost) || !spans.Within(g.Pack, 1, api.MaxStockPack) || !isMany(g.First) {
 		return api.Bound

@@ -133,16 +133,11 @@ func (b book) low(h history) stocks {
 
 // firsts returns all stocks that there can have been at first.
 func (b book) firsts() []stocks {
-	all := []stocks{{}}
-	for good, g := range b.Goods {
-		var longer []stocks
-		for _, s := range all {
-			for n := g.First.Low; n <= g.First.High; n++ {
-				s[good] = n
-				longer = append(longer, s)
-			}
-		}
-		all = longer
+	var all []stocks
+	for list := range spans.Filled(len(b.Goods), func(good int) api.Span { return b.Goods[good].First }) {
+		var s stocks
+		copy(s[:], list)
+		all = append(all, s)
 	}
 	return all
 }

@@ -72,11 +72,5 @@ func copyBook(b api.StockBook) api.StockBook {
 // ifPossible returns a book if it has no bell, and a history.
 func ifPossible(b api.StockBook) (api.StockBook, api.Bell) {
 	c, l := open(b)
-	if l != api.Fine {
-		return api.StockBook{}, l
-	}
-	if !histories.Any(c.histories()) {
-		return api.StockBook{}, api.Odds
-	}
-	return b, api.Fine
+	return histories.IfAny(b, l, c.histories)
 }

@@ -177,10 +177,7 @@ func (c checked) isHistory(many []int, sold []api.StripSale) bool {
 
 // ifPossible returns a book without a bell if it has a history.
 func ifPossible(b book) (api.StripBook, api.Bell) {
-	if !histories.Any(newChecked(b).histories()) {
-		return api.StripBook{}, api.Odds
-	}
-	return b.StripBook, api.Fine
+	return histories.IfAny(b.StripBook, api.Fine, newChecked(b).histories)
 }
 
 // spanOf returns the span from the least to the greatest count of a thing.

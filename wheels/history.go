@@ -148,10 +148,7 @@ func (c checked) agrees(shown row, ring int) bool {
 
 // ifPossible returns a book if it has a history.
 func ifPossible(b api.WheelsBook) (api.WheelsBook, api.Bell) {
-	if !histories.Any(newChecked(b).histories()) {
-		return api.WheelsBook{}, api.Odds
-	}
-	return b, api.Fine
+	return histories.IfAny(b, api.Fine, newChecked(b).histories)
 }
 
 // wrong returns the error of a history.

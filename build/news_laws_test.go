@@ -7,13 +7,9 @@ import (
 	"nosale/api"
 	"nosale/build"
 	"nosale/dice"
+	"nosale/oracle"
 	"nosale/promises"
 )
-
-// within tells whether few has nothing that all has not.
-func within(few, all []int) bool {
-	return !slices.ContainsFunc(few, func(n int) bool { return !slices.Contains(all, n) })
-}
 
 // noMore tells whether o, in which more is known than in b, makes nothing possible that was not, takes back nothing that was sure, and spoils no choice.
 func noMore(t *testing.T, b, o api.BuildBook) {
@@ -28,7 +24,7 @@ func noMore(t *testing.T, b, o api.BuildBook) {
 	}
 	for part := range b.Parts {
 		all, _ := build.Times(b, part)
-		if few, _ := build.Times(o, part); len(few) == 0 || !within(few, all) {
+		if few, _ := build.Times(o, part); len(few) == 0 || !oracle.Within(few, all) {
 			wrong("Times", part, all, few)
 		}
 	}
@@ -59,7 +55,7 @@ func noMore(t *testing.T, b, o api.BuildBook) {
 	_, swifter, l3 := build.Swiftest(o)
 	more, l4 := build.Builds(o)
 	less, l5 := build.Needs(o)
-	if fewer > different || cheaper > cost || swifter.High > took.High || more < builds || !within(less, needs) || l+l2+l3+l4+l5 != api.Fine {
+	if fewer > different || cheaper > cost || swifter.High > took.High || more < builds || !oracle.Within(less, needs) || l+l2+l3+l4+l5 != api.Fine {
 		wrong("choices", different, fewer, cost, cheaper, took, swifter, builds, more, needs, less)
 	}
 }

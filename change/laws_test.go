@@ -9,6 +9,7 @@ import (
 	"nosale/api"
 	"nosale/change"
 	"nosale/dice"
+	"nosale/oracle"
 )
 
 // P0.1: each function returns, whatever it is called with, and returns the same to several goroutines; it changes nothing.
@@ -294,16 +295,11 @@ func TestFewestCoins(t *testing.T) {
 			if w, is, _ := change.Give(b, more, amount); found && (!is || sum(w) > sum(v)) {
 				t.Errorf("%d out of %v: %v, but out of %v: %v", amount, coins, v, more, w)
 			}
-			if after, _ := change.Cannot(b, more, most); !within(after, before) {
+			if after, _ := change.Cannot(b, more, most); !oracle.Within(after, before) {
 				t.Errorf("%v of %v cannot give %v, but %v cannot give %v", coins, kinds, before, more, after)
 			}
 		}
 	}
-}
-
-// within tells whether few has nothing that all has not.
-func within(few, all []int) bool {
-	return !slices.ContainsFunc(few, func(n int) bool { return !slices.Contains(all, n) })
 }
 
 // P4.9: the amount of a drawer grows by the prices of the sales that go.

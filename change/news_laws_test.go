@@ -7,6 +7,7 @@ import (
 	"nosale/api"
 	"nosale/change"
 	"nosale/dice"
+	"nosale/oracle"
 	"nosale/promises"
 )
 
@@ -29,11 +30,11 @@ func noMore(t *testing.T, b, o api.ChangeBook) {
 	}
 	for k := range b.Kinds {
 		all, _ := change.Had(b, k)
-		if few, _ := change.Had(o, k); len(few) == 0 || !within(few, all) {
+		if few, _ := change.Had(o, k); len(few) == 0 || !oracle.Within(few, all) {
 			wrong("Had", k, all, few)
 		}
 		all, _ = change.Left(b, k)
-		if few, _ := change.Left(o, k); len(few) == 0 || !within(few, all) {
+		if few, _ := change.Left(o, k); len(few) == 0 || !oracle.Within(few, all) {
 			wrong("Left", k, all, few)
 		}
 	}

@@ -167,11 +167,6 @@ func TestNoChangedLists(t *testing.T) {
 	}
 }
 
-// isSo tells whether what is told to be sure is so.
-func isSo(sure api.Sure, is bool) bool {
-	return sure == api.Open || (sure == api.Yes) == is
-}
-
 // holds tells whether what really happened is a history of a book, and all that is told of it is so.
 func holds(t *testing.T, b api.EveningBook, p past) {
 	t.Helper()
@@ -183,7 +178,7 @@ func holds(t *testing.T, b api.EveningBook, p past) {
 		t.Errorf("%+v, %v: %s %d is %v, bell %d", b, p, name, i, told, l)
 	}
 	for i := range b.Clerks {
-		if sure, l := evening.Took(b, i); !isSo(sure, p.ofClerk(i) > 0) || l != api.Fine {
+		if sure, l := evening.Took(b, i); !oracle.IsSo(sure, p.ofClerk(i) > 0) || l != api.Fine {
 			wrong("Took", i, sure, l)
 		}
 		if s, l := evening.Sums(b, i); p.ofClerk(i) < s.Low || p.ofClerk(i) > s.High || l != api.Fine {
@@ -191,12 +186,12 @@ func holds(t *testing.T, b api.EveningBook, p past) {
 		}
 	}
 	for i := range b.Hours {
-		if sure, l := evening.Hour(b, i); !isSo(sure, p.ofHour(i) > 0) || l != api.Fine {
+		if sure, l := evening.Hour(b, i); !oracle.IsSo(sure, p.ofHour(i) > 0) || l != api.Fine {
 			wrong("Hour", i, sure, l)
 		}
 	}
 	for i := range b.Wheels {
-		if sure, l := evening.Slipped(b, i); !isSo(sure, slices.Contains(p.slips, i)) || l != api.Fine {
+		if sure, l := evening.Slipped(b, i); !oracle.IsSo(sure, slices.Contains(p.slips, i)) || l != api.Fine {
 			wrong("Slipped", i, sure, l)
 		}
 	}

@@ -11,9 +11,6 @@ import (
 	"nosale/promises"
 )
 
-// within tells whether a span has no numbers but those of another one.
-func within(s, wide api.Span) bool { return s.Low >= wide.Low && s.High <= wide.High }
-
 // noMore tells whether a book of which more is known has no history that the other one did not have, widens no span, and takes back nothing that was sure. Of a slip of the one, same tells its index in the other, -1 if it is mended.
 func noMore(t *testing.T, b, o api.EveningBook, same func(slip int) int) {
 	t.Helper()
@@ -27,7 +24,7 @@ func noMore(t *testing.T, b, o api.EveningBook, same func(slip int) int) {
 		is, _ := evening.Took(o, i)
 		wide, _ := evening.Sums(b, i)
 		s, _ := evening.Sums(o, i)
-		if was != api.Open && is != was || !within(s, wide) {
+		if was != api.Open && is != was || !oracle.IsNarrow(s, wide) {
 			t.Errorf("%+v: Took %d is %d of %v, %+v: %d of %v", b, i, was, wide, o, is, s)
 		}
 	}
@@ -48,7 +45,7 @@ func noMore(t *testing.T, b, o api.EveningBook, same func(slip int) int) {
 		}
 	}
 	wide, _ := evening.Loss(b)
-	if s, _ := evening.Loss(o); !within(s, wide) {
+	if s, _ := evening.Loss(o); !oracle.IsNarrow(s, wide) {
 		t.Errorf("%+v: Loss is %v, %+v: %v", b, wide, o, s)
 	}
 	was, _ := evening.Explained(b)

@@ -221,15 +221,33 @@ type placedText struct {
 func TestReadPlaced(t *testing.T) {
 	for _, x := range append(placedTexts(), placedText{strings.Repeat("a", api.MaxText+1), 0, api.Count, ""}) {
 		got := ""
-		line, l := ReadPlaced(x.text, readRanked, func(l Placed) { got += l.Text() })
+		line, l := readPlaced(x.text, readRanked, func(l Placed) { got += l.Text() })
 		if line != x.line || l != x.bell || got != x.want {
 			t.Errorf("%.40q: line %d, bell %d, %.40q, want %d, %d, %.40q", x.text, line, l, got, x.line, x.bell, x.want)
 		}
 	}
 	// what is wrong when it was read need not be a line
-	line, l := ReadPlaced("a 0\n", readNothing, func(l Placed) { t.Error("a wrong line was added") })
+	line, l := readPlaced("a 0\n", readNothing, func(l Placed) { t.Error("a wrong line was added") })
 	if line != 1 || l != api.Shape {
 		t.Errorf("line %d, bell %d", line, l)
+	}
+}
+
+func TestReadBook(t *testing.T) {
+	for _, x := range []struct {
+		text string
+		bell api.Bell // of the book
+		want string
+		line int
+		l    api.Bell
+	}{
+		{"a 0\n", api.Fine, "a", 0, api.Fine}, {"a 0\n", api.Short, "", 0, api.Short}, {"\n", api.Fine, "", 1, api.Shape}, {"a 0\n\n", api.Short, "", 2, api.Shape}, {strings.Repeat("a", api.MaxText+1), api.Short, "", 0, api.Count},
+	} {
+		got := ""
+		b, line, l := ReadBook(x.text, readRanked, func(l Placed) { got += l.Text() }, func() (string, api.Bell) { return got, x.bell })
+		if b != x.want || line != x.line || l != x.l {
+			t.Errorf("%.40q, bell %d: %q, line %d, bell %d, want %q, %d, %d", x.text, x.bell, b, line, l, x.want, x.line, x.l)
+		}
 	}
 }
 

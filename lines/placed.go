@@ -45,8 +45,8 @@ func readLines(text string, read func(r *Reading) Placed, add func(l Placed)) (e
 	return nil
 }
 
-// ReadPlaced reads the lines of a text likewise, and returns the bell of the text, and the first line that is wrong, 0 if there is none.
-func ReadPlaced(text string, read func(r *Reading) Placed, add func(l Placed)) (line int, l api.Bell) {
+// readPlaced reads the lines of a text likewise, and returns the bell of the text, and the first line that is wrong, 0 if there is none.
+func readPlaced(text string, read func(r *Reading) Placed, add func(l Placed)) (line int, l api.Bell) {
 	if len(text) > api.MaxText {
 		return 0, api.Count
 	}
@@ -55,4 +55,17 @@ func ReadPlaced(text string, read func(r *Reading) Placed, add func(l Placed)) (
 		return wrong.Line, api.Shape
 	}
 	return 0, api.Fine
+}
+
+// ReadBook reads the lines of a text likewise, and returns the book that they make together, which is told with its bell; the line is 0 if none is wrong.
+func ReadBook[B any](text string, read func(r *Reading) Placed, add func(l Placed), book func() (B, api.Bell)) (b B, line int, l api.Bell) {
+	line, l = readPlaced(text, read, add)
+	if l == api.Fine {
+		b, l = book()
+	}
+	if l != api.Fine {
+		var none B
+		return none, line, l
+	}
+	return b, 0, api.Fine
 }

@@ -123,3 +123,17 @@ func Ask[P any](all []P, things int, number func(p P, thing int) int) (thing, le
 	}
 	return thing, left
 }
+
+// Has tells whether a number is one of a span.
+func Has(s api.Span, n int) bool { return n >= s.Low && n <= s.High }
+
+// IsNarrow tells whether a span has no numbers but those of another one.
+func IsNarrow(s, wide api.Span) bool { return s.Low >= wide.Low && s.High <= wide.High }
+
+// Within tells whether a list has nothing that another one has not.
+func Within[E comparable](few, all []E) bool {
+	return !slices.ContainsFunc(few, func(e E) bool { return !slices.Contains(all, e) })
+}
+
+// IsSo tells whether what is told to be sure agrees with what is so.
+func IsSo(sure api.Sure, is bool) bool { return sure == api.Open || (sure == api.Yes) == is }

@@ -45,3 +45,17 @@ func TestAsk(t *testing.T) {
 		is(t, x.want, thing, left)
 	}
 }
+
+func TestSpans(t *testing.T) {
+	s := api.Span{Low: 2, High: 4}
+	is(t, "[false true true true false]", Has(s, 1), Has(s, 2), Has(s, 3), Has(s, 4), Has(s, 5))
+	is(t, "[true true false false]", IsNarrow(s, s), IsNarrow(api.Span{Low: 3, High: 3}, s), IsNarrow(api.Span{Low: 1, High: 4}, s), IsNarrow(api.Span{Low: 2, High: 5}, s))
+}
+
+func TestWithin(t *testing.T) {
+	is(t, "[true true true false false]", Within(nil, []int{1}), Within([]int{2, 1, 2}, []int{1, 2, 3}), Within([]int(nil), nil), Within([]int{1}, nil), Within([]string{"a", "d"}, []string{"a", "b"}))
+}
+
+func TestIsSo(t *testing.T) {
+	is(t, "[true true true false false true]", IsSo(api.Open, true), IsSo(api.Open, false), IsSo(api.Yes, true), IsSo(api.Yes, false), IsSo(api.No, true), IsSo(api.No, false))
+}

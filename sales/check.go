@@ -50,7 +50,7 @@ func (b book) checkSlip(i int) api.Bell {
 	if l := b.checkFor(i); l != api.Fine {
 		return l
 	}
-	if !isAmount(s.Amount) || spans.Many(s.Amount) > api.MaxSalesWide {
+	if !spans.IsFrom(s.Amount, 0, api.MaxSalesAmount) || spans.Many(s.Amount) > api.MaxSalesWide {
 		return api.Bound
 	}
 	if !spans.Within(int(s.Signed), int(api.Open), int(api.No)) || s.Kind != api.SalesFix && s.Signed != api.Open {
@@ -109,9 +109,6 @@ func (b book) checkWritten(numbers []int, signed []bool) api.Bell {
 	}
 	return api.Fine
 }
-
-// isAmount tells whether a span is one that amounts can have.
-func isAmount(s api.Span) bool { return spans.IsFrom(s, 0, api.MaxSalesAmount) }
 
 // isThing tells whether there are sums of a kind with this A.
 func isThing(kind api.SalesSumKind, a int) bool {

@@ -33,6 +33,18 @@ func Common(a, b api.Span) (api.Span, bool) {
 	return s, true
 }
 
+// Narrowed returns what is left of a span of a number if it is one of another span, too; Bound if that is not one from 0 to top, Odds if nothing is left.
+func Narrowed(known, x api.Span, top int) (api.Span, api.Bell) {
+	if !IsFrom(x, 0, top) {
+		return api.Span{}, api.Bound
+	}
+	common, ok := Common(known, x)
+	if !ok {
+		return api.Span{}, api.Odds
+	}
+	return common, api.Fine
+}
+
 // Together returns the span of what several things amount to together, of each of which a span is told.
 func Together[E any](tell func(e E) api.Span, several ...E) api.Span {
 	var all api.Span

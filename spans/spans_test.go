@@ -129,3 +129,20 @@ func TestFilled(t *testing.T) {
 		}
 	}
 }
+
+// Bound comes before Odds; what is known already need not be within bounds.
+func TestNarrowed(t *testing.T) {
+	for _, x := range []struct {
+		known, x api.Span
+		want     api.Span
+		bell     api.Bell
+	}{
+		{api.Span{Low: 2, High: 5}, api.Span{Low: 0, High: 9}, api.Span{Low: 2, High: 5}, api.Fine}, {api.Span{Low: 2, High: 5}, api.Span{Low: 5, High: 9}, One(5), api.Fine}, {api.Span{Low: 2, High: 5}, One(3), One(3), api.Fine}, {api.Span{Low: 2, High: 20}, api.Span{Low: 4, High: 9}, api.Span{Low: 4, High: 9}, api.Fine},
+		{api.Span{Low: 2, High: 5}, api.Span{Low: 6, High: 9}, api.Span{}, api.Odds}, {api.Span{Low: 2, High: 5}, One(1), api.Span{}, api.Odds},
+		{api.Span{Low: 2, High: 5}, api.Span{Low: 3, High: 10}, api.Span{}, api.Bound}, {api.Span{Low: 2, High: 5}, api.Span{Low: -1, High: 3}, api.Span{}, api.Bound}, {api.Span{Low: 2, High: 5}, api.Span{Low: 4, High: 3}, api.Span{}, api.Bound}, {api.Span{Low: 2, High: 5}, One(10), api.Span{}, api.Bound}, {api.Span{Low: 2, High: 5}, api.Span{Low: math.MinInt, High: math.MaxInt}, api.Span{}, api.Bound},
+	} {
+		if s, l := Narrowed(x.known, x.x, 9); s != x.want || l != x.bell {
+			t.Errorf("%v, %v: %v, bell %d, want %v, %d", x.known, x.x, s, l, x.want, x.bell)
+		}
+	}
+}

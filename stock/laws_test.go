@@ -173,9 +173,6 @@ func TestNoSharedLists(t *testing.T) {
 	}
 }
 
-// isSo tells whether what is told to be sure is so.
-func isSo(sure api.Sure, is bool) bool { return sure == api.Open || (sure == api.Yes) == is }
-
 // holds tells whether what really happened is a history of a book, and all that is told of it is so.
 func holds(t *testing.T, b api.StockBook, p past) {
 	t.Helper()
@@ -192,10 +189,10 @@ func holds(t *testing.T, b api.StockBook, p past) {
 				wrong("Left", good, list, l)
 			}
 		}
-		if s, l := stock.Lost(b, good, 1, b.Days); !isIn(lostOf(b, p, good, 1, b.Days), s) || l != api.Fine {
+		if s, l := stock.Lost(b, good, 1, b.Days); !oracle.Has(s, lostOf(b, p, good, 1, b.Days)) || l != api.Fine {
 			wrong("Lost", good, s, l)
 		}
-		if s, l := stock.Lasts(b, good, 2); !isIn(endOf(b, p, good)/2, s) || l != api.Fine {
+		if s, l := stock.Lasts(b, good, 2); !oracle.Has(s, endOf(b, p, good)/2) || l != api.Fine {
 			wrong("Lasts", good, s, l)
 		}
 	}
@@ -205,12 +202,12 @@ func holds(t *testing.T, b api.StockBook, p past) {
 		}
 	}
 	for _, move := range notes(b) {
-		if sure, l := stock.False(b, move); !isSo(sure, slices.Contains(p.lies, move)) || l != api.Fine {
+		if sure, l := stock.False(b, move); !oracle.IsSo(sure, slices.Contains(p.lies, move)) || l != api.Fine {
 			wrong("False", move, sure, l)
 		}
 	}
 	for day := range b.Days + 1 {
-		if s, l := stock.Worth(b, day); !isIn(worthOf(b, p, day), s) || l != api.Fine {
+		if s, l := stock.Worth(b, day); !oracle.Has(s, worthOf(b, p, day)) || l != api.Fine {
 			wrong("Worth", day, s, l)
 		}
 	}

@@ -11,14 +11,6 @@ import (
 	"nosale/stock"
 )
 
-// within tells whether all of a list are in another one.
-func within(few, all []int) bool {
-	return !slices.ContainsFunc(few, func(n int) bool { return !slices.Contains(all, n) })
-}
-
-// isNarrow tells whether a span has no numbers but those of another one.
-func isNarrow(s, wide api.Span) bool { return s.Low >= wide.Low && s.High <= wide.High }
-
 // noMore tells whether a book of which more is known has no history that the other one did not have, makes nothing possible that was not, and takes back nothing that was sure.
 func noMore(t *testing.T, b, o api.StockBook) {
 	t.Helper()
@@ -32,7 +24,7 @@ func noMore(t *testing.T, b, o api.StockBook) {
 		is, _ := stock.Left(o, good, b.Days)
 		lost, _ := stock.Lost(b, good, 1, b.Days)
 		now, _ := stock.Lost(o, good, 1, b.Days)
-		if !within(is, was) || !isNarrow(now, lost) {
+		if !oracle.Within(is, was) || !oracle.IsNarrow(now, lost) {
 			t.Errorf("%+v: Left %d is %v, Lost %v, %+v: %v, %v", b, good, was, lost, o, is, now)
 		}
 	}
@@ -41,13 +33,13 @@ func noMore(t *testing.T, b, o api.StockBook) {
 		is, _ := stock.Numbers(o, move)
 		sure, _ := stock.False(b, move)
 		now, _ := stock.False(o, move)
-		if !within(is, was) || sure != api.Open && sure != now {
+		if !oracle.Within(is, was) || sure != api.Open && sure != now {
 			t.Errorf("%+v: Numbers %d is %v, False %d, %+v: %v, %d", b, move, was, sure, o, is, now)
 		}
 	}
 	for day := range b.Days + 1 {
 		was, _ := stock.Worth(b, day)
-		if is, _ := stock.Worth(o, day); !isNarrow(is, was) {
+		if is, _ := stock.Worth(o, day); !oracle.IsNarrow(is, was) {
 			t.Errorf("%+v: Worth %d is %v, %+v: %v", b, day, was, o, is)
 		}
 	}
@@ -87,7 +79,7 @@ func TestKnowingMore(t *testing.T) {
 		all := pasts(b)
 		for move, m := range b.Moves {
 			x := d.Around(m.Many.Low+d.Roll(3), 3, 0, api.MaxStockMany)
-			left := oracle.Kept(all, func(p past) bool { return isIn(p.many[move], x) })
+			left := oracle.Kept(all, func(p past) bool { return oracle.Has(x, p.many[move]) })
 			o, l := stock.Tell(b, move, x)
 			news(t, "told", b, o, l, left)
 		}
@@ -96,7 +88,7 @@ func TestKnowingMore(t *testing.T) {
 		}
 		c := anyCount(&d, b, real)
 		c.Many = to(c.Many.Low+d.Roll(2), c.Many.High+1)
-		left := oracle.Kept(all, func(p past) bool { return isIn(stockOf(b, p, c.Good, c.Day), c.Many) })
+		left := oracle.Kept(all, func(p past) bool { return oracle.Has(c.Many, stockOf(b, p, c.Good, c.Day)) })
 		o, l := stock.Note(b, c)
 		news(t, "counted", b, o, l, left)
 		if l != api.Fine {

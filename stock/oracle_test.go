@@ -87,9 +87,6 @@ func lastsOf(left, rate int) int {
 	return days
 }
 
-// isIn tells whether a number is one of a span.
-func isIn(n int, s api.Span) bool { return n >= s.Low && n <= s.High }
-
 // isCounted tells whether no stock is below 0, and the counts are right.
 func isCounted(b api.StockBook, p past) bool {
 	for good := range b.Goods {
@@ -98,7 +95,7 @@ func isCounted(b api.StockBook, p past) bool {
 		}
 	}
 	for _, c := range b.Counts {
-		if !isIn(stockOf(b, p, c.Good, c.Day), c.Many) {
+		if !oracle.Has(c.Many, stockOf(b, p, c.Good, c.Day)) {
 			return false
 		}
 	}
@@ -108,12 +105,12 @@ func isCounted(b api.StockBook, p past) bool {
 // agrees tells whether what happened is a history of a book.
 func agrees(b api.StockBook, p past) bool {
 	for i, g := range b.Goods {
-		if !isIn(p.first[i], g.First) {
+		if !oracle.Has(g.First, p.first[i]) {
 			return false
 		}
 	}
 	for i, m := range b.Moves {
-		if !isIn(p.many[i], m.Many) {
+		if !oracle.Has(m.Many, p.many[i]) {
 			return false
 		}
 	}

@@ -257,7 +257,7 @@ func TestMoneyTells(t *testing.T) {
 		was, l := evening.Loss(e)
 		e.Hours[0].Said = to(worth.Low-rest.High, worth.High-rest.Low)
 		is, l2 := evening.Loss(e)
-		if is != to(taken, taken) || !isNarrow(is, was) || l+l2 != api.Fine {
+		if is != to(taken, taken) || !oracle.IsNarrow(is, was) || l+l2 != api.Fine {
 			t.Errorf("%+v: %v was taken, not %d, bells %d, %d", e, is, taken, l, l2)
 		}
 		// what was rung is the price of what was sold, move by move
@@ -268,7 +268,7 @@ func TestMoneyTells(t *testing.T) {
 		some := x.b
 		for i, m := range x.b.Moves {
 			n, l := wheels.Amount(w, w.Rings[i].Keys)
-			if s := times(x.many(i), x.b.Goods[m.Good].Cost); !isIn(n, s) || l != api.Fine {
+			if s := times(x.many(i), x.b.Goods[m.Good].Cost); !oracle.Has(s, n) || l != api.Fine {
 				t.Errorf("%+v: %d was rung, but the move %d is of %v", x.b, n, i, s)
 			}
 			x.tell(i, pieces([]int{n}, x.b.Goods[m.Good].Cost), "by what was rung")

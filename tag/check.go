@@ -134,10 +134,7 @@ func (l label) isReadable() bool { return isReadable(l.Reads) }
 func (l label) isClear() bool { return smudges(l.Reads) <= api.MaxTagSmudges }
 
 // isPriced tells whether the price is a span that it can be.
-func (l label) isPriced() bool { return isPrice(l.Price) }
-
-// isPrice tells whether a span is one of prices.
-func isPrice(s api.Span) bool { return spans.IsFrom(s, 0, api.MaxTagPrice) }
+func (l label) isPriced() bool { return spans.IsFrom(l.Price, 0, api.MaxTagPrice) }
 
 // isLetter tells whether a rune is one of A to Z.
 func isLetter(r rune) bool { return 'A' <= r && r <= 'Z' }

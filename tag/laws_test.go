@@ -8,6 +8,7 @@ import (
 
 	"nosale/api"
 	"nosale/dice"
+	"nosale/oracle"
 	"nosale/promises"
 	"nosale/strip"
 	"nosale/tag"
@@ -244,11 +245,6 @@ func TestThereAndBack(t *testing.T) {
 	}
 }
 
-// within tells whether few has nothing that all has not.
-func within[E comparable](few, all []E) bool {
-	return !slices.ContainsFunc(few, func(e E) bool { return !slices.Contains(all, e) })
-}
-
 // noMore tells whether o, in which more is known than in h, makes nothing possible that was not, and takes back nothing that was sure.
 func noMore(t *testing.T, h, o api.TagHouse, looks []string) {
 	t.Helper()
@@ -266,19 +262,19 @@ func noMore(t *testing.T, h, o api.TagHouse, looks []string) {
 	}
 	for digit := range 10 {
 		all, _ := tag.Letters(h, digit)
-		if few, _ := tag.Letters(o, digit); few == "" || !within([]byte(few), []byte(all)) {
+		if few, _ := tag.Letters(o, digit); few == "" || !oracle.Within([]byte(few), []byte(all)) {
 			wrong("Letters", digit, all, few)
 		}
 	}
 	for letter := 'A'; letter <= 'Z'; letter++ {
 		all, _ := tag.Digits(h, string(letter))
-		if few, _ := tag.Digits(o, string(letter)); !within(few, all) {
+		if few, _ := tag.Digits(o, string(letter)); !oracle.Within(few, all) {
 			wrong("Digits", string(letter), all, few)
 		}
 	}
 	for i := range h.Tags {
 		all, _ := tag.Prices(h, i)
-		if few, _ := tag.Prices(o, i); len(few) == 0 || !within(few, all) {
+		if few, _ := tag.Prices(o, i); len(few) == 0 || !oracle.Within(few, all) {
 			wrong("Prices", i, all, few)
 		}
 		was, _ := tag.Misread(h, i)
@@ -289,12 +285,12 @@ func noMore(t *testing.T, h, o api.TagHouse, looks []string) {
 	for _, reads := range looks {
 		all, _ := tag.Means(h, reads)
 		few, _ := tag.Means(o, reads)
-		if !within(few, all) {
+		if !oracle.Within(few, all) {
 			wrong("Means", reads, all, few)
 		}
 		for _, price := range all[:min(len(all), 3)] {
 			all, _ := tag.Writes(h, price, len(reads))
-			if few, _ := tag.Writes(o, price, len(reads)); len(few) == 0 || !within(few, all) {
+			if few, _ := tag.Writes(o, price, len(reads)); len(few) == 0 || !oracle.Within(few, all) {
 				wrong("Writes", price, all, few)
 			}
 			was, _ := tag.Plain(h, price, len(reads))
@@ -408,7 +404,7 @@ func TestPlain(t *testing.T) {
 				t.Errorf("%+v: %d is written %q of %q, bell %d", o, m.number, s, texts, l)
 			}
 			for _, text := range texts {
-				if list, l := tag.Means(o, text); len(list) > 1 || !within(list, []int{m.number}) || l != api.Fine {
+				if list, l := tag.Means(o, text); len(list) > 1 || !oracle.Within(list, []int{m.number}) || l != api.Fine {
 					t.Errorf("%+v: %q, which is %d, is read as %v, bell %d", o, text, m.number, list, l)
 				}
 			}

@@ -9,8 +9,8 @@ import (
 // none is how a list without numbers is written.
 const none = "none"
 
-// most is the greatest number of nine digits.
-const most = 999999999
+// Most is the greatest number that can stand in a field; the least one is as far below 0.
+const Most = 999999999
 
 // Line is a line of a text.
 type Line interface {
@@ -46,7 +46,7 @@ func Fields(line string) []string { return strings.Split(line, " ") }
 // Number returns the number that a field stands for, and whether it has the form of one.
 func Number(field string) (int, bool) {
 	n, err := strconv.Atoi(field)
-	if err != nil || n < -most || n > most || strconv.Itoa(n) != field {
+	if err != nil || n < -Most || n > Most || strconv.Itoa(n) != field {
 		return 0, false
 	}
 	return n, true

@@ -12,6 +12,16 @@ func Compare(a, b []int) int {
 	return cmp.Or(cmp.Compare(len(a), len(b)), slices.Compare(a, b))
 }
 
+// Same tells whether several lists are equal to one.
+func Same[E comparable](list []E, several ...[]E) bool {
+	for _, other := range several {
+		if !slices.Equal(list, other) {
+			return false
+		}
+	}
+	return true
+}
+
 // OfSet returns the numbers of the bits of a set, which is not below 0.
 func OfSet(set int) []int {
 	var list []int

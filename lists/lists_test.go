@@ -20,6 +20,18 @@ func TestCompare(t *testing.T) {
 	}
 }
 
+func TestSame(t *testing.T) {
+	for _, x := range []struct {
+		list []int
+		all  [][]int
+		want bool
+	}{{nil, nil, true}, {nil, [][]int{{}}, true}, {[]int{1, 2}, [][]int{{1, 2}, {1, 2}}, true}, {[]int{1, 2}, [][]int{{1, 2}, {2, 1}}, false}, {[]int{1, 2}, [][]int{{1, 2, 3}}, false}, {[]int{1, 2}, [][]int{{1}, {1, 2}}, false}, {nil, [][]int{{0}}, false}} {
+		if got := Same(x.list, x.all...); got != x.want {
+			t.Errorf("Same(%v, %v) = %v", x.list, x.all, got)
+		}
+	}
+}
+
 func TestOfSet(t *testing.T) {
 	for set, want := range map[int][]int{0: nil, 1: {0}, 2: {1}, 3: {0, 1}, 21: {0, 2, 4}, 1 << 62: {62}} {
 		if got := OfSet(set); !slices.Equal(got, want) {

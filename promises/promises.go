@@ -19,12 +19,13 @@ type Test interface {
 	Errorf(format string, values ...any)
 }
 
-// Layer is how a layer prints and parses its books; HasShape if a book can have the bell Shape. Show writes values so that those that are equal, and no others, look the same.
+// Layer is how a layer prints and parses its books; HasShape if a book can have the bell Shape, LineBells if a line can have any bell that a book has. Show writes values so that those that are equal, and no others, look the same.
 type Layer[B any] struct {
-	Print    func(b B) (string, api.Bell)
-	Parse    func(text string) (b B, line int, l api.Bell)
-	HasShape bool
-	Show     func(values ...any) string
+	Print     func(b B) (string, api.Bell)
+	Parse     func(text string) (b B, line int, l api.Bell)
+	HasShape  bool
+	LineBells bool
+	Show      func(values ...any) string
 }
 
 // AlwaysTheSame (P0.1, R4): what is reported of books is the same when it is asked again, and at the same time, and changes nothing.
@@ -88,7 +89,7 @@ func (x Layer[B]) WrongLines(t Test, line int, before string, wrong ...string) {
 	}
 }
 
-// AnyByte (P0.1, P0.3): each text of which one byte is any of some is a book that is printed like that, or has a bell; only a line that does not have its form has a number.
+// AnyByte (P0.1, P0.3): each text of which one byte is any of some is a book that is printed like that, or has a bell; only a line that does not have its form has a number, or one that has a bell.
 func (x Layer[B]) AnyByte(t Test, bytes string, texts ...string) {
 	t.Helper()
 	for _, from := range texts {
@@ -96,13 +97,24 @@ func (x Layer[B]) AnyByte(t Test, bytes string, texts ...string) {
 			for i := range len(bytes) {
 				text := from[:at] + bytes[i:i+1] + from[at+1:]
 				b, line, l := x.Parse(text)
-				if line < 0 || line > 0 && l != api.Shape || line == 0 && l == api.Shape && !x.HasShape {
+				if !x.canHave(line, l) {
 					t.Errorf("%q: line %d, bell %d", text, line, l)
 				}
 				x.isBookOrBell(t, text, b, l)
 			}
 		}
 	}
+}
+
+// canHave tells whether a text can have a bell, and a line that is wrong.
+func (x Layer[B]) canHave(line int, l api.Bell) bool {
+	switch {
+	case line > 0:
+		return l == api.Shape || x.LineBells && l != api.Fine
+	case line == 0:
+		return l != api.Shape || x.HasShape
+	}
+	return false
 }
 
 // isBookOrBell tells whether there is no book together with a bell, and a book that is printed as it was parsed without one.

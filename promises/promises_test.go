@@ -80,6 +80,14 @@ func broken() map[string]func(t Test) {
 		"a line with another bell": func(t Test) {
 			parsing(func(string) (string, int, api.Bell) { return "", 1, api.Count }).AnyByte(t, "a", "a\n")
 		},
+		"a line of a book": func(t Test) {
+			parsing(func(text string) (string, int, api.Bell) { return strings.TrimSuffix(text, "\n"), 1, api.Fine }).AnyByte(t, "a", "a\n")
+		},
+		"a line of a book, and any bell": func(t Test) {
+			x := parsing(func(text string) (string, int, api.Bell) { return strings.TrimSuffix(text, "\n"), 1, api.Fine })
+			x.LineBells = true
+			x.AnyByte(t, "a", "a\n")
+		},
 		"a line below 0": func(t Test) {
 			parsing(func(string) (string, int, api.Bell) { return "", -1, api.Shape }).AnyByte(t, "a", "a\n")
 		},
@@ -147,6 +155,10 @@ func TestRight(t *testing.T) {
 	shaped.HasShape = true
 	shaped.Parse = func(text string) (string, int, api.Bell) { return "", 0, api.Shape }
 	shaped.AnyByte(t, "ab", "a\n")
+	lined := right()
+	lined.LineBells = true
+	lined.Parse = func(text string) (string, int, api.Bell) { return "", 1, api.Count }
+	lined.AnyByte(t, "ab", "a\n")
 }
 
 func TestAlwaysTheSame(t *testing.T) {
